@@ -4,35 +4,21 @@ import (
 	"math"
 	"math/rand"
 	"slices"
-	"sync"
 	"testing"
 	"testing/synctest"
 
+	"treadle/aid"
 	"treadle/api"
 	"treadle/cell"
 	"treadle/gate"
 )
-
-// beside: so many goroutines that begin together, and are joined.
-func beside(hands int, f func(hand int)) {
-	var ready, all sync.WaitGroup
-	ready.Add(hands)
-	for h := range hands {
-		all.Go(func() {
-			ready.Done()
-			ready.Wait()
-			f(h)
-		})
-	}
-	all.Wait()
-}
 
 func TestAddsAddUp(t *testing.T) {
 	for _, row := range []struct{ from, d int64 }{{0, 1}, {5, -3}, {math.MaxInt64 - 100, 7}, {math.MinInt64 + 9, -1}} {
 		const hands, each = 8, 10000
 		x := cell.New(row.from)
 		got := make([][]int64, hands)
-		beside(hands, func(h int) {
+		aid.Beside(hands, func(h int) {
 			for range each {
 				got[h] = append(got[h], x.Add(nil, row.d))
 			}
@@ -67,7 +53,7 @@ func TestOneCasOfSeveral(t *testing.T) {
 	const hands = 8
 	cells := zeros(20000)
 	done := make([][hands]bool, len(cells))
-	beside(hands, func(h int) {
+	aid.Beside(hands, func(h int) {
 		for i, x := range cells {
 			done[i][h] = x.Cas(nil, 0, int64(h)+1)
 		}
@@ -84,7 +70,7 @@ func TestOneCasOfSeveral(t *testing.T) {
 func TestCasAddsUp(t *testing.T) {
 	const hands, each = 8, 10000
 	x := cell.New(0)
-	beside(hands, func(h int) {
+	aid.Beside(hands, func(h int) {
 		for range each {
 			if h == 0 {
 				x.Add(nil, 1)
@@ -103,7 +89,7 @@ func TestSwapsPermute(t *testing.T) {
 	const hands, each = 8, 20000
 	x := cell.New(0)
 	got := make([][]int64, hands)
-	beside(hands, func(h int) {
+	aid.Beside(hands, func(h int) {
 		for i := range each {
 			got[h] = append(got[h], x.Swap(nil, int64(h*each+i+1)))
 		}
@@ -124,7 +110,7 @@ func TestOneOrder(t *testing.T) {
 		cells := []*cell.Cell{cell.New(0), cell.New(0)}
 		scripts := []*script{aWakeScript(r), aWakeScript(r), aWakeScript(r)}
 		hands := bodies(scripts, cells)
-		beside(len(scripts), func(h int) { hands[h](nil) })
+		aid.Beside(len(scripts), func(h int) { hands[h](nil) })
 		left := []int64{cells[0].Load(nil), cells[1].Load(nil)}
 		if !explained(scripts, make([]int, len(scripts)), []int64{0, 0}, left) {
 			t.Fatalf("P2.3: seed %d: no order gives %+v, %+v, %+v and %v", seed, *scripts[0], *scripts[1], *scripts[2], left)
@@ -182,7 +168,7 @@ func TestStoresAreSeen(t *testing.T) {
 	for what, f := range lay {
 		cells := [2][]*cell.Cell{zeros(20000), zeros(20000)}
 		var saw [2][20000]int64
-		beside(2, func(h int) {
+		aid.Beside(2, func(h int) {
 			for i := range cells[h] {
 				f(cells[h][i])
 				saw[h][i] = cells[1-h][i].Load(nil)

@@ -5,6 +5,7 @@ import (
 	"math/rand"
 	"testing"
 
+	"treadle/aid"
 	"treadle/api"
 	"treadle/cell"
 	"treadle/gate"
@@ -24,7 +25,7 @@ func TestNew(t *testing.T) {
 
 // TestExamples: the chapter's table, free, by each thread that does not live.
 func TestExamples(t *testing.T) {
-	for what, th := range notLiving() {
+	for what, th := range aid.NotLiving() {
 		x := cell.New(5)
 		if n := x.Load(th); n != 5 {
 			t.Errorf("%s: Load: %d", what, n)
@@ -56,7 +57,8 @@ func TestExamples(t *testing.T) {
 
 // TestFreeAlone: each free call of one goroutine, held against the plain words.
 func TestFreeAlone(t *testing.T) {
-	threads := []*gate.Thread{nil, {}, threadThatEnded(), threadThatWasStopped()}
+	free := aid.NotLiving()
+	threads := []*gate.Thread{free["nil"], free["made by no run"], free["ended"], free["stopped"]}
 	for seed := range int64(500) {
 		r := rand.New(rand.NewSource(seed))
 		few := []int{3, len(edges)}[r.Intn(2)]
@@ -96,7 +98,7 @@ func TestNone(t *testing.T) {
 			}
 		}
 	}
-	for what, th := range notLiving() {
+	for what, th := range aid.NotLiving() {
 		asks(what, th)
 	}
 	x := cell.New(0)

@@ -4,12 +4,13 @@ import (
 	"math"
 	"math/rand"
 
+	"treadle/aid"
 	"treadle/api"
 	"treadle/cell"
 	"treadle/gate"
 )
 
-type body = func(t *gate.Thread)
+type body = aid.Body
 
 // call: one call of one of several cells. Load takes neither a nor b, Cas both, the others a.
 type call struct {
@@ -95,25 +96,4 @@ func someCells(r *rand.Rand, few int) ([]*cell.Cell, []int64) {
 		l, held = append(l, cell.New(v)), append(held, v)
 	}
 	return l, held
-}
-
-// threadThatEnded: one of a run that has answered.
-func threadThatEnded() (kept *gate.Thread) {
-	gate.Run(nil, 0, func(t *gate.Thread) { kept = t })
-	return kept
-}
-
-// threadThatWasStopped: one that was stopped at an access, and ended so.
-func threadThatWasStopped() (kept *gate.Thread) {
-	x := cell.New(0)
-	gate.Run(nil, 0, func(t *gate.Thread) {
-		kept = t
-		x.Load(t)
-	})
-	return kept
-}
-
-// notLiving: threads by which a call is free.
-func notLiving() map[string]*gate.Thread {
-	return map[string]*gate.Thread{"nil": nil, "made by no run": {}, "ended": threadThatEnded(), "stopped": threadThatWasStopped()}
 }

@@ -8,6 +8,7 @@ import (
 	"testing"
 	"testing/synctest"
 
+	"treadle/aid"
 	"treadle/cell"
 	"treadle/gate"
 )
@@ -64,7 +65,7 @@ func TestEachChangeWakes(t *testing.T) {
 		{"Swap", 5, 6, func(x *cell.Cell) { x.Swap(nil, 6) }},
 		{"Swap of far", 1, 1 + 1<<32, func(x *cell.Cell) { x.Swap(nil, 1+1<<32) }},
 	} {
-		for what, th := range notLiving() {
+		for what, th := range aid.NotLiving() {
 			synctest.Test(t, func(t *testing.T) {
 				x := cell.New(row.from)
 				l := parks(x, th, row.from, row.from, row.from)
@@ -196,7 +197,7 @@ func TestHandedRound(t *testing.T) {
 			const rounds = 1000
 			x := cell.New(0)
 			order := []int64{} // plain: who has the turn alone touches it
-			beside(int(hands), func(h int) {
+			aid.Beside(int(hands), func(h int) {
 				for range rounds {
 					for n := x.Load(nil); n%hands != int64(h); {
 						n = x.Park(nil, n)
@@ -222,7 +223,7 @@ func TestSleepersTakeNoTimeOfOthers(t *testing.T) {
 	synctest.Test(t, func(t *testing.T) {
 		x, y := cell.New(0), cell.New(0)
 		l := parks(x, nil, make([]int64, 50)...)
-		beside(4, func(h int) {
+		aid.Beside(4, func(h int) {
 			for range 500 {
 				y.Add(nil, 1)
 				x.Load(nil)

@@ -6,6 +6,7 @@ import (
 	"slices"
 	"testing"
 
+	"treadle/aid"
 	"treadle/api"
 	"treadle/cell"
 	"treadle/gate"
@@ -218,7 +219,7 @@ func TestStopped(t *testing.T) {
 func TestFreeWithinARun(t *testing.T) {
 	own := cell.New(0)
 	r := gate.Run(nil, 99, func(th *gate.Thread) {
-		for what, other := range notLiving() {
+		for what, other := range aid.NotLiving() {
 			x := cell.New(6)
 			for _, c := range []call{{op: api.OpLoad}, {op: api.OpStore, a: 2}, {op: api.OpCas, a: 2, b: 5}, {op: api.OpAdd, a: 1}, {op: api.OpSwap, a: 9}, {op: api.OpPark, a: 8}} {
 				_, want := c.plain(x.Load(nil))
