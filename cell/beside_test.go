@@ -51,7 +51,7 @@ func zeros(n int) []*cell.Cell {
 // TestOneCasOfSeveral: from a value that nobody lays again. Many cells, so that the hands meet at some.
 func TestOneCasOfSeveral(t *testing.T) {
 	const hands = 8
-	cells := zeros(20000)
+	cells := zeros(100000)
 	done := make([][hands]bool, len(cells))
 	aid.Beside(hands, func(h int) {
 		for i, x := range cells {
@@ -68,7 +68,7 @@ func TestOneCasOfSeveral(t *testing.T) {
 
 // TestCasAddsUp: some add by Add, some by Cas from what they loaded: none of it is lost.
 func TestCasAddsUp(t *testing.T) {
-	const hands, each = 8, 10000
+	const hands, each = 8, 100000
 	x := cell.New(0)
 	aid.Beside(hands, func(h int) {
 		for range each {
@@ -107,54 +107,36 @@ func TestSwapsPermute(t *testing.T) {
 func TestOneOrder(t *testing.T) {
 	for seed := range int64(4000) {
 		r := rand.New(rand.NewSource(seed))
-		cells := []*cell.Cell{cell.New(0), cell.New(0)}
-		scripts := []*script{aWakeScript(r), aWakeScript(r), aWakeScript(r)}
-		hands := bodies(scripts, cells)
-		aid.Beside(len(scripts), func(h int) { hands[h](nil) })
-		left := []int64{cells[0].Load(nil), cells[1].Load(nil)}
-		if !explained(scripts, make([]int, len(scripts)), []int64{0, 0}, left) {
-			t.Fatalf("P2.3: seed %d: no order gives %+v, %+v, %+v and %v", seed, *scripts[0], *scripts[1], *scripts[2], left)
+		cells := zeros(2)
+		calls := [][]call{wakeCalls(r), wakeCalls(r), wakeCalls(r)}
+		threads := scripts(calls, cells)
+		bodies := threads.Bodies()
+		aid.Beside(len(bodies), func(h int) { bodies[h](nil) })
+		left := [2]int64{cells[0].Load(nil), cells[1].Load(nil)}
+		if !aid.Explained(calls, threads.Got, [2]int64{}, does, func(held [2]int64) bool { return held == left }) {
+			t.Fatalf("P2.3: seed %d: of %+v no order answers %+v and leaves %v", seed, calls, threads.Got, left)
 		}
 	}
 }
 
-// aWakeScript: three calls none of which sleeps.
-func aWakeScript(r *rand.Rand) *script {
-	s := &script{}
+// wakeCalls: three calls none of which sleeps.
+func wakeCalls(r *rand.Rand) []call {
+	var l []call
 	for range 3 {
 		c := someCall(r, 2, 3)
 		if c.op == api.OpPark {
 			c.a = 100 // nobody lays it: it is done at once
 		}
-		s.calls = append(s.calls, c)
+		l = append(l, c)
 	}
-	return s
+	return l
 }
 
-// explained: whether there is an order of the calls that are left in which each answers, from what the cells hold, what it did, and that leaves what was left.
-func explained(scripts []*script, at []int, held, left []int64) bool {
-	over := true
-	for n, s := range scripts {
-		if at[n] == len(s.calls) {
-			continue
-		}
-		over = false
-		c := s.calls[at[n]]
-		was := held[c.cell]
-		now, want := c.plain(was)
-		if s.got[at[n]] != want {
-			continue
-		}
-		at[n]++
-		held[c.cell] = now
-		found := explained(scripts, at, held, left)
-		held[c.cell] = was
-		at[n]--
-		if found {
-			return true
-		}
-	}
-	return over && slices.Equal(held, left)
+// does: what two cells hold behind a call, and what it answers.
+func does(held [2]int64, c call) ([2]int64, answer) {
+	now, a := c.plain(held[c.cell])
+	held[c.cell] = now
+	return held, a
 }
 
 // TestStoresAreSeen: of two who each store in one cell and then load the other one, one at least sees the other's.

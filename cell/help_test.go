@@ -46,6 +46,25 @@ func (c call) do(t *gate.Thread, x *cell.Cell) answer {
 	return answer{}
 }
 
+// steps: along a record the call is one access.
+func (c call) steps(s *aid.Steps) answer {
+	switch c.op {
+	case api.OpLoad:
+		return answer{n: s.Load(c.cell)}
+	case api.OpStore:
+		s.Store(c.cell, c.a)
+	case api.OpCas:
+		return answer{ok: s.Cas(c.cell, c.a, c.b)}
+	case api.OpAdd:
+		return answer{n: s.Add(c.cell, c.a)}
+	case api.OpSwap:
+		return answer{n: s.Swap(c.cell, c.a)}
+	case api.OpPark:
+		return answer{n: s.Park(c.cell, c.a)}
+	}
+	return answer{}
+}
+
 // plain: the chapter's words once more: what the cell holds behind the call, and what that answers. (Of a Park that is done.)
 func (c call) plain(was int64) (int64, answer) {
 	switch c.op {

@@ -65,38 +65,13 @@ func TestExamplesByThreads(t *testing.T) {
 	}
 }
 
-// script: what a thread calls, and what it was answered, as far as it came.
-type script struct {
-	calls []call
-	got   []answer
-}
-
-func (s *script) body(cells []*cell.Cell) body {
-	return func(t *gate.Thread) {
-		for _, c := range s.calls {
-			s.got = append(s.got, c.do(t, cells[c.cell]))
-		}
+// scripts: threads that make calls of these cells.
+func scripts(calls [][]call, cells []*cell.Cell) *aid.Scripts[call, answer] {
+	return &aid.Scripts[call, answer]{
+		Calls: calls,
+		Do:    func(t *gate.Thread, c call) answer { return c.do(t, cells[c.cell]) },
+		Steps: func(s *aid.Steps, c call) answer { return c.steps(s) },
 	}
-}
-
-func someScripts(r *rand.Rand, cells, few int) []*script {
-	l := make([]*script, 1+r.Intn(4))
-	for i := range l {
-		l[i] = &script{}
-		for range r.Intn(7) {
-			l[i].calls = append(l[i].calls, someCall(r, cells, few))
-		}
-	}
-	return l
-}
-
-func bodies(scripts []*script, cells []*cell.Cell) []body {
-	var l []body
-	for _, s := range scripts {
-		s.got = nil
-		l = append(l, s.body(cells))
-	}
-	return l
 }
 
 // TestRuns: random threads under random picks: W1 (the record says all), W3 (of a dead run), W7 (again).
@@ -106,23 +81,25 @@ func TestRuns(t *testing.T) {
 		r := rand.New(rand.NewSource(seed))
 		few := []int{2, 3, len(edges)}[r.Intn(3)]
 		cells, held := someCells(r, few)
-		scripts := someScripts(r, len(cells), few)
-		picks := make([]int, r.Intn(20))
-		for i := range picks {
-			picks[i] = r.Intn(9) - 4
+		calls := make([][]call, 1+r.Intn(4))
+		for i := range calls {
+			for range r.Intn(7) {
+				calls[i] = append(calls[i], someCall(r, len(cells), few))
+			}
 		}
-		report := gate.Run(picks, []int{0, 3, 100, 100}[r.Intn(4)], bodies(scripts, cells)...)
+		threads := scripts(calls, cells)
+		report := gate.Run(aid.Picks(r.Intn, 19), []int{0, 3, 100, 100}[r.Intn(4)], threads.Bodies()...)
 		ends[report.End]++
-		saysAll(t, report, scripts, cells, slices.Clone(held))
+		saysAll(t, report, threads, cells, held)
 		for i, v := range held {
 			cells[i].Store(nil, v)
 		}
-		again, e, _ := gate.Again(report.Went, bodies(scripts, cells)...)
-		if e != api.OK || again.End != report.End || !slices.Equal(again.Log, report.Log) || !slices.Equal(again.Left, report.Left) {
+		again, e, _ := gate.Again(report.Went, scripts(calls, cells).Bodies()...)
+		if e != api.OK || !aid.Same(again, report) {
 			t.Errorf("W7: %d: %+v, not %+v", e, again, report)
 		}
 		if t.Failed() {
-			t.Fatalf("seed %d", seed)
+			t.Fatalf("seed %d: %+v: %s", seed, calls, aid.Texts(report.Log))
 		}
 	}
 	if ends[api.Over] < 300 || ends[api.Dead] < 300 || ends[api.Cut] < 300 {
@@ -130,63 +107,24 @@ func TestRuns(t *testing.T) {
 	}
 }
 
-// saysAll holds a record against the calls, one by one in its order: the entry, the answer, what the cells hold, who is left.
-func saysAll(t *testing.T, r api.Report, scripts []*script, cells []*cell.Cell, held []int64) {
+// saysAll holds a report and the answers against the calls, each of which is one access, and the record against what the cells hold.
+func saysAll(t *testing.T, r api.Report, threads *aid.Scripts[call, answer], cells []*cell.Cell, held []int64) {
 	t.Helper()
-	at := make([]int, len(scripts))
-	numbers := map[int]int{}
-	for i, e := range r.Log {
-		s := scripts[e.Thread]
-		if at[e.Thread] == len(s.calls) || at[e.Thread] == len(s.got) {
-			t.Errorf("W1: the entry %d is one too many: %+v", i, r)
-			return
-		}
-		c := s.calls[at[e.Thread]]
-		if _, met := numbers[c.cell]; !met {
-			numbers[c.cell] = len(numbers)
-		}
-		if c.op == api.OpPark && held[c.cell] == c.a {
-			t.Errorf("P2.2: a Park on %d that the cell holds is done: %+v", c.a, e)
-		}
-		now, want := c.plain(held[c.cell])
-		if e != c.entry(e.Thread, numbers[c.cell], held[c.cell]) || s.got[at[e.Thread]] != want || r.Went[i] != e.Thread {
-			t.Errorf("W1: the call %+v of %d answers %v, its entry is %+v", c, held[c.cell], s.got[at[e.Thread]], e)
-		}
-		held[c.cell] = now
-		at[e.Thread]++
+	was := map[int]int64{}
+	for i, v := range held {
+		was[i] = v
+	}
+	ends, faults := threads.Ends(r, was)
+	for _, f := range faults {
+		t.Errorf("W1: %s", f)
 	}
 	for i, x := range cells {
-		if n := x.Load(nil); n != held[i] {
-			t.Errorf("W1: the cell %d holds %d in the end, not %d", i, n, held[i])
+		if n := x.Load(nil); n != ends[i] {
+			t.Errorf("W1: the cell %d holds %d in the end, not %d", i, n, ends[i])
 		}
 	}
-	saysWhoIsLeft(t, r, scripts, at, held)
-}
-
-func saysWhoIsLeft(t *testing.T, r api.Report, scripts []*script, at []int, held []int64) {
-	t.Helper()
-	var left []int
-	for n, s := range scripts {
-		if len(s.got) != at[n] {
-			t.Errorf("P2.2: the thread %d was answered %d calls, %d are told", n, len(s.got), at[n])
-		}
-		if at[n] < len(s.calls) {
-			left = append(left, n)
-		}
-	}
-	var told []int
-	for _, a := range r.Left {
-		told = append(told, a.Thread)
-		c := scripts[a.Thread].calls[at[a.Thread]]
-		if a.Op != c.op || a.Was != held[c.cell] || a.Now != held[c.cell] {
-			t.Errorf("W1: the thread %d stands at %+v, by the report at %+v", a.Thread, c, a)
-		}
-		if r.End == api.Dead && (a.Op != api.OpPark || a.Was != a.Arg) {
-			t.Errorf("W3: a run is dead, and one is left who could go on: %+v", a)
-		}
-	}
-	if !slices.Equal(told, left) || r.End == api.Over && len(left) > 0 || r.End == api.Dead && len(left) == 0 {
-		t.Errorf("W3: %d, left are %v, told %v", r.End, left, told)
+	if r.End == api.Over && len(r.Left) > 0 || r.End == api.Dead && len(r.Left) == 0 {
+		t.Errorf("W3: %d, left are %+v", r.End, r.Left)
 	}
 }
 

@@ -203,12 +203,8 @@ func TestRuns(t *testing.T) {
 		for i := range scripts {
 			scripts[i], open[i] = someCalls(r, onces, 2), r.Intn(3) == 0
 		}
-		picks := make([]int, r.Intn(30))
-		for i := range picks {
-			picks[i] = r.Intn(9) - 4
-		}
 		w := newWorld(onces, scripts, open)
-		report := gate.Run(picks, []int{0, 9, 500, 500}[r.Intn(4)], w.bodies()...)
+		report := gate.Run(aid.Picks(r.Intn, 29), []int{0, 9, 500, 500}[r.Intn(4)], w.bodies()...)
 		w.holds(t, report)
 		second := newWorld(onces, scripts, open)
 		again, e, _ := gate.Again(report.Went, second.bodies()...)
