@@ -2,6 +2,8 @@
 package aid
 
 import (
+	"maps"
+	"slices"
 	"strconv"
 	"strings"
 	"sync"
@@ -51,6 +53,16 @@ func NotLiving() map[string]*gate.Thread {
 	gate.Run(nil, 0, func(t *gate.Thread) { ended = t })
 	stopped, _ := Stopped()
 	return map[string]*gate.Thread{"nil": nil, "made by no run": {}, "ended": ended, "stopped": stopped}
+}
+
+// FreeThreads: those of NotLiving, always in one order.
+func FreeThreads() []*gate.Thread {
+	m := NotLiving()
+	var l []*gate.Thread
+	for _, what := range slices.Sorted(maps.Keys(m)) {
+		l = append(l, m[what])
+	}
+	return l
 }
 
 // Every plays all schedules, each as picks of which there are so many, and tells how many there are. play tells how many were ready at each turn.

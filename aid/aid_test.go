@@ -91,6 +91,32 @@ func TestARecordThatDoesNot(t *testing.T) {
 	}
 }
 
+// TestSpans: of calls of two accesses each, of which the first thread makes one and a half.
+func TestSpans(t *testing.T) {
+	var x atomic.Int64
+	body := func(t *gate.Thread) {
+		for range 4 {
+			t.Step(&x, api.OpAdd, 1, 0)
+		}
+	}
+	r := gate.Run([]int{1, 0, 1, 0, 1, 0}, 7, body, body)
+	for thread, want := range [][]aid.Span{{{1, 3}, {5, 7}, {}}, {{0, 2}, {4, 6}, {7, 6}}} {
+		of, got := aid.Of(r), make([]aid.Span, 3)
+		of.Thread(thread, func(s *aid.Steps) {
+			for i := range got {
+				s.Span(&got[i], func() {
+					for range []int{2, 2, 0}[i] {
+						s.Add(0, 1)
+					}
+				})
+			}
+		})
+		if !slices.Equal(got, want) || len(of.Faults()) != 0 {
+			t.Errorf("the thread %d: %v, not %v: %v", thread, got, want, of.Faults())
+		}
+	}
+}
+
 func TestEvery(t *testing.T) {
 	var x atomic.Int64
 	add := func(t *gate.Thread) {
@@ -127,6 +153,10 @@ func TestThreads(t *testing.T) {
 		if th.Live() || (th == nil) != (what == "nil") {
 			t.Errorf("%s", what)
 		}
+	}
+	l := aid.FreeThreads()
+	if len(l) != len(aid.NotLiving()) || slices.ContainsFunc(l, (*gate.Thread).Live) || slices.Index(l, nil) != slices.Index(aid.FreeThreads(), nil) {
+		t.Errorf("%v", l)
 	}
 	if _, own := aid.Stopped(); !gate.Is(own) {
 		t.Errorf("%v", own)

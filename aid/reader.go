@@ -23,7 +23,7 @@ func Of(r api.Report) *Record {
 type Steps struct {
 	of     *Record
 	thread int
-	at     int // the place in the log behind the thread's last entry that was read
+	at     int // the place in the log behind the thread's last entry that was read, or one of others behind that
 	ended  bool
 }
 
@@ -59,6 +59,17 @@ func (s *Steps) Swap(cell int, v int64) int64 {
 func (s *Steps) Park(cell int, v int64) int64 { return s.access(cell, api.OpPark, v, 0).Was }
 func (s *Steps) Cas(cell int, old, next int64) bool {
 	return s.access(cell, api.OpCas, old, next).Ok
+}
+
+// Span: the places in a log of a call's first and last entry. Where it has not ended there, the last is behind the log; where it has not begun, the first, too.
+type Span struct{ First, Last int }
+
+// Span goes through the steps of one call, and tells where they are: ahead of their end, as they may be left there.
+func (s *Steps) Span(at *Span, steps func()) {
+	s.next()
+	*at = Span{s.at, len(s.of.report.Log)}
+	steps()
+	at.Last = s.at - 1
 }
 
 // access reads one entry; or, behind the last one, where the thread is left.

@@ -57,8 +57,7 @@ func TestExamples(t *testing.T) {
 
 // TestFreeAlone: each free call of one goroutine, held against the plain words.
 func TestFreeAlone(t *testing.T) {
-	free := aid.NotLiving()
-	threads := []*gate.Thread{free["nil"], free["made by no run"], free["ended"], free["stopped"]}
+	threads := aid.FreeThreads()
 	for seed := range int64(500) {
 		r := rand.New(rand.NewSource(seed))
 		few := []int{3, len(edges)}[r.Intn(2)]

@@ -157,8 +157,7 @@ func TestEnds(t *testing.T) {
 
 // TestFreeAlone: random calls of one goroutine by threads that do not live, now and then by one that does, held against the plain words.
 func TestFreeAlone(t *testing.T) {
-	free := aid.NotLiving()
-	threads := []*gate.Thread{free["nil"], free["made by no run"], free["ended"], free["stopped"]}
+	threads := aid.FreeThreads()
 	for seed := range int64(1000) {
 		r := rand.New(rand.NewSource(seed))
 		of := size{1 + r.Intn(9), ends()[r.Intn(len(ends()))], int64(r.Intn(4))}

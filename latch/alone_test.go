@@ -207,7 +207,7 @@ func aLockThatIsWaitedFor(t *testing.T) {
 func TestFreeAlone(t *testing.T) { synctest.Test(t, freeAlone) }
 
 func freeAlone(t *testing.T) {
-	threads := notLiving()
+	threads := aid.FreeThreads()
 	asked, slept := [visit]int{}, 0
 	for seed := range int64(2000) {
 		r := rand.New(rand.NewSource(seed))

@@ -55,7 +55,7 @@ func answers(l []*asleep) []answer {
 // TestWhoWaitsSleeps till the latch comes to 0, by whatever thread that does not live; who comes later does not.
 func TestWhoWaitsSleeps(t *testing.T) {
 	waits := slices.Repeat([]call{{op: wait}}, 5)
-	for _, th := range notLiving() {
+	for _, th := range aid.FreeThreads() {
 		synctest.Test(t, func(t *testing.T) {
 			x := size{9, 1}.things()
 			l := x.begun(th, waits...)
@@ -78,7 +78,7 @@ func TestWhoWaitsSleeps(t *testing.T) {
 
 // TestWhoLocksSleeps while another one has the lock: each Unlock lets one in, and no more.
 func TestWhoLocksSleeps(t *testing.T) {
-	for _, th := range notLiving() {
+	for _, th := range aid.FreeThreads() {
 		synctest.Test(t, func(t *testing.T) {
 			x := size{0, 1}.things()
 			x.lock.Lock(th)
@@ -103,7 +103,7 @@ func TestWhoLocksSleeps(t *testing.T) {
 
 // TestWhoArrivesSleeps till the last one comes.
 func TestWhoArrivesSleeps(t *testing.T) {
-	for _, th := range notLiving() {
+	for _, th := range aid.FreeThreads() {
 		for _, n := range []int64{2, 3, 9} {
 			synctest.Test(t, func(t *testing.T) {
 				x := size{0, n}.things()

@@ -183,9 +183,3 @@ func ends() []int64 {
 func someCall(r *rand.Rand, values []int64) call {
 	return call{op: r.Intn(visit), n: values[r.Intn(len(values))]}
 }
-
-// notLiving: threads by which a call is free.
-func notLiving() []*gate.Thread {
-	m := aid.NotLiving()
-	return []*gate.Thread{m["nil"], m["made by no run"], m["ended"], m["stopped"]}
-}

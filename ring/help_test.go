@@ -1,0 +1,167 @@
+package ring_test
+
+import (
+	"math"
+	"math/big"
+	"math/rand"
+	"strconv"
+	"strings"
+	"sync/atomic"
+
+	"treadle/aid"
+	"treadle/api"
+	"treadle/gate"
+	"treadle/ring"
+)
+
+// What a call does.
+const (
+	put = iota
+	take
+	length
+)
+
+// call: v is what a put lays.
+type call struct {
+	op int
+	v  int64
+}
+
+var takes, lengths = call{op: take}, call{op: length}
+
+func puts(v int64) call { return call{op: put, v: v} }
+
+// answer: of a call: v is what a take took, or the length; ok that a take took something.
+type answer struct {
+	v  int64
+	ok bool
+	e  api.Errno
+}
+
+// What calls are answered.
+var okay, none, full = answer{}, answer{}, answer{e: api.ErrFull}
+
+func took(v int64) answer { return answer{v: v, ok: true} }
+func long(n int64) answer { return answer{v: n} }
+
+// size: of how many places a ring is, and where its positions begin.
+type size struct {
+	n    int
+	from int64
+}
+
+func (m size) ring() *ring.Ring {
+	r, e := ring.New(m.n, m.from)
+	if e != api.OK {
+		panic("refused")
+	}
+	return r
+}
+
+// do makes the call, by its thread or free.
+func do(r *ring.Ring, t *gate.Thread, c call) (a answer) {
+	switch c.op {
+	case put:
+		a.e = r.Put(t, c.v)
+	case take:
+		a.v, a.ok = r.Take(t)
+	case length:
+		a.v = r.Len(t)
+	}
+	return a
+}
+
+// all makes the calls, one behind the other.
+func all(r *ring.Ring, t *gate.Thread, calls ...call) []answer {
+	var l []answer
+	for _, c := range calls {
+		l = append(l, do(r, t, c))
+	}
+	return l
+}
+
+// alone: the record of calls that one thread makes.
+func alone(r *ring.Ring, calls ...call) (api.Report, []answer) {
+	var got []answer
+	report := gate.Run(nil, api.MaxTurns, func(t *gate.Thread) { got = all(r, t, calls...) })
+	return report, got
+}
+
+// placeOf: the place of a position, reckoned by numbers that have no ends.
+func (m size) placeOf(p int64) int {
+	return int(new(big.Int).Mod(big.NewInt(p), big.NewInt(int64(m.n))).Int64())
+}
+
+// plain: a queue that one alone calls, by the chapter's words.
+type plain struct {
+	room, has int
+	values    string // those that are there, each with a blank behind it
+}
+
+func (m size) plain() plain { return plain{room: m.n} }
+
+// does: what a queue is behind a call, and what it answers.
+func does(s plain, c call) (plain, answer) {
+	switch c.op {
+	case put:
+		if s.has == s.room {
+			return s, full
+		}
+		s.has++
+		s.values += strconv.FormatInt(c.v, 10) + " "
+		return s, okay
+	case take:
+		if s.has == 0 {
+			return s, none
+		}
+		s.has--
+		first, rest, _ := strings.Cut(s.values, " ")
+		v, _ := strconv.ParseInt(first, 10, 64)
+		s.values = rest
+		return s, took(v)
+	}
+	return s, long(int64(s.has))
+}
+
+// empties: calls by which all is taken, and a length at both ends.
+func empties(n int) []call {
+	l := []call{lengths}
+	for range n + 1 {
+		l = append(l, takes)
+	}
+	return append(l, lengths)
+}
+
+// goesAround: calls by which a ring is emptied, filled, and emptied again; each is refused once.
+func goesAround(n int) []call {
+	l := empties(n)
+	for i := range n + 1 {
+		l = append(l, puts(int64(-1000-i)))
+	}
+	return append(l, empties(n)...)
+}
+
+// froms: positions at the ends of int64, and about 0.
+func froms() []int64 {
+	return []int64{0, 1, 2, 7, -1, -2, -7, math.MaxInt64, math.MaxInt64 - 1, math.MaxInt64 - 2, math.MaxInt64 - 7, math.MinInt64, math.MinInt64 + 1, math.MinInt64 + 5, 1 << 62, -1 << 62, 1 << 32, 1<<32 - 1, 1<<31 - 2, -1 << 31}
+}
+
+// ends: values at the ends of int64, and some near one another.
+func ends() []int64 {
+	return []int64{0, 1, 2, -1, 3, 7, math.MaxInt64, math.MinInt64, math.MaxInt64 - 1, math.MinInt64 + 1, 1 << 62, 1 << 32}
+}
+
+func some[T any](r *rand.Rand, l []T) T { return l[r.Intn(len(l))] }
+
+// together: so many hands that meet so often, and go on from there at one time, where the machine lets them. (Whoever has looked out for the others long enough goes on alone.)
+func together(hands, meetings int, f func(hand, i int)) {
+	var come atomic.Int64
+	aid.Beside(hands, func(h int) {
+		for i := range meetings {
+			come.Add(1)
+			for looks := 0; looks < 300 && come.Load() < int64((i+1)*hands); looks++ {
+			}
+			f(h, i)
+		}
+	})
+}
