@@ -1,6 +1,8 @@
 package aid_test
 
 import (
+	"math"
+	"math/rand"
 	"slices"
 	"sync/atomic"
 	"testing"
@@ -160,5 +162,97 @@ func TestThreads(t *testing.T) {
 	}
 	if _, own := aid.Stopped(); !gate.Is(own) {
 		t.Errorf("%v", own)
+	}
+}
+
+func TestSome(t *testing.T) {
+	r := rand.New(rand.NewSource(1))
+	seen := map[int64]int{}
+	for range 1000 {
+		seen[aid.Some(r.Intn, []int64{4, 5, 4})]++
+	}
+	if len(seen) != 2 || seen[4] < 500 || seen[5] < 200 {
+		t.Errorf("%v", seen)
+	}
+	for what, l := range map[string][]int64{"values": aid.Values(), "positions": aid.Positions()} {
+		for _, v := range []int64{0, 1, -1, math.MaxInt64, math.MinInt64} {
+			if !slices.Contains(l, v) {
+				t.Errorf("%s: %d is missing", what, v)
+			}
+		}
+	}
+}
+
+func TestRooms(t *testing.T) {
+	fits := func(n int) bool { return n >= 2 && n <= api.MaxRing && n&(n-1) == 0 }
+	for what, row := range map[string]struct {
+		makes  func(n int, from int64) (bool, api.Errno)
+		faults int
+	}{
+		"as it is to be": {func(n int, from int64) (bool, api.Errno) {
+			if fits(n) {
+				return true, api.OK
+			}
+			return false, api.ErrArg
+		}, 0},
+		"one is too small": {func(n int, from int64) (bool, api.Errno) {
+			if fits(n) || n == 1 {
+				return true, api.OK
+			}
+			return false, api.ErrArg
+		}, 4},
+		"one is missing": {func(n int, from int64) (bool, api.Errno) {
+			if fits(n) && n != api.MaxRing {
+				return true, api.OK
+			}
+			return false, api.ErrArg
+		}, 4},
+		"another error": {func(n int, from int64) (bool, api.Errno) {
+			if fits(n) {
+				return true, api.OK
+			}
+			return false, map[bool]api.Errno{true: api.ErrFull, false: api.ErrArg}[n == 3]
+		}, 4},
+		"made, with an error": {func(n int, from int64) (bool, api.Errno) {
+			if fits(n) {
+				return true, api.OK
+			}
+			return n == 3 && from == 0, api.ErrArg
+		}, 1},
+		"none, and no error": {func(n int, from int64) (bool, api.Errno) {
+			if fits(n) {
+				return n != 4 || from >= 0, api.OK
+			}
+			return false, api.ErrArg
+		}, 2},
+	} {
+		if l := aid.Rooms(row.makes); len(l) != row.faults {
+			t.Errorf("%s: %v", what, l)
+		}
+	}
+}
+
+// TestStops: a call of three adds, in which a thread is stopped; calls by which it leaves.
+func TestStops(t *testing.T) {
+	adds := func(x *atomic.Int64) func(t *gate.Thread, n int) {
+		return func(t *gate.Thread, n int) {
+			for range n {
+				t.Step(x, api.OpAdd, 1, 0)
+			}
+		}
+	}
+	for turns, want := range []string{"0 add c-1 1: 0", "0 add c0 1: 1", "0 add c0 1: 2"} {
+		var x atomic.Int64
+		if stands, faults := aid.Stops(turns, adds(&x), 3, 1, 2); stands != want || len(faults) != 0 || x.Load() != int64(turns) {
+			t.Errorf("%d turns: %s, %v", turns, stands, faults)
+		}
+	}
+	var x, y atomic.Int64
+	if stands, faults := aid.Stops(3, adds(&x), 3); stands != "" || len(faults) != 2 {
+		t.Errorf("a call that ends: %s, %v", stands, faults)
+	}
+	swallows := func(t *gate.Thread, n int) { _ = aid.Caught(func() { adds(&y)(t, n) }) }
+	if stands, faults := aid.Stops(1, swallows, 3, 1); stands != "0 add c0 1: 1" || len(faults) != 2 {
+		t.Errorf("calls that swallow the panic: %s, %v", stands, faults)
 	}
 }

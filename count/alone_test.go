@@ -160,10 +160,10 @@ func TestFreeAlone(t *testing.T) {
 	threads := aid.FreeThreads()
 	for seed := range int64(1000) {
 		r := rand.New(rand.NewSource(seed))
-		of := size{1 + r.Intn(9), ends()[r.Intn(len(ends()))], int64(r.Intn(4))}
+		of := size{1 + r.Intn(9), aid.Some(r.Intn, aid.Values()), int64(r.Intn(4))}
 		x, s := of.things(), of.state()
 		for range 40 {
-			c := someCall(r, ends())
+			c := someCall(r, aid.Values())
 			var want, got answer
 			s, want = does(s, c)
 			if r.Intn(4) == 0 {
@@ -190,7 +190,7 @@ func TestNone(t *testing.T) {
 	want := []answer{{e: api.ErrNil}, {}, {}, {}, {}, {e: api.ErrNil}, {}}
 	asks := func(who string, th *gate.Thread) {
 		for what, x := range map[string]things{"nil": null, "made by no call": unmade, "made by new": byNew} {
-			for _, n := range ends() {
+			for _, n := range aid.Values() {
 				calls := each()
 				for i := range calls {
 					calls[i].n, calls[i].who = n, int(n)

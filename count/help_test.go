@@ -159,11 +159,6 @@ func whos() []int {
 	return []int{0, 1, -1, 2, -2, 63, 64, 65, -63, -64, -65, 1000, -1000, math.MaxInt, math.MaxInt - 1, math.MinInt, math.MinInt + 1}
 }
 
-// ends: values at the ends of int64, and some near one another.
-func ends() []int64 {
-	return []int64{0, 1, 2, -1, 3, 7, math.MaxInt64, math.MinInt64, math.MaxInt64 - 1, math.MinInt64 + 1, 1 << 62}
-}
-
 // someCall: its values are some of those.
 func someCall(r *rand.Rand, values []int64) call {
 	return call{op: r.Intn(left + 1), n: values[r.Intn(len(values))], who: whos()[r.Intn(len(whos()))]}

@@ -145,7 +145,7 @@ func TestRuns(t *testing.T) {
 	over, cas := 0, map[bool]int{}
 	for seed := range int64(6000) {
 		r := rand.New(rand.NewSource(seed))
-		values := [][]int64{ends(), {0, 1, 2, 3, 4, 5}}[r.Intn(2)]
+		values := [][]int64{aid.Values(), {0, 1, 2, 3, 4, 5}}[r.Intn(2)]
 		of := size{1 + r.Intn(4), values[r.Intn(4)], int64(r.Intn(3))}
 		calls := make([][]call, 1+r.Intn(5))
 		for i := range calls {

@@ -92,22 +92,9 @@ func TestStopped(t *testing.T) {
 		for turns, stands := range row.stands {
 			x := size{2, 7, 3}.things()
 			x.all(nil, call{op: add, who: 0, n: 3}, call{op: add, who: 1, n: 4}, call{op: take})
-			var out []any
-			r := gate.Run(nil, turns, func(t *gate.Thread) {
-				defer func() {
-					for _, c := range each() {
-						out = append(out, aid.Caught(func() { x.do(t, c) }))
-					}
-				}()
-				out = append(out, aid.Caught(func() { x.do(t, row.c) }))
-			})
-			if r.End != api.Cut || aid.Texts(r.Left) != stands || len(r.Log) != turns || len(out) != 1+len(each()) {
-				t.Errorf("R1: %+v, %d turns: %+v", row.c, turns, r)
-			}
-			for _, o := range out {
-				if !gate.Is(o) {
-					t.Errorf("R1: %+v, %d turns: %v comes out", row.c, turns, out)
-				}
+			at, faults := aid.Stops(turns, func(t *gate.Thread, c call) { x.do(t, c) }, row.c, each()...)
+			if at != stands || len(faults) != 0 {
+				t.Errorf("R1: %+v, %d turns: it stands at %s: %v", row.c, turns, at, faults)
 			}
 			stripes, _ := held(x.counter)
 			if got := x.all(nil, call{op: top}, call{op: left}); !slices.Equal(stripes, []int64{3, 4}) || !slices.Equal(got, []answer{{n: 7}, {n: 2}}) {

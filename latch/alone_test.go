@@ -211,7 +211,7 @@ func freeAlone(t *testing.T) {
 	asked, slept := [visit]int{}, 0
 	for seed := range int64(2000) {
 		r := rand.New(rand.NewSource(seed))
-		values := [][]int64{ends(), {0, 1, 2, 3}}[r.Intn(2)]
+		values := [][]int64{aid.Values(), {0, 1, 2, 3}}[r.Intn(2)]
 		of := size{max(values[r.Intn(len(values))], 0), 1 + int64(r.Intn(2))}
 		x, s := of.things(), of.state()
 		for range 60 {
@@ -255,7 +255,7 @@ func none(t *testing.T) {
 	want := []answer{no, no, {}, no, {}, no, no}
 	asks := func(who string, th *gate.Thread) {
 		for what, x := range map[string]things{"nil": null, "made by no call": unmade, "made by new": byNew} {
-			for _, n := range ends() {
+			for _, n := range aid.Values() {
 				calls := each()
 				calls[0].n = n // ErrNil is ahead of ErrArg
 				if got := x.all(th, calls...); !slices.Equal(got, want) {

@@ -1,7 +1,6 @@
 package latch_test
 
 import (
-	"math"
 	"math/rand"
 	"sync/atomic"
 
@@ -172,11 +171,6 @@ func together(hands, meetings int, f func(hand, i int)) {
 			f(h, i)
 		}
 	})
-}
-
-// ends: values at the ends of int64, and some near one another.
-func ends() []int64 {
-	return []int64{0, 1, 2, -1, 3, 7, math.MaxInt64, math.MinInt64, math.MaxInt64 - 1, math.MinInt64 + 1, 1 << 62, 1 << 32}
 }
 
 // someCall: any but a visit; its value is some of those.

@@ -185,7 +185,7 @@ func (w *world) run(t *testing.T, picks []int, most int) api.Report {
 
 // wild: calls of whatever kind; some never end.
 func wild(r *rand.Rand) (size, [][]call) {
-	values := [][]int64{ends(), {0, 1, 1, 2, 3}}[r.Intn(2)]
+	values := [][]int64{aid.Values(), {0, 1, 1, 2, 3}}[r.Intn(2)]
 	of := size{max(values[r.Intn(len(values))], 0), 1 + int64(r.Intn(4))}
 	calls := make([][]call, 1+r.Intn(5))
 	for i := range calls {

@@ -179,22 +179,9 @@ func stopped(t *testing.T) {
 		for turns, stands := range row.stands {
 			x := size{7, 1}.things()
 			x.all(nil, call{op: down, n: 2}, call{op: lock})
-			var out []any
-			r := gate.Run(nil, turns, func(t *gate.Thread) {
-				defer func() {
-					for _, c := range each() {
-						out = append(out, aid.Caught(func() { x.do(t, c) }))
-					}
-				}()
-				out = append(out, aid.Caught(func() { x.do(t, row.c) }))
-			})
-			if r.End == api.Over || aid.Texts(r.Left) != stands || len(r.Log) != turns || len(out) != 1+len(each()) {
-				t.Errorf("R1: %+v, %d turns: %+v", row.c, turns, r)
-			}
-			for _, o := range out {
-				if !gate.Is(o) {
-					t.Errorf("R1: %+v, %d turns: %v comes out", row.c, turns, out)
-				}
+			at, faults := aid.Stops(turns, func(t *gate.Thread, c call) { x.do(t, c) }, row.c, each()...)
+			if at != stands || len(faults) != 0 {
+				t.Errorf("R1: %+v, %d turns: it stands at %s: %v", row.c, turns, at, faults)
 			}
 			if held := x.inside(); held != row.inside[turns] {
 				t.Errorf("R1: %+v, %d turns: the cells hold %v", row.c, turns, held)

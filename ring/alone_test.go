@@ -2,7 +2,6 @@ package ring_test
 
 import (
 	"math"
-	"math/bits"
 	"math/rand"
 	"slices"
 	"testing"
@@ -44,35 +43,22 @@ func examples(t *testing.T, what string, th *gate.Thread) {
 
 // TestHowMany: of which sizes there are rings: the powers of two from 2 to MaxRing, from whatever position.
 func TestHowMany(t *testing.T) {
-	sizes := []int{math.MaxInt, math.MinInt, math.MinInt + 1, 1 << 62, 1 << 32, 1<<32 + 2, -1 << 32, 1 << 31, 1 << 16, 1<<16 + 1, -1 << 62}
-	for n := -api.MaxRing - 2; n <= 3*api.MaxRing; n++ {
-		sizes = append(sizes, n)
-	}
-	made := 0
-	for _, n := range sizes {
-		for _, from := range []int64{0, -1, math.MaxInt64, math.MinInt64} {
-			r, e := ring.New(n, from)
-			if n < 2 || n > api.MaxRing || bits.OnesCount(uint(n)) != 1 {
-				if r != nil || e != api.ErrArg {
-					t.Fatalf("P6.1: New(%d, %d): %d", n, from, e)
-				}
-				continue
-			}
-			if r == nil || e != api.OK || r.Len(nil) != 0 {
-				t.Fatalf("P6.1: New(%d, %d): %d", n, from, e)
-			}
-			made++
+	faults := aid.Rooms(func(n int, from int64) (bool, api.Errno) {
+		r, e := ring.New(n, from)
+		if n := r.Len(nil); n != 0 {
+			t.Errorf("P6.1: at first there are %d", n)
 		}
-	}
-	if made != 12*4 {
-		t.Errorf("P6.1: %d rings", made)
+		return r != nil, e
+	})
+	for _, f := range faults {
+		t.Errorf("P6.1: %s", f)
 	}
 }
 
 // TestNew: what the cells hold at first, and that all of it goes round: of each size, from each position.
 func TestNew(t *testing.T) {
 	for n := 2; n <= api.MaxRing; n *= 2 {
-		l := froms()
+		l := aid.Positions()
 		if n > 64 {
 			l = []int64{-7, math.MaxInt64 - 7}
 		}
@@ -144,10 +130,10 @@ func TestFreeAlone(t *testing.T) {
 	var refused, empty, done int
 	for seed := range int64(2000) {
 		r := rand.New(rand.NewSource(seed))
-		of := size{2 << r.Intn(4), some(r, froms())}
+		of := size{2 << r.Intn(4), aid.Some(r.Intn, aid.Positions())}
 		x, s := of.ring(), of.plain()
 		for i := range 120 {
-			c := call{op: []int{put, put, take, take, length}[r.Intn(5)], v: some(r, ends())}
+			c := call{op: []int{put, put, take, take, length}[r.Intn(5)], v: aid.Some(r.Intn, aid.Values())}
 			if i/20%2 == 0 { // for a while more are put, then more are taken
 				c.op = []int{put, put, put, take, length}[r.Intn(5)]
 			}
@@ -157,7 +143,7 @@ func TestFreeAlone(t *testing.T) {
 				_, l := alone(x, c)
 				got = l[0]
 			} else {
-				got = do(x, some(r, threads), c)
+				got = do(x, aid.Some(r.Intn, threads), c)
 			}
 			if got != want {
 				t.Fatalf("P6.2 to P6.4: seed %d: of %v %+v answers %v, not %v: %+v", seed, of, c, got, want, s)
@@ -190,7 +176,7 @@ func TestNone(t *testing.T) {
 	want := []answer{{e: api.ErrNil}, none, long(0)}
 	asks := func(who string, th *gate.Thread) {
 		for what, x := range map[string]*ring.Ring{"nil": null, "made by no call": {}, "made by new": new(ring.Ring)} {
-			for _, v := range ends() {
+			for _, v := range aid.Values() {
 				for range 3 { // also behind a Put that was refused
 					if got := all(x, th, puts(v), takes, lengths); !slices.Equal(got, want) {
 						t.Errorf("R3: %s, by %s: Put(%d), Take, Len: %v", what, who, v, got)

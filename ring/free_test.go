@@ -227,7 +227,7 @@ func TestBothAreHad(t *testing.T) {
 func newRings(values int) []*ring.Ring {
 	l := make([]*ring.Ring, meetings)
 	for i := range l {
-		l[i] = size{2, froms()[i%len(froms())]}.ring()
+		l[i] = size{2, aid.Positions()[i%len(aid.Positions())]}.ring()
 		for k := range values {
 			l[i].Put(nil, int64(-1-k))
 		}
@@ -250,7 +250,7 @@ func such(is [][meetings]bool, i int) (who, n int) {
 func TestOneOrder(t *testing.T) {
 	for seed := range int64(4000) {
 		r := rand.New(rand.NewSource(seed))
-		of := size{2 << r.Intn(2), some(r, froms())}
+		of := size{2 << r.Intn(2), aid.Some(r.Intn, aid.Positions())}
 		x := of.ring()
 		var calls, done [4][]call
 		var got [4][]answer

@@ -1,9 +1,7 @@
 package ring_test
 
 import (
-	"math"
 	"math/big"
-	"math/rand"
 	"strconv"
 	"strings"
 	"sync/atomic"
@@ -140,18 +138,6 @@ func goesAround(n int) []call {
 	}
 	return append(l, empties(n)...)
 }
-
-// froms: positions at the ends of int64, and about 0.
-func froms() []int64 {
-	return []int64{0, 1, 2, 7, -1, -2, -7, math.MaxInt64, math.MaxInt64 - 1, math.MaxInt64 - 2, math.MaxInt64 - 7, math.MinInt64, math.MinInt64 + 1, math.MinInt64 + 5, 1 << 62, -1 << 62, 1 << 32, 1<<32 - 1, 1<<31 - 2, -1 << 31}
-}
-
-// ends: values at the ends of int64, and some near one another.
-func ends() []int64 {
-	return []int64{0, 1, 2, -1, 3, 7, math.MaxInt64, math.MinInt64, math.MaxInt64 - 1, math.MinInt64 + 1, 1 << 62, 1 << 32}
-}
-
-func some[T any](r *rand.Rand, l []T) T { return l[r.Intn(len(l))] }
 
 // together: so many hands that meet so often, and go on from there at one time, where the machine lets them. (Whoever has looked out for the others long enough goes on alone.)
 func together(hands, meetings int, f func(hand, i int)) {

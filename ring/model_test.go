@@ -239,20 +239,20 @@ func TestRuns(t *testing.T) {
 	ended, met := map[int8]int{}, map[string]int{}
 	for seed := range int64(6000) {
 		r := rand.New(rand.NewSource(seed))
-		of := size{2 << r.Intn(2), some(r, froms())}
+		of := size{2 << r.Intn(2), aid.Some(r.Intn, aid.Positions())}
 		first := slices.Repeat([]call{puts(-1), takes}, r.Intn(3))
 		for i := range r.Intn(of.n + 1) {
 			first = append(first, puts(int64(-10-i)))
 		}
 		calls := make([][]call, 1+r.Intn(5))
-		ops := some(r, [][]int{{put, take}, {put, put, take}, {put, take, take}, {put, put, take, take, length}})
+		ops := aid.Some(r.Intn, [][]int{{put, take}, {put, put, take}, {put, take, take}, {put, put, take, take, length}})
 		for i := range calls {
 			for range r.Intn(9) {
 				v := int64(len(calls[i]) + 100*i)
 				if seed%4 == 0 {
-					v = some(r, ends())
+					v = aid.Some(r.Intn, aid.Values())
 				}
-				calls[i] = append(calls[i], call{op: some(r, ops), v: v})
+				calls[i] = append(calls[i], call{op: aid.Some(r.Intn, ops), v: v})
 			}
 		}
 		most := []int{0, 9, 30, enough, enough, enough}[r.Intn(6)]

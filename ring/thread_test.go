@@ -136,22 +136,9 @@ func TestStopped(t *testing.T) {
 		for turns, stands := range row.stands {
 			x := size{2, 0}.ring()
 			all(x, nil, row.first...)
-			var out []any
-			r := gate.Run(nil, turns, func(t *gate.Thread) {
-				defer func() {
-					for _, c := range []call{puts(3), takes, lengths} {
-						out = append(out, aid.Caught(func() { do(x, t, c) }))
-					}
-				}()
-				out = append(out, aid.Caught(func() { do(x, t, row.c) }))
-			})
-			if r.End != api.Cut || aid.Texts(r.Left) != stands || len(r.Log) != turns || len(out) != 4 {
-				t.Errorf("R1: %+v, %d turns: %+v", row.c, turns, r)
-			}
-			for _, o := range out {
-				if !gate.Is(o) {
-					t.Errorf("R1: %+v, %d turns: %v comes out", row.c, turns, out)
-				}
+			at, faults := aid.Stops(turns, func(t *gate.Thread, c call) { do(x, t, c) }, row.c, puts(3), takes, lengths)
+			if at != stands || len(faults) != 0 {
+				t.Errorf("R1: %+v, %d turns: it stands at %s: %v", row.c, turns, at, faults)
 			}
 			if got := all(x, nil, later...); !slices.Equal(got, row.later[turns]) {
 				t.Errorf("R1, what follows: %+v, %d turns: then %v, not %v", row.c, turns, got, row.later[turns])

@@ -1,0 +1,16 @@
+package aid
+
+import "math"
+
+// Some: one of the list, by a number that comes from intn: from 0 to below what it is handed.
+func Some[T any](intn func(n int) int, l []T) T { return l[intn(len(l))] }
+
+// Values: some at the ends of int64, and some near one another.
+func Values() []int64 {
+	return []int64{0, 1, 2, -1, 3, 7, math.MaxInt64, math.MinInt64, math.MaxInt64 - 1, math.MinInt64 + 1, 1 << 62, 1 << 32}
+}
+
+// Positions: some at the ends of int64, about 0, and where numbers of fewer bits end.
+func Positions() []int64 {
+	return []int64{0, 1, 2, 7, -1, -2, -7, math.MaxInt64, math.MaxInt64 - 1, math.MaxInt64 - 2, math.MaxInt64 - 7, math.MinInt64, math.MinInt64 + 1, math.MinInt64 + 5, 1 << 62, -1 << 62, 1 << 32, 1<<32 - 1, 1<<31 - 2, -1 << 31}
+}
