@@ -37,6 +37,19 @@ func Beside(hands int, f func(hand int)) {
 	all.Wait()
 }
 
+// Together: so many hands that meet so often, and go on from there at one time, where the machine lets them. (Whoever has looked out for the others long enough goes on alone.)
+func Together(hands, meetings int, f func(hand, i int)) {
+	var come atomic.Int64
+	Beside(hands, func(h int) {
+		for i := range meetings {
+			come.Add(1)
+			for looks := 0; looks < 300 && come.Load() < int64((i+1)*hands); looks++ {
+			}
+			f(h, i)
+		}
+	})
+}
+
 // Stopped: a thread that was stopped, and the gate's own value with which it was.
 func Stopped() (stopped *gate.Thread, own any) {
 	var x atomic.Int64

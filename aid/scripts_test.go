@@ -81,6 +81,26 @@ func TestPicks(t *testing.T) {
 	}
 }
 
+// TestPlainly: adds to a number, each of which answers what was there.
+func TestPlainly(t *testing.T) {
+	does := func(state, d int64) (int64, int64) { return state + d, state }
+	for _, row := range []struct {
+		calls, got []int64
+		want       bool
+	}{
+		{nil, nil, true},
+		{[]int64{1, 2, 3}, []int64{7, 8, 10}, true},
+		{[]int64{1, 2, 3}, []int64{7, 8, 9}, false},
+		{[]int64{1, 2, 3}, []int64{6, 8, 10}, false},
+		{[]int64{1, 2, 3}, []int64{7, 8}, false},
+		{[]int64{1, 2}, []int64{7, 8, 10}, false},
+	} {
+		if got := aid.Plainly(7, row.calls, row.got, does); got != row.want {
+			t.Errorf("%+v: %v", row, got)
+		}
+	}
+}
+
 // TestExplained: adds to a number, each of which answers what was there.
 func TestExplained(t *testing.T) {
 	does := func(state, d int64) (int64, int64) { return state + d, state }

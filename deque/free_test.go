@@ -277,7 +277,7 @@ func meet(t *testing.T, values []int64, owner, thief []call) {
 		}
 	}
 	var got [hands][meetings][]answer
-	together(hands, meetings, func(h, i int) { got[h][i] = all(deques[i], nil, [][]call{owner, thief}[min(h, 1)]...) })
+	aid.Together(hands, meetings, func(h, i int) { got[h][i] = all(deques[i], nil, [][]call{owner, thief}[min(h, 1)]...) })
 	for i, d := range deques {
 		var had []int64
 		for h := range got {

@@ -3,7 +3,6 @@ package deque_test
 import (
 	"strconv"
 	"strings"
-	"sync/atomic"
 
 	"treadle/aid"
 	"treadle/api"
@@ -140,16 +139,8 @@ func does(s plain, c call) (plain, answer) {
 	return s, stolen(v)
 }
 
-// asPlain: whether a deque answers calls so.
-func asPlain(s plain, calls []call, got []answer) bool {
-	for i, c := range calls {
-		var want answer
-		if s, want = does(s, c); i >= len(got) || got[i] != want {
-			return false
-		}
-	}
-	return true
-}
+// asPlain: whether one alone is answered so.
+func asPlain(s plain, calls []call, got []answer) bool { return aid.Plainly(s, calls, got, does) }
 
 // empties: calls by which all is got, at both ends by turns, and both are refused; and a length ahead of it and behind it.
 func empties(n int) []call {
@@ -167,17 +158,4 @@ func goesAround(n int) []call {
 		l = append(l, pushes(int64(-1000-i)))
 	}
 	return append(l, empties(n)...)
-}
-
-// together: so many hands that meet so often, and go on from there at one time, where the machine lets them. (Whoever has looked out for the others long enough goes on alone.)
-func together(hands, meetings int, f func(hand, i int)) {
-	var come atomic.Int64
-	aid.Beside(hands, func(h int) {
-		for i := range meetings {
-			come.Add(1)
-			for looks := 0; looks < 300 && come.Load() < int64((i+1)*hands); looks++ {
-			}
-			f(h, i)
-		}
-	})
 }

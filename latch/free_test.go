@@ -200,7 +200,7 @@ func TestOneIsLast(t *testing.T) {
 		latches[i], _ = latch.New(hands - 1)
 	}
 	var refused [hands][meetings]bool
-	together(hands, meetings, func(h, i int) { refused[h][i] = latches[i].Down(nil, 1) != api.OK })
+	aid.Together(hands, meetings, func(h, i int) { refused[h][i] = latches[i].Down(nil, 1) != api.OK })
 	for i, l := range latches {
 		if n := such(refused[:], i); n != 1 || l.Left(nil) != 0 {
 			t.Fatalf("what follows: %d are refused, %d left", n, l.Left(nil))
@@ -261,7 +261,7 @@ func TestOneIsIn(t *testing.T) {
 	synctest.Test(t, func(t *testing.T) {
 		k := latch.NewLock()
 		var in, wrong atomic.Int64
-		together(hands, meetings, func(h, i int) {
+		aid.Together(hands, meetings, func(h, i int) {
 			tries := i%4 == 0 && h%2 == 0
 			if tries && !k.Try(nil) {
 				return
@@ -287,7 +287,7 @@ func TestOneIsIn(t *testing.T) {
 func TestOneTries(t *testing.T) {
 	locks := newLocks(meetings)
 	var has [hands][meetings]bool
-	together(hands, meetings, func(h, i int) { has[h][i] = locks[i].Try(nil) })
+	aid.Together(hands, meetings, func(h, i int) { has[h][i] = locks[i].Try(nil) })
 	for i, k := range locks {
 		if n := such(has[:], i); n != 1 || k.Unlock(nil) != api.OK {
 			t.Fatalf("what follows: %d have it", n)
@@ -302,7 +302,7 @@ func TestOneUnlocks(t *testing.T) {
 		k.Try(nil)
 	}
 	var did [hands][meetings]bool
-	together(hands, meetings, func(h, i int) { did[h][i] = locks[i].Unlock(nil) == api.OK })
+	aid.Together(hands, meetings, func(h, i int) { did[h][i] = locks[i].Unlock(nil) == api.OK })
 	for i, k := range locks {
 		if n := such(did[:], i); n != 1 || !k.Try(nil) {
 			t.Fatalf("P5.2: %d unlock it", n)

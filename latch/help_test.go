@@ -2,9 +2,7 @@ package latch_test
 
 import (
 	"math/rand"
-	"sync/atomic"
 
-	"treadle/aid"
 	"treadle/api"
 	"treadle/gate"
 	"treadle/latch"
@@ -158,19 +156,6 @@ func doesOfLock(s state, c call) (state, answer) {
 		return s, answer{e: api.ErrState}
 	}
 	return s, answer{}
-}
-
-// together: so many hands that meet so often, and go on from there at one time, where the machine lets them. (Whoever has looked out for the others long enough goes on alone.)
-func together(hands, meetings int, f func(hand, i int)) {
-	var come atomic.Int64
-	aid.Beside(hands, func(h int) {
-		for i := range meetings {
-			come.Add(1)
-			for looks := 0; looks < 300 && come.Load() < int64((i+1)*hands); looks++ {
-			}
-			f(h, i)
-		}
-	})
 }
 
 // someCall: any but a visit; its value is some of those.

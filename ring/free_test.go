@@ -89,17 +89,6 @@ func TestNothingIsLost(t *testing.T) {
 	}
 }
 
-// asPlain: whether a queue answers calls so.
-func asPlain(s plain, calls []call, got []answer) bool {
-	for i, c := range calls {
-		var want answer
-		if s, want = does(s, c); got[i] != want {
-			return false
-		}
-	}
-	return true
-}
-
 // TestRefusedInVain: with one who takes a Put is refused just if its place is not free yet; with one who puts a Take is, just if its place is not full yet.
 func TestRefusedInVain(t *testing.T) {
 	const each = 40000
@@ -171,7 +160,7 @@ func TestLengths(t *testing.T) {
 func TestOneHasThePlace(t *testing.T) {
 	rings := newRings(1)
 	var has [hands][meetings]bool
-	together(hands, meetings, func(h, i int) { has[h][i] = rings[i].Put(nil, int64(h)) == api.OK })
+	aid.Together(hands, meetings, func(h, i int) { has[h][i] = rings[i].Put(nil, int64(h)) == api.OK })
 	for i, x := range rings {
 		who, n := such(has[:], i)
 		if got := all(x, nil, lengths, takes, takes, takes, lengths); n != 1 || !slices.Equal(got, []answer{long(2), took(-1), took(int64(who)), none, long(0)}) {
@@ -184,7 +173,7 @@ func TestOneHasThePlace(t *testing.T) {
 func TestOneHasTheValue(t *testing.T) {
 	rings := newRings(1)
 	var has [hands][meetings]bool
-	together(hands, meetings, func(h, i int) {
+	aid.Together(hands, meetings, func(h, i int) {
 		v, ok := rings[i].Take(nil)
 		has[h][i] = ok && v == -1
 	})
@@ -201,7 +190,7 @@ func TestBothAreHad(t *testing.T) {
 	empty, filled := newRings(0), newRings(2)
 	var did [hands][meetings]bool
 	var got [hands][meetings]answer
-	together(hands, meetings, func(h, i int) {
+	aid.Together(hands, meetings, func(h, i int) {
 		did[h][i] = empty[i].Put(nil, int64(h)) == api.OK
 		got[h][i] = do(filled[i], nil, takes)
 	})

@@ -4,7 +4,6 @@ import (
 	"math/big"
 	"strconv"
 	"strings"
-	"sync/atomic"
 
 	"treadle/aid"
 	"treadle/api"
@@ -121,6 +120,9 @@ func does(s plain, c call) (plain, answer) {
 	return s, long(int64(s.has))
 }
 
+// asPlain: whether one alone is answered so.
+func asPlain(s plain, calls []call, got []answer) bool { return aid.Plainly(s, calls, got, does) }
+
 // empties: calls by which all is taken, and a length at both ends.
 func empties(n int) []call {
 	l := []call{lengths}
@@ -137,17 +139,4 @@ func goesAround(n int) []call {
 		l = append(l, puts(int64(-1000-i)))
 	}
 	return append(l, empties(n)...)
-}
-
-// together: so many hands that meet so often, and go on from there at one time, where the machine lets them. (Whoever has looked out for the others long enough goes on alone.)
-func together(hands, meetings int, f func(hand, i int)) {
-	var come atomic.Int64
-	aid.Beside(hands, func(h int) {
-		for i := range meetings {
-			come.Add(1)
-			for looks := 0; looks < 300 && come.Load() < int64((i+1)*hands); looks++ {
-			}
-			f(h, i)
-		}
-	})
 }
