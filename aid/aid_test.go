@@ -197,6 +197,15 @@ func TestSome(t *testing.T) {
 	}
 }
 
+func TestSizes(t *testing.T) {
+	l := aid.Sizes()
+	for _, n := range []int{math.MaxInt, math.MinInt, -1, 0, 1, api.MaxRing, api.MaxRing + 1, api.MaxNodes, api.MaxNodes + 1} {
+		if !slices.Contains(l, n) {
+			t.Errorf("%d is missing", n)
+		}
+	}
+}
+
 func TestRooms(t *testing.T) {
 	fits := func(n int) bool { return n >= 2 && n <= api.MaxRing && n&(n-1) == 0 }
 	for what, row := range map[string]struct {

@@ -10,11 +10,7 @@ import (
 
 // Rooms: what is found of things of n places whose positions begin with from, as there are such of each power of two from 2 to MaxRing, and ErrArg is answered of each other n, whatever from. makes: whether one is made, and the error.
 func Rooms(makes func(n int, from int64) (bool, api.Errno)) (faults []string) {
-	sizes := []int{math.MaxInt, math.MinInt, math.MinInt + 1, 1 << 62, 1 << 32, 1<<32 + 2, -1 << 32, 1 << 31, 1 << 16, 1<<16 + 1, -1 << 62}
-	for n := -api.MaxRing - 2; n <= 3*api.MaxRing; n++ {
-		sizes = append(sizes, n)
-	}
-	for _, n := range sizes {
+	for _, n := range Sizes() {
 		for _, from := range []int64{0, -1, math.MaxInt64, math.MinInt64} {
 			want := api.ErrArg
 			if n >= 2 && n <= api.MaxRing && bits.OnesCount(uint(n)) == 1 {

@@ -48,12 +48,3 @@ func (l *Scripts[C, A]) Ends(r api.Report, held map[int]int64) (map[int]int64, [
 	ends := of.Ends(held)
 	return ends, append(faults, of.Faults()...)
 }
-
-// Picks: some picks, of numbers that come from intn: from 0 to below what it is handed.
-func Picks(intn func(n int) int, most int) []int {
-	l := make([]int, intn(most+1))
-	for i := range l {
-		l[i] = intn(9) - 4
-	}
-	return l
-}

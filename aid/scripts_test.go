@@ -1,7 +1,6 @@
 package aid_test
 
 import (
-	"math/rand"
 	"slices"
 	"sync/atomic"
 	"testing"
@@ -63,21 +62,6 @@ func TestScriptsThatAreNotKept(t *testing.T) {
 		if _, faults := l.Ends(r, nil); len(faults) == 0 {
 			t.Errorf("%s: no fault", what)
 		}
-	}
-}
-
-func TestPicks(t *testing.T) {
-	r := rand.New(rand.NewSource(1))
-	lengths, values := map[int]bool{}, map[int]bool{}
-	for range 1000 {
-		l := aid.Picks(r.Intn, 5)
-		lengths[len(l)] = true
-		for _, v := range l {
-			values[v] = true
-		}
-	}
-	if len(lengths) != 6 || !lengths[0] || !lengths[5] || len(values) != 9 || !values[-4] || !values[4] {
-		t.Errorf("%v, %v", lengths, values)
 	}
 }
 

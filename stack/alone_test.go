@@ -30,11 +30,7 @@ func examples(t *testing.T, what string, th *gate.Thread) {
 
 // TestHowMany: of how many nodes there are stacks.
 func TestHowMany(t *testing.T) {
-	sizes := []int{math.MaxInt, math.MinInt, math.MinInt + 1, 1 << 62, -1 << 62, 1 << 32, 1<<32 + 1, -1 << 32, 1 << 31, 1 << 16, 1<<16 + 1, 1<<16 - 1}
-	for n := -api.MaxNodes - 2; n <= 3*api.MaxNodes; n++ {
-		sizes = append(sizes, n)
-	}
-	for _, n := range sizes {
+	for _, n := range aid.Sizes() {
 		want := api.ErrArg
 		if n >= 1 && n <= 4096 {
 			want = api.OK

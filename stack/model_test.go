@@ -289,7 +289,7 @@ func TestRuns(t *testing.T) {
 		w := newWorld(of, first, calls)
 		picks := aid.Picks(r.Intn, 60)
 		if seed%2 == 0 {
-			picks = bursts(r)
+			picks = aid.Bursts(r.Intn, []int{1, 2, 3, 6, 7, 14, 21, 28})
 		}
 		report := w.run(t, picks, most)
 		if most == enough && report.End != api.Over {
@@ -313,14 +313,6 @@ func TestRuns(t *testing.T) {
 			t.Errorf("the threads are no good: %v", met)
 		}
 	}
-}
-
-// bursts: picks by which each thread goes for a while, as the others stand.
-func bursts(r *rand.Rand) (picks []int) {
-	for range r.Intn(12) {
-		picks = append(picks, slices.Repeat([]int{r.Intn(5)}, aid.Some(r.Intn, []int{1, 2, 3, 6, 7, 14, 21, 28}))...)
-	}
-	return picks
 }
 
 // someCalls: those that one thread makes of a stack of n nodes ahead of a run, so that its nodes come to lie as they may; and those of some threads.

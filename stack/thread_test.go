@@ -30,19 +30,11 @@ func (m meeting) look(t *testing.T) {
 	}
 }
 
-// goes: picks: so often this one, so often that one, and so on.
-func goes(turns ...[2]int) (picks []int) {
-	for _, x := range turns {
-		picks = append(picks, slices.Repeat(x[:1], x[1])...)
-	}
-	return picks
-}
-
 // TestTraps: a node that comes back to the top while somebody believes what he has read of it.
 func TestTraps(t *testing.T) {
 	one, two := []call{pushes(1)}, []call{pushes(1), pushes(2)}
 	for _, m := range []meeting{
-		{"the chapter's", size{2, 0}, two, [][]call{{pops}, {pops, pops, pushes(3), pushes(4)}}, goes([2]int{0, 2}, [2]int{1, 28}),
+		{"the chapter's", size{2, 0}, two, [][]call{{pops}, {pops, pops, pushes(3), pushes(4)}}, aid.Goes([2]int{0, 2}, [2]int{1, 28}),
 			"0 load c0: 131074; 0 load c1: 1; " +
 				"1 load c0: 131074; 1 load c1: 1; 1 cas c0 131074 196609: 131074 ok; 1 load c2: 2; 1 load c3: 131072; 1 store c1 0: 1; 1 cas c3 131072 196610: 131072 ok; " +
 				"1 load c0: 196609; 1 load c4: 0; 1 cas c0 196609 262144: 196609 ok; 1 load c5: 1; 1 load c3: 196610; 1 store c4 2: 0; 1 cas c3 196610 262145: 196610 ok; " +
@@ -50,7 +42,7 @@ func TestTraps(t *testing.T) {
 				"1 load c3: 327682; 1 load c1: 0; 1 cas c3 327682 393216: 327682 ok; 1 store c2 4: 2; 1 load c0: 327681; 1 store c1 1: 0; 1 cas c0 327681 393218: 327681 ok; " +
 				"0 cas c0 131074 196609: 393218 no; 0 load c0: 393218; 0 load c1: 1; 0 cas c0 393218 458753: 393218 ok; 0 load c2: 4; 0 load c3: 393216; 0 store c1 0: 1; 0 cas c3 393216 458754: 393216 ok",
 			[][]answer{{popped(4)}, {popped(2), popped(1), okay, okay}}},
-		{"it has come back, and what was beneath it has not", size{2, 0}, two, [][]call{{pops, pops}, {pops, pops, pushes(3)}, {pushes(4)}}, goes([2]int{0, 2}, [2]int{1, 14}, [2]int{2, 3}, [2]int{1, 7}),
+		{"it has come back, and what was beneath it has not", size{2, 0}, two, [][]call{{pops, pops}, {pops, pops, pushes(3)}, {pushes(4)}}, aid.Goes([2]int{0, 2}, [2]int{1, 14}, [2]int{2, 3}, [2]int{1, 7}),
 			"0 load c0: 131074; 0 load c1: 1; " +
 				"1 load c0: 131074; 1 load c1: 1; 1 cas c0 131074 196609: 131074 ok; 1 load c2: 2; 1 load c3: 131072; 1 store c1 0: 1; 1 cas c3 131072 196610: 131072 ok; " +
 				"1 load c0: 196609; 1 load c4: 0; 1 cas c0 196609 262144: 196609 ok; 1 load c5: 1; 1 load c3: 196610; 1 store c4 2: 0; 1 cas c3 196610 262145: 196610 ok; " +
@@ -60,19 +52,19 @@ func TestTraps(t *testing.T) {
 				"0 load c0: 393217; 0 load c4: 2; 0 cas c0 393217 458754: 393217 ok; 0 load c5: 4; 0 load c3: 393216; 0 store c4 0: 2; 0 cas c3 393216 458753: 393216 ok; " +
 				"0 load c0: 458754; 0 load c1: 0; 0 cas c0 458754 524288: 458754 ok; 0 load c2: 3; 0 load c3: 458753; 0 store c1 1: 0; 0 cas c3 458753 524290: 458753 ok",
 			[][]answer{{popped(4), popped(3)}, {popped(2), popped(1), okay}, {okay}}},
-		{"the only node", size{1, 0}, one, [][]call{{pops}, {pops, pushes(3)}}, goes([2]int{0, 2}, [2]int{1, 14}),
+		{"the only node", size{1, 0}, one, [][]call{{pops}, {pops, pushes(3)}}, aid.Goes([2]int{0, 2}, [2]int{1, 14}),
 			"0 load c0: 65537; 0 load c1: 0; " +
 				"1 load c0: 65537; 1 load c1: 0; 1 cas c0 65537 131072: 65537 ok; 1 load c2: 1; 1 load c3: 65536; 1 store c1 0: 0; 1 cas c3 65536 131073: 65536 ok; " +
 				"1 load c3: 131073; 1 load c1: 0; 1 cas c3 131073 196608: 131073 ok; 1 store c2 3: 1; 1 load c0: 131072; 1 store c1 0: 0; 1 cas c0 131072 196609: 131072 ok; " +
 				"0 cas c0 65537 131072: 196609 no; 0 load c0: 196609; 0 load c1: 0; 0 cas c0 196609 262144: 196609 ok; 0 load c2: 3; 0 load c3: 196608; 0 store c1 0: 0; 0 cas c3 196608 262145: 196608 ok",
 			[][]answer{{popped(3)}, {popped(1), okay}}},
-		{"as the tag goes round", size{1, -3}, one, [][]call{{pops}, {pops, pushes(3)}}, goes([2]int{0, 2}, [2]int{1, 14}),
+		{"as the tag goes round", size{1, -3}, one, [][]call{{pops}, {pops, pushes(3)}}, aid.Goes([2]int{0, 2}, [2]int{1, 14}),
 			"0 load c0: -131071; 0 load c1: 0; " +
 				"1 load c0: -131071; 1 load c1: 0; 1 cas c0 -131071 -65536: -131071 ok; 1 load c2: 1; 1 load c3: -131072; 1 store c1 0: 0; 1 cas c3 -131072 -65535: -131072 ok; " +
 				"1 load c3: -65535; 1 load c1: 0; 1 cas c3 -65535 0: -65535 ok; 1 store c2 3: 1; 1 load c0: -65536; 1 store c1 0: 0; 1 cas c0 -65536 1: -65536 ok; " +
 				"0 cas c0 -131071 -65536: 1 no; 0 load c0: 1; 0 load c1: 0; 0 cas c0 1 65536: 1 ok; 0 load c2: 3; 0 load c3: 0; 0 store c1 0: 0; 0 cas c3 0 65537: 0 ok",
 			[][]answer{{popped(3)}, {popped(1), okay}}},
-		{"a free node", size{3, 0}, nil, [][]call{{pushes(7)}, {pushes(8), pops}, {pushes(9)}}, goes([2]int{0, 2}, [2]int{1, 3}, [2]int{2, 7}, [2]int{1, 11}),
+		{"a free node", size{3, 0}, nil, [][]call{{pushes(7)}, {pushes(8), pops}, {pushes(9)}}, aid.Goes([2]int{0, 2}, [2]int{1, 3}, [2]int{2, 7}, [2]int{1, 11}),
 			"0 load c0: 1; 0 load c1: 2; " +
 				"1 load c0: 1; 1 load c1: 2; 1 cas c0 1 65538: 1 ok; " +
 				"2 load c0: 65538; 2 load c2: 3; 2 cas c0 65538 131075: 65538 ok; 2 store c3 9: 0; 2 load c4: 0; 2 store c2 0: 3; 2 cas c4 0 65538: 0 ok; " +
@@ -80,13 +72,13 @@ func TestTraps(t *testing.T) {
 				"1 load c4: 131073; 1 load c1: 2; 1 cas c4 131073 196610: 131073 ok; 1 load c5: 8; 1 load c0: 131075; 1 store c1 3: 2; 1 cas c0 131075 196609: 131075 ok; " +
 				"0 cas c0 1 65538: 196609 no; 0 load c0: 196609; 0 load c1: 3; 0 cas c0 196609 262147: 196609 ok; 0 store c5 7: 8; 0 load c4: 196610; 0 store c1 2: 3; 0 cas c4 196610 262145: 196610 ok",
 			[][]answer{{okay}, {okay, popped(8)}, {okay}}},
-		{"on which one is to be laid", size{2, 0}, one, [][]call{{pushes(7)}, {pops, pushes(3)}}, goes([2]int{0, 6}, [2]int{1, 14}),
+		{"on which one is to be laid", size{2, 0}, one, [][]call{{pushes(7)}, {pops, pushes(3)}}, aid.Goes([2]int{0, 6}, [2]int{1, 14}),
 			"0 load c0: 65538; 0 load c1: 0; 0 cas c0 65538 131072: 65538 ok; 0 store c2 7: 0; 0 load c3: 65537; 0 store c1 1: 0; " +
 				"1 load c3: 65537; 1 load c4: 0; 1 cas c3 65537 131072: 65537 ok; 1 load c5: 1; 1 load c0: 131072; 1 store c4 0: 0; 1 cas c0 131072 196609: 131072 ok; " +
 				"1 load c0: 196609; 1 load c4: 0; 1 cas c0 196609 262144: 196609 ok; 1 store c5 3: 1; 1 load c3: 131072; 1 store c4 0: 0; 1 cas c3 131072 196609: 131072 ok; " +
 				"0 cas c3 65537 131074: 196609 no; 0 load c3: 196609; 0 store c1 1: 1; 0 cas c3 196609 262146: 196609 ok",
 			[][]answer{{okay}, {popped(1), okay}}},
-		{"no node is free any more when what was free is looked into", size{1, 0}, nil, [][]call{{pushes(7)}, {pushes(8)}}, goes([2]int{0, 1}, [2]int{1, 7}),
+		{"no node is free any more when what was free is looked into", size{1, 0}, nil, [][]call{{pushes(7)}, {pushes(8)}}, aid.Goes([2]int{0, 1}, [2]int{1, 7}),
 			"0 load c0: 1; " +
 				"1 load c0: 1; 1 load c1: 0; 1 cas c0 1 65536: 1 ok; 1 store c2 8: 0; 1 load c3: 0; 1 store c1 0: 0; 1 cas c3 0 65537: 0 ok; " +
 				"0 load c1: 0; 0 cas c0 1 65536: 65536 no; 0 load c0: 65536",
@@ -100,48 +92,48 @@ func TestTraps(t *testing.T) {
 func TestAmongOthers(t *testing.T) {
 	one, two := []call{pushes(1)}, []call{pushes(1), pushes(2)}
 	for _, m := range []meeting{
-		{"who reads of a node that is another's", size{2, 0}, two, [][]call{{pops}, {pops}}, goes([2]int{0, 1}, [2]int{1, 7}),
+		{"who reads of a node that is another's", size{2, 0}, two, [][]call{{pops}, {pops}}, aid.Goes([2]int{0, 1}, [2]int{1, 7}),
 			"0 load c0: 131074; " +
 				"1 load c0: 131074; 1 load c1: 1; 1 cas c0 131074 196609: 131074 ok; 1 load c2: 2; 1 load c3: 131072; 1 store c1 0: 1; 1 cas c3 131072 196610: 131072 ok; " +
 				"0 load c1: 0; 0 cas c0 131074 196608: 196609 no; 0 load c0: 196609; 0 load c4: 0; 0 cas c0 196609 262144: 196609 ok; 0 load c5: 1; 0 load c3: 196610; 0 store c4 2: 0; 0 cas c3 196610 262145: 196610 ok",
 			[][]answer{{popped(1)}, {popped(2)}}},
-		{"a Push is forestalled as it gets", size{2, 0}, nil, [][]call{{pushes(7)}, {pushes(8)}}, goes([2]int{0, 2}, [2]int{1, 3}, [2]int{0, 8}),
+		{"a Push is forestalled as it gets", size{2, 0}, nil, [][]call{{pushes(7)}, {pushes(8)}}, aid.Goes([2]int{0, 2}, [2]int{1, 3}, [2]int{0, 8}),
 			"0 load c0: 1; 0 load c1: 2; 1 load c0: 1; 1 load c1: 2; 1 cas c0 1 65538: 1 ok; " +
 				"0 cas c0 1 65538: 65538 no; 0 load c0: 65538; 0 load c2: 0; 0 cas c0 65538 131072: 65538 ok; 0 store c3 7: 0; 0 load c4: 0; 0 store c2 0: 0; 0 cas c4 0 65538: 0 ok; " +
 				"1 store c5 8: 0; 1 load c4: 65538; 1 store c1 2: 2; 1 cas c4 65538 131073: 65538 ok",
 			[][]answer{{okay}, {okay}}},
-		{"and then no node is free", size{1, 0}, nil, [][]call{{pushes(7)}, {pushes(8)}}, goes([2]int{0, 2}, [2]int{1, 3}, [2]int{0, 2}),
+		{"and then no node is free", size{1, 0}, nil, [][]call{{pushes(7)}, {pushes(8)}}, aid.Goes([2]int{0, 2}, [2]int{1, 3}, [2]int{0, 2}),
 			"0 load c0: 1; 0 load c1: 0; 1 load c0: 1; 1 load c1: 0; 1 cas c0 1 65536: 1 ok; 0 cas c0 1 65536: 65536 no; 0 load c0: 65536; " +
 				"1 store c2 8: 0; 1 load c3: 0; 1 store c1 0: 0; 1 cas c3 0 65537: 0 ok",
 			[][]answer{{full}, {okay}}},
-		{"a Push is forestalled as it lays: the last who does is on top", size{2, 0}, nil, [][]call{{pushes(7)}, {pushes(8)}}, goes([2]int{0, 6}, [2]int{1, 7}),
+		{"a Push is forestalled as it lays: the last who does is on top", size{2, 0}, nil, [][]call{{pushes(7)}, {pushes(8)}}, aid.Goes([2]int{0, 6}, [2]int{1, 7}),
 			"0 load c0: 1; 0 load c1: 2; 0 cas c0 1 65538: 1 ok; 0 store c2 7: 0; 0 load c3: 0; 0 store c1 0: 2; " +
 				"1 load c0: 65538; 1 load c4: 0; 1 cas c0 65538 131072: 65538 ok; 1 store c5 8: 0; 1 load c3: 0; 1 store c4 0: 0; 1 cas c3 0 65538: 0 ok; " +
 				"0 cas c3 0 65537: 65538 no; 0 load c3: 65538; 0 store c1 2: 0; 0 cas c3 65538 131073: 65538 ok",
 			[][]answer{{okay}, {okay}}},
-		{"a Pop is forestalled as it gets, and then nothing is there", size{2, 0}, one, [][]call{{pops}, {pops}}, goes([2]int{0, 2}, [2]int{1, 3}, [2]int{0, 2}),
+		{"a Pop is forestalled as it gets, and then nothing is there", size{2, 0}, one, [][]call{{pops}, {pops}}, aid.Goes([2]int{0, 2}, [2]int{1, 3}, [2]int{0, 2}),
 			"0 load c0: 65537; 0 load c1: 0; 1 load c0: 65537; 1 load c1: 0; 1 cas c0 65537 131072: 65537 ok; 0 cas c0 65537 131072: 131072 no; 0 load c0: 131072; " +
 				"1 load c2: 1; 1 load c3: 65538; 1 store c1 2: 0; 1 cas c3 65538 131073: 65538 ok",
 			[][]answer{{no}, {popped(1)}}},
-		{"a Pop is forestalled as it gets, and another value is there", size{2, 0}, one, [][]call{{pops}, {pushes(5)}}, goes([2]int{0, 2}, [2]int{1, 7}),
+		{"a Pop is forestalled as it gets, and another value is there", size{2, 0}, one, [][]call{{pops}, {pushes(5)}}, aid.Goes([2]int{0, 2}, [2]int{1, 7}),
 			"0 load c0: 65537; 0 load c1: 0; " +
 				"1 load c2: 65538; 1 load c3: 0; 1 cas c2 65538 131072: 65538 ok; 1 store c4 5: 0; 1 load c0: 65537; 1 store c3 1: 0; 1 cas c0 65537 131074: 65537 ok; " +
 				"0 cas c0 65537 131072: 131074 no; 0 load c0: 131074; 0 load c3: 1; 0 cas c0 131074 196609: 131074 ok; 0 load c4: 5; 0 load c2: 131072; 0 store c3 0: 1; 0 cas c2 131072 196610: 131072 ok",
 			[][]answer{{popped(5)}, {okay}}},
-		{"a Pop is forestalled as it lays", size{2, 0}, two, [][]call{{pops}, {pops}}, goes([2]int{0, 6}, [2]int{1, 7}),
+		{"a Pop is forestalled as it lays", size{2, 0}, two, [][]call{{pops}, {pops}}, aid.Goes([2]int{0, 6}, [2]int{1, 7}),
 			"0 load c0: 131074; 0 load c1: 1; 0 cas c0 131074 196609: 131074 ok; 0 load c2: 2; 0 load c3: 131072; 0 store c1 0: 1; " +
 				"1 load c0: 196609; 1 load c4: 0; 1 cas c0 196609 262144: 196609 ok; 1 load c5: 1; 1 load c3: 131072; 1 store c4 0: 0; 1 cas c3 131072 196609: 131072 ok; " +
 				"0 cas c3 131072 196610: 196609 no; 0 load c3: 196609; 0 store c1 1: 0; 0 cas c3 196609 262146: 196609 ok",
 			[][]answer{{popped(2)}, {popped(1)}}},
-		{"a Pop in its midst holds a node", size{1, 0}, one, [][]call{{pops}, {pushes(5), pops, pushes(6)}}, goes([2]int{0, 3}, [2]int{1, 2}, [2]int{0, 4}),
+		{"a Pop in its midst holds a node", size{1, 0}, one, [][]call{{pops}, {pushes(5), pops, pushes(6)}}, aid.Goes([2]int{0, 3}, [2]int{1, 2}, [2]int{0, 4}),
 			"0 load c0: 65537; 0 load c1: 0; 0 cas c0 65537 131072: 65537 ok; 1 load c2: 65536; 1 load c0: 131072; 0 load c3: 1; 0 load c2: 65536; 0 store c1 0: 0; 0 cas c2 65536 131073: 65536 ok; " +
 				"1 load c2: 131073; 1 load c1: 0; 1 cas c2 131073 196608: 131073 ok; 1 store c3 6: 1; 1 load c0: 131072; 1 store c1 0: 0; 1 cas c0 131072 196609: 131072 ok",
 			[][]answer{{popped(1)}, {full, no, okay}}},
-		{"a value is there when its node is laid, not ahead of that", size{1, 0}, nil, [][]call{{pushes(7)}, {pops, pops}}, goes([2]int{0, 6}, [2]int{1, 1}, [2]int{0, 1}),
+		{"a value is there when its node is laid, not ahead of that", size{1, 0}, nil, [][]call{{pushes(7)}, {pops, pops}}, aid.Goes([2]int{0, 6}, [2]int{1, 1}, [2]int{0, 1}),
 			"0 load c0: 1; 0 load c1: 0; 0 cas c0 1 65536: 1 ok; 0 store c2 7: 0; 0 load c3: 0; 0 store c1 0: 0; 1 load c3: 0; 0 cas c3 0 65537: 0 ok; " +
 				"1 load c3: 65537; 1 load c1: 0; 1 cas c3 65537 131072: 65537 ok; 1 load c2: 7; 1 load c0: 65536; 1 store c1 0: 0; 1 cas c0 65536 131073: 65536 ok",
 			[][]answer{{okay}, {no, popped(7)}}},
-		{"who has a node is not disturbed by others", size{3, 0}, two, [][]call{{pops}, {pushes(5), pops, pops, pushes(6)}}, goes([2]int{0, 3}, [2]int{1, 28}),
+		{"who has a node is not disturbed by others", size{3, 0}, two, [][]call{{pops}, {pushes(5), pops, pops, pushes(6)}}, aid.Goes([2]int{0, 3}, [2]int{1, 28}),
 			"0 load c0: 131074; 0 load c1: 1; 0 cas c0 131074 196609: 131074 ok; " +
 				"1 load c2: 131075; 1 load c3: 0; 1 cas c2 131075 196608: 131075 ok; 1 store c4 5: 0; 1 load c0: 196609; 1 store c3 1: 0; 1 cas c0 196609 262147: 196609 ok; " +
 				"1 load c0: 262147; 1 load c3: 1; 1 cas c0 262147 327681: 262147 ok; 1 load c4: 5; 1 load c2: 196608; 1 store c3 0: 1; 1 cas c2 196608 262147: 196608 ok; " +
@@ -168,7 +160,7 @@ func TestLate(t *testing.T) {
 					for stands := range 8 {
 						for _, tag := range []int64{0, -2, lastTag - 1} {
 							w := newWorld(size{n, tag}, fills(n)[:has], [][]call{{c, pops}, other})
-							r := w.run(t, goes([2]int{0, stands}, [2]int{1, 7 * len(other)}), api.MaxTurns)
+							r := w.run(t, aid.Goes([2]int{0, stands}, [2]int{1, 7 * len(other)}), api.MaxTurns)
 							if t.Failed() || r.End != api.Over {
 								t.Fatalf("of %d, with %d values, tag %d: %v stands at %d, beside %v: %s", n, has, tag, c, stands, other, aid.Texts(r.Log))
 							}
@@ -204,10 +196,10 @@ func TestAnew(t *testing.T) {
 	} {
 		for _, tag := range []int64{0, -times} {
 			var other []call
-			picks := goes([2]int{0, row.first})
+			picks := aid.Goes([2]int{0, row.first})
 			for range times {
 				other = append(other, pushes(5), pops)
-				picks = append(picks, goes([2]int{0, 2}, [2]int{1, 14}, [2]int{0, 1})...)
+				picks = append(picks, aid.Goes([2]int{0, 2}, [2]int{1, 14}, [2]int{0, 1})...)
 			}
 			w := newWorld(size{3, tag}, []call{pushes(1)}, [][]call{{row.c}, other})
 			r := w.run(t, picks, api.MaxTurns)
