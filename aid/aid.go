@@ -95,8 +95,11 @@ func Every(turns int, play func(picks []int) (ready []int)) int {
 	}
 }
 
-// Text: an entry: who, what, which cell, what was asked: what was; of a Cas whether it was done.
+// Text: an entry: who, what, which cell, what was asked: what was; of a Cas whether it was done. Of a mark: who, its number, its kind.
 func Text(a api.Access) string {
+	if a.Op == api.OpMark {
+		return strconv.Itoa(a.Thread) + " mark " + strconv.FormatInt(a.Arg, 10) + " " + strconv.FormatInt(a.New, 10)
+	}
 	l := []string{strconv.Itoa(a.Thread), named(a.Op), "c" + strconv.Itoa(a.Cell)}
 	if a.Op != api.OpLoad {
 		l = append(l, strconv.FormatInt(a.Arg, 10))

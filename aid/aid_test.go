@@ -162,6 +162,13 @@ func TestTexts(t *testing.T) {
 	if s := aid.Texts(run().Log); s != want {
 		t.Errorf("%s, not %s", s, want)
 	}
+	marks := gate.Run(nil, 0, nil, func(t *gate.Thread) {
+		t.Mark(7, 2)
+		t.Mark(-1, math.MinInt64)
+	})
+	if s := aid.Texts(marks.Log); s != "1 mark 7 2; 1 mark -1 -9223372036854775808" {
+		t.Errorf("marks: %s", s)
+	}
 }
 
 func TestThreads(t *testing.T) {
@@ -270,12 +277,95 @@ func TestStops(t *testing.T) {
 			t.Errorf("%d turns: %s, %v", turns, stands, faults)
 		}
 	}
-	var x, y atomic.Int64
+	var x, y, z atomic.Int64
 	if stands, faults := aid.Stops(3, adds(&x), 3); stands != "" || len(faults) != 2 {
 		t.Errorf("a call that ends: %s, %v", stands, faults)
+	}
+	marks := func(t *gate.Thread, n int) {
+		t.Mark(1, 10)
+		adds(&z)(t, n)
+	}
+	if stands, faults := aid.Stops(1, marks, 2, 1); stands != "0 add c0 1: 1" || len(faults) != 0 {
+		t.Errorf("a call that marks: %s, %v", stands, faults)
 	}
 	swallows := func(t *gate.Thread, n int) { _ = aid.Caught(func() { adds(&y)(t, n) }) }
 	if stands, faults := aid.Stops(1, swallows, 3, 1); stands != "0 add c0 1: 1" || len(faults) != 2 {
 		t.Errorf("calls that swallow the panic: %s, %v", stands, faults)
+	}
+}
+
+// TestIdle: what f does by one that lives, or as that is stopped, is seen.
+func TestIdle(t *testing.T) {
+	var x atomic.Int64
+	adds := func(th *gate.Thread) { th.Step(&x, api.OpAdd, 1, 0) }
+	kinds := map[string]int{}
+	if l := aid.Idle(func(who string, _ *gate.Thread) { kinds[who]++ }); len(l) != 0 || len(kinds) != len(aid.NotLiving())+2 {
+		t.Errorf("it does nothing: %v; it is called with %v", l, kinds)
+	}
+	for what, row := range map[string]struct {
+		f      func(who string, th *gate.Thread)
+		faults int
+	}{
+		"none of one that lives":   {func(who string, th *gate.Thread) { _ = who == "nil" && th.Live() }, 0},
+		"an access":                {func(_ string, th *gate.Thread) { adds(th) }, 2},
+		"an access that is caught": {func(_ string, th *gate.Thread) { _ = aid.Caught(func() { adds(th) }) }, 1},
+		"a mark":                   {func(_ string, th *gate.Thread) { th.Mark(1, 10) }, 1},
+		"an access as it is stopped": {func(who string, th *gate.Thread) {
+			if who == "one that is stopped" {
+				adds(th)
+			}
+		}, 1},
+		"an access of one that lives": {func(who string, th *gate.Thread) {
+			if who == "one that lives" {
+				adds(th)
+			}
+		}, 1},
+	} {
+		if l := aid.Idle(row.f); len(l) != row.faults {
+			t.Errorf("%s: %v", what, l)
+		}
+	}
+}
+
+// TestMirror: two threads that add, and others that do the same, or something else.
+func TestMirror(t *testing.T) {
+	adds := func(x *atomic.Int64, d ...int64) aid.Body {
+		return func(th *gate.Thread) {
+			for _, d := range d {
+				th.Step(x, api.OpAdd, d, 0)
+			}
+		}
+	}
+	falls := func(f aid.Body) aid.Body {
+		return func(th *gate.Thread) {
+			f(th)
+			panic("x")
+		}
+	}
+	for what, row := range map[string]struct {
+		bodies, others func(x *atomic.Int64) []aid.Body
+		most           int
+		end            int8
+		faults         int
+	}{
+		"the same":      {func(x *atomic.Int64) []aid.Body { return []aid.Body{adds(x, 1, 2), adds(x, 3)} }, nil, 9, api.Over, 0},
+		"the same, cut": {func(x *atomic.Int64) []aid.Body { return []aid.Body{adds(x, 1, 2), adds(x, 3)} }, nil, 2, api.Cut, 0},
+		"one that sleeps": {func(x *atomic.Int64) []aid.Body {
+			return []aid.Body{adds(x, 1), func(th *gate.Thread) { th.Step(x, api.OpPark, 1, 0); th.Step(x, api.OpPark, 1, 0) }}
+		}, nil, 9, api.Dead, 0},
+		"another order": {func(x *atomic.Int64) []aid.Body { return []aid.Body{adds(x, 1, 2), adds(x, 3)} }, func(x *atomic.Int64) []aid.Body { return []aid.Body{adds(x, 2, 1), adds(x, 3)} }, 9, api.Over, 1},
+		"one more":      {func(x *atomic.Int64) []aid.Body { return []aid.Body{adds(x, 1), adds(x, 3)} }, func(x *atomic.Int64) []aid.Body { return []aid.Body{adds(x, 1, 1), adds(x, 3)} }, 9, api.Over, 1},
+		"one less":      {func(x *atomic.Int64) []aid.Body { return []aid.Body{adds(x, 1, 1), adds(x, 3)} }, func(x *atomic.Int64) []aid.Body { return []aid.Body{adds(x, 1), adds(x, 3)} }, 9, api.Over, 1},
+		"both fall":     {func(x *atomic.Int64) []aid.Body { return []aid.Body{adds(x, 1), falls(adds(x, 3))} }, nil, 9, api.Over, 1},
+		"one falls":     {func(x *atomic.Int64) []aid.Body { return []aid.Body{adds(x, 1), falls(adds(x, 3))} }, func(x *atomic.Int64) []aid.Body { return []aid.Body{adds(x, 1), adds(x, 3)} }, 9, api.Over, 2},
+	} {
+		if row.others == nil {
+			row.others = row.bodies
+		}
+		var x, y atomic.Int64
+		r, l := aid.Mirror([]int{1, 0, -1}, row.most, row.bodies(&x), row.others(&y))
+		if r.End != row.end || len(l) != row.faults {
+			t.Errorf("%s: end %d: %v", what, r.End, l)
+		}
 	}
 }

@@ -2,6 +2,7 @@ package aid
 
 import (
 	"strconv"
+	"sync/atomic"
 
 	"treadle/api"
 	"treadle/gate"
@@ -19,7 +20,7 @@ func Stops[C any](turns int, do func(t *gate.Thread, c C), c C, later ...C) (sta
 		}()
 		makes(t, c)
 	})
-	if r.End == api.Over || len(r.Log) != turns {
+	if r.End == api.Over || r.Turns != turns {
 		faults = append(faults, "it is not stopped there")
 	}
 	for i, x := range out {
@@ -28,4 +29,29 @@ func Stops[C any](turns int, do func(t *gate.Thread, c C), c C, later ...C) (sta
 		}
 	}
 	return Texts(r.Left), faults
+}
+
+// Idle calls f with each kind of thread: those of NotLiving, one that lives, and one that is stopped: what was found, as f is to make neither an access nor a mark, and is to come back.
+func Idle(f func(who string, t *gate.Thread)) (faults []string) {
+	for who, t := range NotLiving() {
+		f(who, t)
+	}
+	var x atomic.Int64
+	came := false
+	r := gate.Run(nil, 1, func(t *gate.Thread) {
+		defer func() {
+			f("one that is stopped", t)
+			came = true
+		}()
+		f("one that lives", t)
+		t.Step(&x, api.OpAdd, 1, 0)
+		t.Step(&x, api.OpAdd, 1, 0)
+	})
+	if x.Load() != 1 || Texts(r.Log) != "0 add c0 1: 0" || Texts(r.Left) != "0 add c0 1: 1" {
+		faults = append(faults, "one that lives: "+Texts(r.Log)+"; it stands at "+Texts(r.Left))
+	}
+	if !came {
+		faults = append(faults, "one that is stopped does not come back")
+	}
+	return faults
 }

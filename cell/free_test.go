@@ -97,17 +97,7 @@ func TestNone(t *testing.T) {
 			}
 		}
 	}
-	for what, th := range aid.NotLiving() {
-		asks(what, th)
-	}
-	x := cell.New(0)
-	r := gate.Run(nil, 9, func(th *gate.Thread) {
-		defer asks("one that is stopped", th)
-		asks("one that lives", th)
-		x.Add(th, 1)
-		x.Park(th, 1)
-	})
-	if want := (api.Access{Op: api.OpAdd, Arg: 1, Now: 1}); len(r.Log) != 1 || r.Log[0] != want || r.End != api.Dead {
-		t.Errorf("P2.4: %+v", r)
+	for _, f := range aid.Idle(asks) {
+		t.Errorf("P2.4: %s", f)
 	}
 }

@@ -195,17 +195,8 @@ func TestNone(t *testing.T) {
 			}
 		}
 	}
-	for what, th := range aid.NotLiving() {
-		asks(what, th)
-	}
-	d := size{2, 5}.deque()
-	r := gate.Run(nil, 1, func(th *gate.Thread) {
-		defer asks("one that is stopped", th)
-		asks("one that lives", th)
-		d.Len(th)
-	})
-	if aid.Texts(r.Log) != "0 load c0: 5" || r.End != api.Cut || len(r.Fell) != 0 {
-		t.Errorf("R3: %+v", r)
+	for _, f := range aid.Idle(asks) {
+		t.Errorf("R3: %s", f)
 	}
 }
 

@@ -192,17 +192,8 @@ func TestNone(t *testing.T) {
 			}
 		}
 	}
-	for what, th := range aid.NotLiving() {
-		asks(what, th)
-	}
-	x := cell.New(0)
-	r := gate.Run(nil, 9, func(th *gate.Thread) {
-		defer asks("one that is stopped", th)
-		asks("one that lives", th)
-		x.Park(th, 0)
-	})
-	if len(r.Log) != 0 || r.End != api.Dead {
-		t.Errorf("P3.1: %+v", r)
+	for _, f := range aid.Idle(asks) {
+		t.Errorf("R3: %s", f)
 	}
 	o := once.New()
 	if a := do(nil, o, nil); a != (answer{e: api.ErrArg}) || do(nil, o, nothing) != (answer{ok: true}) {

@@ -318,18 +318,8 @@ func TestNone(t *testing.T) {
 			}
 		}
 	}
-	for what, th := range aid.NotLiving() {
-		asked(what, th)
-	}
-	k := token.New()
-	r := gate.Run(nil, 1, func(th *gate.Thread) {
-		defer asked("one that is stopped", th)
-		asked("one that lives", th)
-		k.Reason(th)
-		k.Reason(th)
-	})
-	if aid.Texts(r.Log) != "0 load c0: 0" || r.End != api.Cut || len(r.Fell) != 0 {
-		t.Errorf("R3: %+v", r)
+	for _, f := range aid.Idle(asked) {
+		t.Errorf("R3: %s", f)
 	}
 }
 

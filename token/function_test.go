@@ -248,7 +248,7 @@ func TestItIsHandedTheThread(t *testing.T) {
 		th.Mark(0, 11)
 		k.OnCancel(th, f)
 	}, func(th *gate.Thread) { k.Cancel(th, 8) })
-	want := "0 load c0: 0; 0 add c1 1: 0; 0 cas c0 0 1: 0 ok; 0 mark c-1 0: 0; 0 load c0: 1; 1 cas c2 0 8: 0 ok; 1 swap c0 -1: 1; 1 add c3 8: 0; 1 mark c-1 8: 0; 0 add c1 1: 1; 0 cas c0 1 2: -1 no; 0 load c0: -1; 0 load c2: 8; 0 add c3 8: 8; 0 mark c-1 8: 0"
+	want := "0 load c0: 0; 0 add c1 1: 0; 0 cas c0 0 1: 0 ok; 0 mark 0 11; 0 load c0: 1; 1 cas c2 0 8: 0 ok; 1 swap c0 -1: 1; 1 add c3 8: 0; 1 mark 8 10; 0 add c1 1: 1; 0 cas c0 1 2: -1 no; 0 load c0: -1; 0 load c2: 8; 0 add c3 8: 8; 0 mark 8 10"
 	if aid.Texts(r.Log) != want || r.End != api.Over {
 		t.Errorf("P11.3, P11.4: %s\nnot %s", aid.Texts(r.Log), want)
 	}

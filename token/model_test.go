@@ -33,16 +33,12 @@ func newPair(t *testing.T, first []call) *pair {
 func (p *pair) run(t *testing.T, calls [][]call, picks []int, most int) api.Report {
 	t.Helper()
 	from := len(p.is.story)
-	r := gate.Run(picks, most, p.is.bodies(calls)...)
-	same, e, turn := gate.Again(r.Went, p.as.bodies(calls)...)
-	if e != api.OK || !aid.Same(r, same) {
-		t.Errorf("W1: apart at the turn %d (%d):\n it does %s; left %s; %d\nwords say %s; left %s; %d", turn, e, aid.Texts(r.Log), aid.Texts(r.Left), r.End, aid.Texts(same.Log), aid.Texts(same.Left), same.End)
+	r, faults := aid.Mirror(picks, most, p.is.bodies(calls), p.as.bodies(calls))
+	for _, f := range faults {
+		t.Errorf("R1, W1, W3: %s", f)
 	}
 	if is, as := p.is.story[from:], p.as.story[from:]; !slices.Equal(is, as) {
 		t.Errorf("P11.2 to P11.6: it tells %v\nwords say %v", is, as)
-	}
-	if len(r.Fell) != 0 || r.End == api.Cut && r.Turns < most || r.End == api.Dead && slices.ContainsFunc(r.Left, func(a api.Access) bool { return a.Op != api.OpPark || a.Was != 0 }) {
-		t.Errorf("R1, W3: %+v", r)
 	}
 	return r
 }
