@@ -1,14 +1,18 @@
 package aid_test
 
 import (
+	"io"
 	"math"
 	"math/rand"
 	"slices"
+	"strconv"
+	"strings"
 	"sync/atomic"
 	"testing"
 
 	"treadle/aid"
 	"treadle/api"
+	"treadle/fault"
 	"treadle/gate"
 )
 
@@ -367,5 +371,142 @@ func TestMirror(t *testing.T) {
 		if r.End != row.end || len(l) != row.faults {
 			t.Errorf("%s: end %d: %v", what, r.End, l)
 		}
+	}
+}
+
+// TestMirrorTold: two threads of which the second one is told what it adds to, and others that are told so, or something else.
+func TestMirrorTold(t *testing.T) {
+	for what, row := range map[string]struct {
+		d, most, faults int
+		more            []string
+	}{"the same": {1, 9, 0, nil}, "the same, cut": {1, 1, 0, nil}, "something else is added": {2, 9, 2, nil}, "something else is told": {1, 9, 1, []string{"x"}}} {
+		var x, y atomic.Int64
+		story, other := aid.Story{{Thread: 3, Text: "ahead"}}, aid.Story{}
+		bodies := func(x *atomic.Int64, d int64, s *aid.Story, more ...string) []aid.Body {
+			return []aid.Body{func(th *gate.Thread) { th.Step(x, api.OpAdd, d, 0) }, func(th *gate.Thread) {
+				was, _, _ := th.Step(x, api.OpLoad, 0, 0)
+				s.Tells(th, strconv.FormatInt(was, 10))
+				for _, m := range more {
+					s.Tells(th, m)
+				}
+			}}
+		}
+		r, l := aid.MirrorTold(nil, row.most, bodies(&x, 1, &story), bodies(&y, int64(row.d), &other, row.more...), &story, &other)
+		if len(l) != row.faults || r.Turns != min(row.most, 2) {
+			t.Errorf("%s: %+v: %v", what, r, l)
+		}
+	}
+}
+
+// TestRows: all of them, each once, and each its own.
+func TestRows(t *testing.T) {
+	rows := aid.Rows([]string{"a", "b"}, 2)
+	var l []string
+	for _, r := range rows {
+		l = append(l, strings.Join(r, ""))
+	}
+	if got := strings.Join(l, " "); got != " a b aa ab ba bb" {
+		t.Errorf("%s", got)
+	}
+	for i := range rows {
+		rows[i] = append(rows[i], "x")
+	}
+	if got := strings.Join(slices.Concat(rows...), ""); got != "xaxbxaaxabxbaxbbx" {
+		t.Errorf("%s", got)
+	}
+	if n := len(aid.Rows([]int{1, 2, 3}, 4)); n != 1+3+9+27+81 {
+		t.Errorf("%d", n)
+	}
+	if n := len(aid.Rows([]int{1, 2, 3}, 0)) + len(aid.Rows([]int(nil), 3)); n != 2 {
+		t.Errorf("%d", n)
+	}
+}
+
+// TestBy: it is called with each kind of thread that may go on; what becomes of the one that lives is seen.
+func TestBy(t *testing.T) {
+	var x atomic.Int64
+	kinds, live := map[string]int{}, 0
+	if l := aid.By(func(who string, th *gate.Thread) {
+		kinds[who]++
+		if th.Live() {
+			live++
+			th.Step(&x, api.OpAdd, 1, 0)
+		}
+	}); len(l) != 0 || len(kinds) != len(aid.NotLiving())+1 || live != 1 || x.Load() != 1 {
+		t.Errorf("it adds: %v; it is called with %v; %d live", l, kinds, live)
+	}
+	for what, f := range map[string]func(th *gate.Thread){
+		"it falls":  func(*gate.Thread) { panic("x") },
+		"it sleeps": func(th *gate.Thread) { th.Step(&x, api.OpPark, 1, 0) },
+	} {
+		l := aid.By(func(_ string, th *gate.Thread) {
+			if th.Live() {
+				f(th)
+			}
+		})
+		if len(l) != 1 {
+			t.Errorf("%s: %v", what, l)
+		}
+	}
+}
+
+// TestAgain: runs of bodies that do the same each time, and of such as do not.
+func TestAgain(t *testing.T) {
+	adds := func(x *atomic.Int64, d int64) aid.Body {
+		return func(th *gate.Thread) {
+			for range 2 {
+				th.Step(x, api.OpAdd, d, 0)
+			}
+		}
+	}
+	times := int64(0)
+	for what, row := range map[string]struct {
+		second func(x *atomic.Int64) aid.Body
+		faults int
+	}{
+		"the same":               {func(x *atomic.Int64) aid.Body { return adds(x, 1) }, 0},
+		"something else":         {func(x *atomic.Int64) aid.Body { return adds(x, 2) }, 2},
+		"it ends sooner":         {func(*atomic.Int64) aid.Body { return nil }, 2},
+		"something else in time": {func(x *atomic.Int64) aid.Body { times++; return adds(x, times/2) }, 1},
+	} {
+		var x atomic.Int64
+		picks := []int{1, 0, 1}
+		r := gate.Run(picks, 9, adds(&x, 3), adds(&x, 1))
+		l := aid.Again(r, picks, func() []aid.Body {
+			var y atomic.Int64
+			return []aid.Body{adds(&y, 3), row.second(&y)}
+		})
+		if len(l) != row.faults {
+			t.Errorf("%s: %v", what, l)
+		}
+	}
+}
+
+// TestStory: words, of threads that live and of others.
+func TestStory(t *testing.T) {
+	var s aid.Story
+	s.Tells(nil, "a")
+	gate.Run(nil, 0, nil, func(th *gate.Thread) { s.Tells(th, "b") })
+	if s.String() != "a b" || s[1:].String() != "b" || s[0] != (aid.Word{Thread: -1, Text: "a"}) || s[1] != (aid.Word{Thread: 1, Text: "b"}) {
+		t.Errorf("%v", s)
+	}
+	if got := aid.Story(nil).String() + aid.Yes(true) + aid.Yes(false); got != "yesno" {
+		t.Errorf("%s", got)
+	}
+}
+
+// TestAnswers: their texts.
+func TestAnswers(t *testing.T) {
+	for want, a := range map[string]aid.Answer{
+		"5": aid.Told(5, nil), "-9223372036854775808": aid.Told(-1<<63, nil), "0": aid.Told(0, nil), "EOF": aid.Told(0, io.EOF), "5_beside_EOF": aid.Told(5, io.EOF), "failed_3": aid.Told(0, &fault.Failed{Code: 3}),
+		"1:_late_2": aid.Told(0, fault.Wrap(1, &fault.Late{Due: 2})), "cancelled:4": aid.Told(0, &fault.Cancelled{Reason: 4}), "errno:2": aid.Told(0, api.ErrNil), "errno:0": aid.Told(0, api.OK),
+		"panicked:x": aid.Told(0, fault.Of("x")), "panicked:7": aid.Told(0, fault.Of(7)), "panicked:8": aid.Told(0, fault.Of(int64(8))), "panicked:EOF": aid.Told(0, fault.Of(io.EOF)), "panicked:something": aid.Told(0, fault.Of(1.5)),
+	} {
+		if a.String() != want {
+			t.Errorf("%s, not %s", a, want)
+		}
+	}
+	if a := aid.Told(5, io.EOF); a.V != 5 || a.E != io.EOF {
+		t.Errorf("%v", a)
 	}
 }

@@ -30,3 +30,26 @@ func told(r api.Report) string {
 	}
 	return s
 }
+
+// MirrorTold is Mirror of bodies that are told things: both stories are to go on alike.
+func MirrorTold(picks []int, most int, bodies, others []Body, story, other *Story) (r api.Report, faults []string) {
+	from, start := len(*story), len(*other)
+	r, faults = Mirror(picks, most, bodies, others)
+	if a, b := (*story)[from:], (*other)[start:]; !slices.Equal(a, b) {
+		faults = append(faults, "one is told "+a.String()+"\nthe other "+b.String())
+	}
+	return r, faults
+}
+
+// Again: what is found as the run of these picks is played again, by bodies that are made anew each time: one of the same turns is to tell the same, and one of the same picks that has but half the turns is to be its beginning.
+func Again(r api.Report, picks []int, anew func() []Body) (faults []string) {
+	same, e, turn := gate.Again(r.Went, anew()...)
+	if e != api.OK || !Same(r, same) {
+		faults = append(faults, "apart at the turn "+strconv.Itoa(turn)+" ("+e.Error()+"):\nfirst "+told(r)+"\nagain "+told(same))
+	}
+	half := gate.Run(picks, r.Turns/2, anew()...)
+	if !slices.Equal(half.Went, r.Went[:r.Turns/2]) || len(half.Log) > len(r.Log) || !slices.Equal(half.Log, r.Log[:len(half.Log)]) {
+		faults = append(faults, "it is not the beginning: "+told(half)+"\nof "+told(r))
+	}
+	return faults
+}

@@ -26,3 +26,12 @@ func Goes(turns ...[2]int) (picks []int) {
 	}
 	return picks
 }
+
+// Spread: so many picks, each so much more than the one ahead of it.
+func Spread(n, step int) []int {
+	picks := make([]int, n)
+	for i := range picks {
+		picks[i] = i * step
+	}
+	return picks
+}

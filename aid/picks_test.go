@@ -46,3 +46,11 @@ func TestGoes(t *testing.T) {
 		t.Errorf("%v", l)
 	}
 }
+
+func TestSpread(t *testing.T) {
+	for want, l := range map[[4]int][]int{{0, 3, 6, 9}: aid.Spread(4, 3), {0, -1, -2, -3}: aid.Spread(4, -1), {}: append(aid.Spread(0, 5), 0, 0, 0, 0)} {
+		if !slices.Equal(l, want[:]) {
+			t.Errorf("%v, not %v", l, want)
+		}
+	}
+}

@@ -2,12 +2,28 @@ package aid
 
 import (
 	"math"
+	"slices"
 
 	"treadle/api"
 )
 
 // Some: one of the list, by a number that comes from intn: from 0 to below what it is handed.
 func Some[T any](intn func(n int) int, l []T) T { return l[intn(len(l))] }
+
+// Rows: all rows of at most so many of these, the shorter ones first.
+func Rows[T any](of []T, most int) [][]T {
+	rows := [][]T{nil}
+	for from := 0; most > 0; most-- {
+		last := rows[from:]
+		from = len(rows)
+		for _, l := range last {
+			for _, x := range of {
+				rows = append(rows, append(slices.Clip(l), x))
+			}
+		}
+	}
+	return rows
+}
 
 // Values: some at the ends of int64, and some near one another.
 func Values() []int64 {

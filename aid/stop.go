@@ -55,3 +55,15 @@ func Idle(f func(who string, t *gate.Thread)) (faults []string) {
 	}
 	return faults
 }
+
+// By calls f with each kind of thread that comes back from its accesses: those of NotLiving, and one that lives: what was found, as that one is to come to its end.
+func By(f func(who string, t *gate.Thread)) (faults []string) {
+	for who, t := range NotLiving() {
+		f(who, t)
+	}
+	r := gate.Run(nil, api.MaxTurns, func(t *gate.Thread) { f("one that lives", t) })
+	if r.End != api.Over || len(r.Fell) != 0 {
+		faults = append(faults, "one that lives: "+told(r))
+	}
+	return faults
+}

@@ -156,12 +156,8 @@ func TestMany(t *testing.T) {
 				{advances(1), sets(0, busies(b.name, sets(0, quiet("z")), stops(h%16, 2))), looks},
 			}[(h+seed)%4]
 		}
-		picks := make([]int, 1<<12)
-		for i := range picks {
-			picks[i] = i * (seed + 1) * 7
-		}
 		w := newWorld(fills(seed, 1), calls)
-		if r := w.run(t, picks, api.MaxTurns); t.Failed() || r.End != api.Over {
+		if r := w.run(t, aid.Spread(1<<12, 7*(seed+1)), api.MaxTurns); t.Failed() || r.End != api.Over {
 			t.Fatalf("what follows: %d: end %d", seed, r.End)
 		}
 	}

@@ -3,7 +3,6 @@ package task_test
 import (
 	"io"
 	"math"
-	"slices"
 	"testing"
 
 	"treadle/aid"
@@ -17,12 +16,8 @@ import (
 // by calls f with each thread that does not live, and with one that does.
 func by(t *testing.T, f func(who string, th *gate.Thread)) {
 	t.Helper()
-	for who, th := range aid.NotLiving() {
-		f(who, th)
-	}
-	r := gate.Run(nil, api.MaxTurns, func(th *gate.Thread) { f("one that lives", th) })
-	if r.End != api.Over || len(r.Fell) != 0 {
-		t.Errorf("R1: %+v", r)
+	for _, f := range aid.By(f) {
+		t.Errorf("R1: %s", f)
 	}
 }
 
@@ -244,7 +239,7 @@ func TestReasons(t *testing.T) {
 			got := w.makes(th, cancels(0, n), asks(0), runs(0), waits(0), runs(1), waits(1), cancels(2, n), waits(2), cancels(-1, n))
 			want := "cancel0:no state0:0 f0( ) run0:yes wait0:6"
 			if n > 0 {
-				want = "cancel0:yes state0:3 run0:no wait0:" + named(&fault.Cancelled{Reason: n})
+				want = "cancel0:yes state0:3 run0:no wait0:" + aid.Told(0, &fault.Cancelled{Reason: n}).String()
 			}
 			want += " f1( cancel1:no ) run1:yes wait1:7 cancel2:no wait2:cancelled:3 cancel-1:no"
 			if got != want {
@@ -257,19 +252,7 @@ func TestReasons(t *testing.T) {
 // TestSequences: all short rows of calls of one task, of each kind of function and token, free and by a thread.
 func TestSequences(t *testing.T) {
 	calls := []call{runs(0), cancels(0, 5), cancels(0, -3), waits(0), stops(0, 9), asks(0)}
-	rows := [][]call{nil}
-	for last := rows; len(last[0]) < 4; {
-		var next [][]call
-		for _, l := range last {
-			for _, c := range calls {
-				next = append(next, append(slices.Clone(l), c))
-			}
-		}
-		rows, last = append(rows, next...), next
-	}
-	if len(rows) != 1+6+36+216+1296 {
-		t.Fatalf("the rows are no good: %d", len(rows))
-	}
+	rows := aid.Rows(calls, 4)
 	for _, d := range []deed{fine(42), fine(0, runs(0), asks(0)), failed(io.EOF, stops(0, 4)), fallen("x"), fine(7, cancels(0, 2), adds()), failed(&fault.Cancelled{Reason: 2})} {
 		for _, p := range []plan{one(d), held(d), held(d, stops(0, 8))} {
 			for _, l := range rows {
@@ -343,8 +326,8 @@ func TestEachIsItsOwn(t *testing.T) {
 	born, _ := k.Child(nil)
 	for what, x := range map[string]*task.Task{"that one above it cancelled": x, "that is born cancelled": task.New(1, born, f)} {
 		ran := x.Run(nil)
-		if v, e := x.Wait(nil); ran || (answer{v, e}).String() != "cancelled:4" {
-			t.Errorf("P13.2: a token %s: it is run: %v; %d %v", what, ran, v, e)
+		if a := aid.Told(x.Wait(nil)); ran || a.String() != "cancelled:4" {
+			t.Errorf("P13.2: a token %s: it is run: %v; %v", what, ran, a)
 		}
 	}
 }

@@ -25,7 +25,7 @@ const hands, meetings = 8, 20000
 // asleep: a Wait in a goroutine of its own, and what it was told.
 type asleep struct {
 	answered bool
-	got      answer
+	got      aid.Answer
 }
 
 // begun: so many who wait; they have been answered, or sleep.
@@ -34,8 +34,8 @@ func begun(th *gate.Thread, x *task.Task, n int) (l []*asleep) {
 		s := &asleep{}
 		l = append(l, s)
 		go func() {
-			v, e := x.Wait(th)
-			s.got, s.answered = answer{v, e}, true
+			s.got = aid.Told(x.Wait(th))
+			s.answered = true
 		}()
 	}
 	synctest.Wait()
@@ -112,7 +112,7 @@ type heard struct {
 	ran, cancelled int // how many of its calls answered true
 	reason         int64
 	barred         bool // nobody had claimed the task when the token was cancelled
-	told           []answer
+	told           []aid.Answer
 	wrong          int
 }
 
@@ -122,7 +122,7 @@ var errOwn = errors.New("own")
 func newPoint(i, hands int) *point {
 	m := &point{k: token.New(), got: make([]heard, hands)}
 	n := int64(i + 7)
-	m.want = []string{answer{v: n}.String(), "own", answer{e: &fault.Panicked{Value: n}}.String()}[i%3]
+	m.want = []string{aid.Told(n, nil).String(), "own", aid.Told(0, &fault.Panicked{Value: n}).String()}[i%3]
 	m.x = task.New(int64(i), m.k, func(*gate.Thread) (int64, error) {
 		m.called.Add(1)
 		m.plain = i + 1
@@ -162,13 +162,13 @@ func (m *point) stops(a *heard, reason int64) {
 
 // waits: the task is one that somebody settles. Whoever is told of the function's end sees what it did.
 func (m *point) waits(a *heard, i int) {
-	v, e := m.x.Wait(nil)
-	a.told = append(a.told, answer{v, e})
-	if fault.Class(e) != api.ErrCancelled {
+	last := aid.Told(m.x.Wait(nil))
+	a.told = append(a.told, last)
+	if fault.Class(last.E) != api.ErrCancelled {
 		a.wrong += digit(!m.over.Load()) + digit(m.plain != i+1)
 	}
 	s := task.Ended
-	if e != nil {
+	if last.E != nil {
 		s = task.Fell
 	}
 	a.wrong += digit(m.x.State(nil) != s)
@@ -178,20 +178,19 @@ func (m *point) waits(a *heard, i int) {
 func (m *point) holds() bool {
 	var ran, cancelled, wrong int
 	var reason int64
-	v, e := m.x.Wait(nil)
-	last := answer{v, e}
+	last := aid.Told(m.x.Wait(nil))
 	for _, a := range m.got {
 		ran, cancelled, wrong = ran+a.ran, cancelled+a.cancelled, wrong+a.wrong
 		reason += a.reason
 		wrong += digit(a.barred && m.called.Load() > 0)
-		wrong += digit(slices.ContainsFunc(a.told, func(x answer) bool { return x != last }))
+		wrong += digit(slices.ContainsFunc(a.told, func(x aid.Answer) bool { return x != last }))
 	}
 	want := m.want
 	if ran == 0 {
 		if cancelled == 0 {
 			reason = m.k.Reason(nil)
 		}
-		want = named(&fault.Cancelled{Reason: reason})
+		want = aid.Told(0, &fault.Cancelled{Reason: reason}).String()
 	}
 	return wrong == 0 && ran+cancelled < 2 && (ran+cancelled == 1 || reason > 0) && m.called.Load() == int64(ran) && last.String() == want && !m.x.Run(nil) && !m.x.Cancel(nil, 9)
 }
@@ -207,8 +206,7 @@ func meet(t *testing.T, hands, meetings int, f func(m *point, hand, i int, a *he
 	aid.Together(hands, meetings, func(h, i int) { f(all[i], h, i, &all[i].got[h]) })
 	for i, m := range all {
 		if !m.holds() {
-			v, e := m.x.Wait(nil)
-			t.Fatalf("what follows: at the meeting %d: %+v; called %d times; it came to %v", i, m.got, m.called.Load(), answer{v, e})
+			t.Fatalf("what follows: at the meeting %d: %+v; called %d times; it came to %v", i, m.got, m.called.Load(), aid.Told(m.x.Wait(nil)))
 		}
 	}
 	return all

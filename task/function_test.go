@@ -342,13 +342,13 @@ func TestNested(t *testing.T) {
 			t.Errorf("R1: %s: it is not run", what)
 		}
 		for i, x := range all {
-			v, e := x.Wait(nil)
+			a := aid.Told(x.Wait(nil))
 			want := map[bool]string{true: "panicked:" + strconv.Itoa(i), false: strconv.Itoa(i)}[i%2 == 0]
 			if i == parts-1 {
 				want = what
 			}
-			if (answer{v, e}).String() != want {
-				t.Fatalf("P13.2: %s: the task %d tells %v, not %s", what, i, answer{v, e}, want)
+			if a.String() != want {
+				t.Fatalf("P13.2: %s: the task %d tells %v, not %s", what, i, a, want)
 			}
 		}
 	}

@@ -2,16 +2,13 @@ package task_test
 
 import (
 	"errors"
-	"fmt"
 	"slices"
 	"strconv"
-	"strings"
 	"time"
 
 	"treadle/aid"
 	"treadle/api"
 	"treadle/cell"
-	"treadle/fault"
 	"treadle/gate"
 	"treadle/task"
 	"treadle/token"
@@ -115,52 +112,17 @@ type world struct {
 	tasks  []kind
 	tokens []*token.Token
 	x      *cell.Cell
-	story  []word
+	story  aid.Story
 	facts  []fact
 	awake  bool // nobody is there who would wake one who waits
 	faults []string
-}
-
-// word: of a story: who is told it.
-type word struct {
-	thread int
-	text   string
 }
 
 // fact: what is noticed of a task.
 type fact struct {
 	begun, over   int // how often its function is called; how often it has answered, or panicked
 	runs, cancels int // how many of them answered true
-	told          []answer
-}
-
-// answer: of a Wait.
-type answer struct {
-	v int64
-	e error
-}
-
-func (a answer) String() string {
-	switch {
-	case a.e == nil:
-		return strconv.FormatInt(a.v, 10)
-	case a.v != 0:
-		return strconv.FormatInt(a.v, 10) + " beside " + named(a.e)
-	}
-	return named(a.e)
-}
-
-// named: an error, by its type and what it has.
-func named(e error) string {
-	switch x := e.(type) {
-	case *fault.Cancelled:
-		return fmt.Sprintf("cancelled:%d", x.Reason)
-	case *fault.Panicked:
-		return fmt.Sprintf("panicked:%v", x.Value)
-	case api.Errno:
-		return fmt.Sprintf("errno:%d", x)
-	}
-	return strings.ReplaceAll(e.Error(), " ", "_")
+	told          []aid.Answer
 }
 
 // build: a world of this plan, ahead of its first calls.
@@ -204,20 +166,7 @@ func (w *world) makes(t *gate.Thread, calls ...call) string {
 	for _, c := range calls {
 		w.does(t, c)
 	}
-	return told(w.story[from:])
-}
-
-// told: the words of a story, whoever is told them.
-func told(story []word) string {
-	var l []string
-	for _, x := range story {
-		l = append(l, x.text)
-	}
-	return strings.Join(l, " ")
-}
-
-func (w *world) tells(t *gate.Thread, text string) {
-	w.story = append(w.story, word{t.Number(), text})
+	return w.story[from:].String()
 }
 
 // does makes a call.
@@ -227,24 +176,24 @@ func (w *world) does(t *gate.Thread, c call) {
 	case run:
 		ok := x.Run(t)
 		w.counts(c.of, func(f *fact) { f.runs += digit(ok) })
-		said = yes(ok)
+		said = aid.Yes(ok)
 	case cancel:
 		ok := x.Cancel(t, c.n)
 		w.counts(c.of, func(f *fact) { f.cancels += digit(ok) })
-		said = yes(ok)
+		said = aid.Yes(ok)
 	case wait:
 		said = w.waits(t, c.of)
 	case ask:
 		said = strconv.Itoa(x.State(t))
 	case stop:
-		said = yes(w.token(c.of).Cancel(t, c.n))
+		said = aid.Yes(w.token(c.of).Cancel(t, c.n))
 	case add:
 		said = strconv.FormatInt(w.x.Add(t, 1), 10)
 	case grab:
 		said = "stopped"
 		_ = aid.Caught(func() { said = strconv.FormatInt(w.x.Add(t, 1), 10) })
 	}
-	w.tells(t, c.String()+":"+said)
+	w.story.Tells(t, c.String()+":"+said)
 }
 
 func (w *world) waits(t *gate.Thread, of int) string {
@@ -253,8 +202,7 @@ func (w *world) waits(t *gate.Thread, of int) string {
 		return "sleeps"
 	}
 	defer inTime()()
-	v, e := x.Wait(t)
-	a := answer{v, e}
+	a := aid.Told(x.Wait(t))
 	w.counts(of, func(f *fact) {
 		if f.told = append(f.told, a); f.begun != f.over {
 			w.faults = append(w.faults, "what follows: a Wait answers ahead of the end")
@@ -277,18 +225,16 @@ func digit(ok bool) int {
 	return 0
 }
 
-func yes(ok bool) string { return []string{"no", "yes"}[digit(ok)] }
-
 // function: of the task with this place.
 func (w *world) function(of int, d deed) function {
 	return func(t *gate.Thread) (int64, error) {
 		f := &w.facts[of]
 		f.begun++
-		w.tells(t, "f"+strconv.Itoa(of)+"(")
+		w.story.Tells(t, "f"+strconv.Itoa(of)+"(")
 		for _, c := range d.calls {
 			w.does(t, c)
 		}
-		w.tells(t, ")")
+		w.story.Tells(t, ")")
 		f.over++
 		if d.falls {
 			panic(d.with)
@@ -309,7 +255,7 @@ func (w *world) bodies(calls [][]call) (l []func(t *gate.Thread)) {
 func (w *world) alone(calls ...call) (api.Report, string) {
 	from := len(w.story)
 	report := gate.Run(nil, api.MaxTurns, w.bodies([][]call{calls})...)
-	return report, told(w.story[from:])
+	return report, w.story[from:].String()
 }
 
 // follows: what is found that does not follow: of what was noticed of the tasks, and in the marks of a record (none of which has another's number).
@@ -325,10 +271,10 @@ func (w *world) follows(log []api.Access) []string {
 		fault(f.runs+f.cancels > 1, "two are told that they did it", i)
 		fault(f.runs == 1 && f.over != 1, "it is run, but its function has not ended", i)
 		fault(f.cancels == 1 && f.begun != 0, "it is cancelled, and run", i)
-		fault(slices.ContainsFunc(f.told, func(a answer) bool { return a != f.told[0] }), "two are told unlike things", i)
+		fault(slices.ContainsFunc(f.told, func(a aid.Answer) bool { return a != f.told[0] }), "two are told unlike things", i)
 		for _, a := range f.told {
-			fault(f.begun == 0 && !errors.Is(a.e, api.ErrCancelled), "it is not found as cancelled", i)
-			fault(a.e != nil && a.v != 0, "a value beside an error", i)
+			fault(f.begun == 0 && !errors.Is(a.E, api.ErrCancelled), "it is not found as cancelled", i)
+			fault(a.E != nil && a.V != 0, "a value beside an error", i)
 		}
 		fault(!slices.Contains([]string{"", " 2", " 2 3", " 4"}, w.marks(log, i)), "its marks are"+w.marks(log, i), i)
 	}

@@ -4,14 +4,12 @@ import (
 	"io"
 	"maps"
 	"math/rand"
-	"slices"
 	"strings"
 	"testing"
 
 	"treadle/aid"
 	"treadle/api"
 	"treadle/fault"
-	"treadle/gate"
 )
 
 // pair: the package's tasks, and those of the chapter's words, of one plan.
@@ -28,13 +26,9 @@ func newPair(t *testing.T, p plan) *pair {
 // run plays threads that call the package's tasks; then threads go through the chapter's words by the same turns: they are to tell just the same.
 func (p *pair) run(t *testing.T, calls [][]call, picks []int, most int) api.Report {
 	t.Helper()
-	from := len(p.is.story)
-	r, faults := aid.Mirror(picks, most, p.is.bodies(calls), p.as.bodies(calls))
+	r, faults := aid.MirrorTold(picks, most, p.is.bodies(calls), p.as.bodies(calls), &p.is.story, &p.as.story)
 	for _, f := range faults {
-		t.Errorf("R1, W1, W3: %s", f)
-	}
-	if is, as := p.is.story[from:], p.as.story[from:]; !slices.Equal(is, as) {
-		t.Errorf("P13.2 to P13.5: it tells %v\nwords say %v", is, as)
+		t.Errorf("P13.2 to P13.5, R1, W1, W3: %s", f)
 	}
 	return r
 }
@@ -139,14 +133,8 @@ func TestRuns(t *testing.T) {
 		if most == enough && report.End == api.Cut {
 			t.Errorf("R1: %d turns are not enough", most)
 		}
-		again := newPair(t, plan)
-		second, e, _ := gate.Again(report.Went, again.is.bodies(calls)...)
-		if e != api.OK || !aid.Same(second, report) {
-			t.Errorf("W7: %d: %+v, not %+v", e, second, report)
-		}
-		half := gate.Run(picks, report.Turns/2, newPair(t, plan).is.bodies(calls)...)
-		if !slices.Equal(half.Went, report.Went[:report.Turns/2]) || !slices.Equal(half.Log, report.Log[:len(half.Log)]) {
-			t.Errorf("W7: %+v is not the beginning", half)
+		for _, f := range aid.Again(report, picks, func() []aid.Body { return newPair(t, plan).is.bodies(calls) }) {
+			t.Errorf("W7: %s", f)
 		}
 		if t.Failed() {
 			t.Fatalf("seed %d: %+v: %v: %s", seed, plan, calls, aid.Texts(report.Log))
@@ -186,8 +174,8 @@ func counts(met map[string]int, r api.Report, w *world) {
 		}
 	}
 	for _, x := range w.story {
-		met["Run: no"] += digit(strings.HasPrefix(x.text, "run") && strings.HasSuffix(x.text, ":no"))
-		met["Cancel: no"] += digit(strings.HasPrefix(x.text, "cancel") && strings.HasSuffix(x.text, ":no"))
+		met["Run: no"] += digit(strings.HasPrefix(x.Text, "run") && strings.HasSuffix(x.Text, ":no"))
+		met["Cancel: no"] += digit(strings.HasPrefix(x.Text, "cancel") && strings.HasSuffix(x.Text, ":no"))
 	}
 	for _, f := range w.facts {
 		met["told at once"] += len(f.told)
@@ -290,8 +278,7 @@ func (w *world) cameTo() string {
 			l = append(l, "nothing")
 			continue
 		}
-		v, e := x.Wait(nil)
-		l = append(l, answer{v, e}.String())
+		l = append(l, aid.Told(x.Wait(nil)).String())
 	}
 	return strings.Join(l, ", ")
 }

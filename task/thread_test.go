@@ -31,7 +31,7 @@ func (m meeting) look(t *testing.T) {
 	if m.left != "" {
 		end = api.Dead
 	}
-	if s := told(w.story[from:]); aid.Texts(r.Log) != m.log || s != m.told || aid.Texts(r.Left) != m.left || r.End != end {
+	if s := w.story[from:].String(); aid.Texts(r.Log) != m.log || s != m.told || aid.Texts(r.Left) != m.left || r.End != end {
 		t.Errorf("P13.2 to P13.5: %s:\n got %s, end %d, left %s: %s\nwant %s: %s", m.what, aid.Texts(r.Log), r.End, aid.Texts(r.Left), s, m.log, m.told)
 	}
 	if then := w.cameTo(); then != m.then || len(w.follows(r.Log)) != 0 {
@@ -131,12 +131,8 @@ func TestMany(t *testing.T) {
 			of := h % 4
 			calls[h] = [][]call{{runs(of), waits(of)}, {waits(of), asks(of)}, {asks(of), runs((of + 1) % 4), waits((of + 1) % 4)}, {waits((of + 2) % 4), cancels(of, int64(h)), runs(of)}, {runs(of), cancels(of, 3)}}[(h+seed)%5]
 		}
-		picks := make([]int, 1<<10)
-		for i := range picks {
-			picks[i] = i * (seed + 1) * 7
-		}
 		x := newPair(t, p)
-		r := x.run(t, calls, picks[:len(picks)*(seed%2)], api.MaxTurns)
+		r := x.run(t, calls, aid.Spread((seed%2)<<10, 7*(seed+1)), api.MaxTurns)
 		if x.ends(t, r.Log); t.Failed() || r.End != api.Over {
 			t.Fatalf("what follows: %d: end %d", seed, r.End)
 		}

@@ -13,15 +13,17 @@ import (
 	"treadle/token"
 )
 
+// by calls f with each thread that does not live, and with one that does.
+func by(t *testing.T, f func(who string, th *gate.Thread)) {
+	t.Helper()
+	for _, f := range aid.By(f) {
+		t.Errorf("R1: %s", f)
+	}
+}
+
 // TestExamples: the chapter's table, by each thread that does not live, and by one that does.
 func TestExamples(t *testing.T) {
-	for what, th := range aid.NotLiving() {
-		examples(t, what, th)
-	}
-	r := gate.Run(nil, api.MaxTurns, func(th *gate.Thread) { examples(t, "one that lives", th) })
-	if r.End != api.Over || len(r.Fell) != 0 {
-		t.Errorf("P11.1 to P11.6: %+v", r)
-	}
+	by(t, func(who string, th *gate.Thread) { examples(t, who, th) })
 }
 
 func examples(t *testing.T, what string, th *gate.Thread) {

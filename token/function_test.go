@@ -17,13 +17,7 @@ import (
 
 // TestDeeds: what functions do to their token, to those above and below it, and to others, by each thread that does not live, and by one that does.
 func TestDeeds(t *testing.T) {
-	for what, th := range aid.NotLiving() {
-		deeds(t, what, th)
-	}
-	r := gate.Run(nil, api.MaxTurns, func(th *gate.Thread) { deeds(t, "one that lives", th) })
-	if r.End != api.Over || len(r.Fell) != 0 {
-		t.Errorf("P11.4: %+v", r)
-	}
+	by(t, func(who string, th *gate.Thread) { deeds(t, who, th) })
 }
 
 func deeds(t *testing.T, who string, th *gate.Thread) {
@@ -145,16 +139,10 @@ func comesOut(t *testing.T, what string, f func(t *gate.Thread, reason int64), f
 			}
 		}
 	}
-	for who, th := range aid.NotLiving() {
-		falls(who, th)
-	}
-	r := gate.Run(nil, api.MaxTurns, func(th *gate.Thread) { falls("one that lives", th) })
-	if r.End != api.Over || len(r.Fell) != 0 {
-		t.Errorf("P11.3, P11.4: %s: %+v", what, r)
-	}
+	by(t, falls)
 	k := token.New()
 	k.OnCancel(nil, f)
-	r = gate.Run(nil, api.MaxTurns, func(th *gate.Thread) { k.Cancel(th, 4) }, func(th *gate.Thread) { k.OnCancel(th, f) })
+	r := gate.Run(nil, api.MaxTurns, func(th *gate.Thread) { k.Cancel(th, 4) }, func(th *gate.Thread) { k.OnCancel(th, f) })
 	if r.End != api.Over || !slices.Equal(r.Fell, []int{0}) && !slices.Equal(r.Fell, []int{0, 1}) {
 		t.Errorf("P11.3, P11.4: %s: not recovered: %+v", what, r)
 	}

@@ -3,9 +3,9 @@ package token_test
 import (
 	"slices"
 	"strconv"
-	"strings"
 	"time"
 
+	"treadle/aid"
 	"treadle/api"
 	"treadle/gate"
 	"treadle/token"
@@ -82,13 +82,7 @@ func (d *deed) String() string {
 // world: tokens of some kind, and what is told of the calls of them: what they are answered, and what is called in them. Of its threads one moves at a time.
 type world[T kind[T]] struct {
 	all   []T // by their numbers, in the order in which they were answered
-	story []word
-}
-
-// word: of a story: who is told it.
-type word struct {
-	thread int
-	text   string
+	story aid.Story
 }
 
 // newWorld: of one token, and of those that calls make which one alone makes ahead of all others.
@@ -111,20 +105,7 @@ func (w *world[T]) makes(t *gate.Thread, calls ...call) string {
 	for _, c := range calls {
 		w.does(t, &k, c)
 	}
-	return told(w.story[from:])
-}
-
-// told: the words of a story, whoever is told them.
-func told(story []word) string {
-	var l []string
-	for _, x := range story {
-		l = append(l, x.text)
-	}
-	return strings.Join(l, " ")
-}
-
-func (w *world[T]) tells(t *gate.Thread, text string) {
-	w.story = append(w.story, word{t.Number(), text})
+	return w.story[from:].String()
 }
 
 // does makes a call. The panic of a deed is caught; the gate's own is not.
@@ -133,7 +114,7 @@ func (w *world[T]) does(t *gate.Thread, k *known[T], c call) {
 		switch x := recover().(type) {
 		case nil:
 		case string:
-			w.tells(t, "fell:"+x)
+			w.story.Tells(t, "fell:"+x)
 		default:
 			panic(x)
 		}
@@ -145,16 +126,16 @@ func (w *world[T]) does(t *gate.Thread, k *known[T], c call) {
 	switch c.op {
 	case child:
 		x, e := of.Child(t)
-		w.tells(t, w.bears(k, x, e))
+		w.story.Tells(t, w.bears(k, x, e))
 	case set:
-		w.tells(t, named(of.OnCancel(t, w.function(k, c.does))))
+		w.story.Tells(t, named(of.OnCancel(t, w.function(k, c.does))))
 	case cancel:
-		w.tells(t, map[bool]string{true: "yes", false: "no"}[of.Cancel(t, c.n)])
+		w.story.Tells(t, aid.Yes(of.Cancel(t, c.n)))
 	case ask:
-		w.tells(t, strconv.FormatInt(of.Reason(t), 10))
+		w.story.Tells(t, strconv.FormatInt(of.Reason(t), 10))
 	case wait:
 		defer inTime()()
-		w.tells(t, "woke:"+strconv.FormatInt(of.Wait(t), 10))
+		w.story.Tells(t, "woke:"+strconv.FormatInt(of.Wait(t), 10))
 	}
 }
 
@@ -202,7 +183,7 @@ func (w *world[T]) function(k *known[T], d *deed) func(t *gate.Thread, reason in
 	}
 	row := slices.Clone(k.row)
 	return func(t *gate.Thread, reason int64) {
-		w.tells(t, d.name+":"+strconv.FormatInt(reason, 10)+"(")
+		w.story.Tells(t, d.name+":"+strconv.FormatInt(reason, 10)+"(")
 		own := known[T]{slices.Clone(row)}
 		for _, c := range d.calls {
 			w.does(t, &own, c)
@@ -210,7 +191,7 @@ func (w *world[T]) function(k *known[T], d *deed) func(t *gate.Thread, reason in
 		if d.falls {
 			panic(d.name)
 		}
-		w.tells(t, ")")
+		w.story.Tells(t, ")")
 	}
 }
 
@@ -231,5 +212,5 @@ func (w *world[T]) bodies(calls [][]call) (l []func(t *gate.Thread)) {
 func alone[T kind[T]](w *world[T], calls ...call) (api.Report, string) {
 	from := len(w.story)
 	report := gate.Run(nil, api.MaxTurns, w.bodies([][]call{calls})...)
-	return report, told(w.story[from:])
+	return report, w.story[from:].String()
 }

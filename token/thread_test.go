@@ -30,7 +30,7 @@ func (m meeting) look(t *testing.T) {
 	if m.left != "" {
 		end = api.Dead
 	}
-	if s := told(w.story[from:]); aid.Texts(r.Log) != m.log || s != m.told || aid.Texts(r.Left) != m.left || r.End != end {
+	if s := w.story[from:].String(); aid.Texts(r.Log) != m.log || s != m.told || aid.Texts(r.Left) != m.left || r.End != end {
 		t.Errorf("P11.2 to P11.6: %s:\n got %s, end %d, left %s: %s\nwant %s: %s", m.what, aid.Texts(r.Log), r.End, aid.Texts(r.Left), s, m.log, m.told)
 	}
 	var all []call
@@ -137,12 +137,8 @@ func TestMany(t *testing.T) {
 				{asks(h % 4), sets(1, f), cancels(h%8/2, int64(h+1)), bears(1), sets(4, f), cancels(0, int64(h+1))},
 			}[(h+seed)%4]
 		}
-		picks := make([]int, 1<<12)
-		for i := range picks {
-			picks[i] = i * (seed + 1) * 7
-		}
 		p := newPair(t, []call{bears(0), bears(1), bears(0), sets(2, busy("y", cancels(3, 77)))})
-		r := p.run(t, calls, picks[:len(picks)*(seed%2)], api.MaxTurns)
+		r := p.run(t, calls, aid.Spread((seed%2)<<12, 7*(seed+1)), api.MaxTurns)
 		if p.ends(t, r.End == api.Over); t.Failed() || r.End != api.Over {
 			t.Fatalf("what follows: %d: end %d", seed, r.End)
 		}
@@ -228,7 +224,7 @@ func TestFallen(t *testing.T) {
 		w.makes(t, sets(0, quiet("A")))
 		panic("x")
 	}, func(t *gate.Thread) { w.makes(t, sets(1, quiet("B"))) })
-	if got, want := told(w.story), "#1 ok ok B:6( ) A:6( )"; !slices.Equal(r.Fell, []int{0}) || r.End != api.Over || got != want || w.makes(nil, asks(1)) != "6" {
+	if got, want := w.story.String(), "#1 ok ok B:6( ) A:6( )"; !slices.Equal(r.Fell, []int{0}) || r.End != api.Over || got != want || w.makes(nil, asks(1)) != "6" {
 		t.Errorf("what follows: %s, not %s: %+v", got, want, r)
 	}
 }
