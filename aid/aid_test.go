@@ -490,8 +490,8 @@ func TestStory(t *testing.T) {
 	if s.String() != "a b" || s[1:].String() != "b" || s[0] != (aid.Word{Thread: -1, Text: "a"}) || s[1] != (aid.Word{Thread: 1, Text: "b"}) {
 		t.Errorf("%v", s)
 	}
-	if got := aid.Story(nil).String() + aid.Yes(true) + aid.Yes(false); got != "yesno" {
-		t.Errorf("%s", got)
+	if got := aid.Story(nil).String() + aid.Yes(true) + aid.Yes(false); got != "yesno" || aid.Digit(true) != 1 || aid.Digit(false) != 0 {
+		t.Errorf("%s, %d, %d", got, aid.Digit(true), aid.Digit(false))
 	}
 }
 

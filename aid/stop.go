@@ -67,3 +67,19 @@ func By(f func(who string, t *gate.Thread)) (faults []string) {
 	}
 	return faults
 }
+
+// Midsts: what a function may do about it that its thread is stopped at an access in its midst: at this add, but where it says otherwise.
+func Midsts(add Body) map[string]Body {
+	recovers := func(t *gate.Thread) { _ = Caught(func() { add(t) }) }
+	return map[string]Body{
+		"goes on":                        add,
+		"recovers, and answers":          recovers,
+		"recovers, and accesses more":    func(t *gate.Thread) { recovers(t); add(t) },
+		"recovers, and panics":           func(t *gate.Thread) { recovers(t); panic("x") },
+		"recovers, and panics with it":   func(t *gate.Thread) { defer func() { panic(recover()) }(); add(t) },
+		"defers a panic":                 func(t *gate.Thread) { defer panic("x"); add(t) },
+		"defers an access":               func(t *gate.Thread) { defer add(t); add(t) },
+		"panics, and accesses meanwhile": func(t *gate.Thread) { defer add(t); panic("x") },
+		"begins a thread":                func(t *gate.Thread) { t.Go(nil) },
+	}
+}

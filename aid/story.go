@@ -34,3 +34,11 @@ func Yes(is bool) string {
 	}
 	return "no"
 }
+
+// Digit: 1 of what is so, 0 of what is not.
+func Digit(is bool) int {
+	if is {
+		return 1
+	}
+	return 0
+}

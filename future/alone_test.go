@@ -334,20 +334,10 @@ func heardOf(th *gate.Thread, fill func(x *future.Future) bool) (l []aid.Answer,
 	return l, x
 }
 
-// own: an error of no chapter.
-type own struct{ name string }
-
-func (o *own) Error() string { return o.name }
-
-// awkward: one that can't be held against another by ==, and panics when it is asked for its text.
-type awkward []error
-
-func (a awkward) Error() string { panic("asked") }
-
 // TestErrors: an error that a future is filled with, whatever it is, is what everybody is told, just that one, with 0; and what a Map comes to.
 func TestErrors(t *testing.T) {
 	by(t, func(who string, th *gate.Thread) {
-		for i, e := range []error{&own{"a"}, io.EOF, &fault.Failed{Code: 1}, &fault.Cancelled{Reason: 0}, &fault.Late{Due: 1}, &fault.Panicked{Value: 1}, fault.Wrap(3, io.EOF), fault.Wrap(1, fault.Wrap(2, &fault.Late{})), &fault.At{}, (*fault.Failed)(nil), (*fault.Panicked)(nil), (*fault.At)(nil), (*own)(nil), api.ErrNil, api.OK, api.Errno(-1)} {
+		for i, e := range aid.Errors() {
 			for _, v := range []int64{0, 5, -1, math.MinInt64} {
 				l, x := heardOf(th, func(x *future.Future) bool { return x.Complete(th, v, e) })
 				g, _ := x.Map(th, func(int64) (int64, error) { panic("never") })
@@ -357,10 +347,10 @@ func TestErrors(t *testing.T) {
 				}
 			}
 		}
-		l, x := heardOf(th, func(x *future.Future) bool { return x.Claim(th).Fill(th, 5, awkward{io.EOF}) })
+		l, x := heardOf(th, func(x *future.Future) bool { return x.Claim(th).Fill(th, 5, aid.Awkward{io.EOF}) })
 		g, _ := x.Map(th, func(int64) (int64, error) { panic("never") })
 		for _, a := range append(l, aid.Told(g.Await(th))) {
-			if a.V != 0 || a.E.(awkward)[0] != io.EOF {
+			if a.V != 0 || a.E.(aid.Awkward)[0] != io.EOF {
 				t.Errorf("P14.2: an error that is not to be asked, by %s: %d", who, a.V)
 			}
 		}

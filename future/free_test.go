@@ -43,7 +43,7 @@ func begun(th *gate.Thread, x *future.Future, n int) (l []*asleep) {
 // answered: how many of them were.
 func answered(l []*asleep) (n int) {
 	for _, s := range l {
-		n += digit(s.answered)
+		n += aid.Digit(s.answered)
 	}
 	return n
 }
@@ -66,7 +66,7 @@ func TestWhoAwaitsSleeps(t *testing.T) {
 				did := false
 				go func() { did = p.Fill(th, is.V, is.E) }()
 				l = append(l, begun(th, x, 5)...)
-				if answered(l) != len(l) || answered(maps) != len(maps)*digit(is.E != nil) {
+				if answered(l) != len(l) || answered(maps) != len(maps)*aid.Digit(is.E != nil) {
 					t.Errorf("P14.2, what follows: as the functions go on %d answer, and %d of those who await the Map's", answered(l), answered(maps))
 				}
 				close(goes)
@@ -140,7 +140,7 @@ func (m *point) fits(a aid.Answer) bool {
 func (m *point) completes(a *heard, h int) {
 	v, e := m.with(h)
 	done := m.x.Complete(nil, v, e)
-	a.claimed, a.filled = a.claimed+digit(done), a.filled+digit(done)
+	a.claimed, a.filled = a.claimed+aid.Digit(done), a.filled+aid.Digit(done)
 }
 
 func (m *point) claims(a *heard, h int) {
@@ -150,14 +150,14 @@ func (m *point) claims(a *heard, h int) {
 	}
 	a.claimed++
 	v, e := m.with(h)
-	a.filled += digit(p.Fill(nil, v, e))
-	a.wrong += digit(p.Fill(nil, v+1, nil))
+	a.filled += aid.Digit(p.Fill(nil, v, e))
+	a.wrong += aid.Digit(p.Fill(nil, v+1, nil))
 }
 
 // hears: what somebody is told.
 func (m *point) hears(a *heard, told aid.Answer) {
 	a.told = append(a.told, told)
-	a.wrong += digit(!m.fits(told))
+	a.wrong += aid.Digit(!m.fits(told))
 }
 
 func (m *point) awaits(a *heard) { m.hears(a, aid.Told(m.x.Await(nil))) }
@@ -167,7 +167,7 @@ func (m *point) peeks(a *heard) (done bool) {
 	if done {
 		m.hears(a, aid.Told(v, e))
 	}
-	a.wrong += digit(!done && (v != 0 || e != nil))
+	a.wrong += aid.Digit(!done && (v != 0 || e != nil))
 	return done
 }
 
@@ -178,15 +178,15 @@ func (m *point) thens(a *heard) {
 		d.called++
 		d.told = aid.Told(v, err)
 		_, _, done := m.x.Peek(nil)
-		d.wrong += digit(d.laid != 1) + digit(!m.fits(d.told)) + digit(u != nil) + digit(!done)
+		d.wrong += aid.Digit(d.laid != 1) + aid.Digit(!m.fits(d.told)) + aid.Digit(u != nil) + aid.Digit(!done)
 	})
 	d.refused = e == api.ErrFull
-	a.wrong += digit(e != api.OK && e != api.ErrFull)
+	a.wrong += aid.Digit(e != api.OK && e != api.ErrFull)
 }
 
 func (m *point) maps(a *heard) {
 	g, e := m.x.Map(nil, func(v int64) (int64, error) { return v + 1000, nil })
-	if a.wrong += digit((g == nil) != (e != api.OK)); g != nil {
+	if a.wrong += aid.Digit((g == nil) != (e != api.OK)); g != nil {
 		a.maps = append(a.maps, g)
 	}
 }
@@ -202,13 +202,13 @@ func (m *point) holds() bool {
 	for _, a := range m.got {
 		claimed, filled, wrong = claimed+a.claimed, filled+a.filled, wrong+a.wrong
 		for _, told := range a.told {
-			wrong += digit(told != last)
+			wrong += aid.Digit(told != last)
 		}
 		for _, d := range a.deals {
-			wrong += d.wrong + digit(d.called != digit(!d.refused)) + digit(d.called == 1 && d.told != last)
+			wrong += d.wrong + aid.Digit(d.called != aid.Digit(!d.refused)) + aid.Digit(d.called == 1 && d.told != last)
 		}
 		for _, g := range a.maps {
-			wrong += digit(aid.Told(g.Await(nil)) != made)
+			wrong += aid.Digit(aid.Told(g.Await(nil)) != made)
 		}
 	}
 	return wrong == 0 && claimed == 1 && filled == 1 && m.fits(last) && m.x.Claim(nil) == nil && !m.x.Complete(nil, 9, nil)
@@ -336,7 +336,7 @@ func TestLastPlacesMeet(t *testing.T) {
 		for _, m := range all {
 			for _, a := range m.got {
 				for _, d := range a.deals {
-					refused, filled = refused+digit(d.refused), filled+digit(d.called == 1)
+					refused, filled = refused+aid.Digit(d.refused), filled+aid.Digit(d.called == 1)
 				}
 			}
 		}
@@ -408,21 +408,21 @@ func (x *net) does(r *rand.Rand, i int) {
 	case 1:
 		if p := y.Claim(nil); p != nil {
 			v := r.Int63n(1000)
-			x.amiss.Add(int64(digit(!p.Fill(nil, v, nil)) + digit(p.Fill(nil, v+1, nil))))
+			x.amiss.Add(int64(aid.Digit(!p.Fill(nil, v, nil)) + aid.Digit(p.Fill(nil, v+1, nil))))
 			x.done[i].Add(1000*v + 1)
 		}
 	case 2:
 		v, e, done := y.Peek(nil)
 		runtime.Gosched()
 		w, f, still := y.Peek(nil)
-		x.amiss.Add(int64(digit(done && (!still || v != w || e != f))))
+		x.amiss.Add(int64(aid.Digit(done && (!still || v != w || e != f))))
 	case 3:
 		g, e := y.Map(nil, func(v int64) (int64, error) { return v + 1, nil })
 		if e == api.OK {
 			x.gives(i, func(*gate.Thread, int64, error) {
 				v, e := g.Await(nil) // it stands ahead in the list, or was called at once
 				w, f := y.Await(nil)
-				x.amiss.Add(int64(digit(v != w+1 || e != nil || f != nil)))
+				x.amiss.Add(int64(aid.Digit(v != w+1 || e != nil || f != nil)))
 			})
 		}
 	default:
@@ -440,13 +440,13 @@ func (x *net) gives(i int, f function) {
 	e := x.all[i].Then(nil, func(u *gate.Thread, v int64, err error) {
 		x.calls[i].Add(1)
 		w, is := x.all[i].Await(nil)
-		x.amiss.Add(int64(digit(u != nil || v != w || err != is)))
+		x.amiss.Add(int64(aid.Digit(u != nil || v != w || err != is)))
 		f(u, v, err)
 	})
 	if e == api.OK {
 		x.given[i].Add(1)
 	}
-	x.amiss.Add(int64(digit(e != api.OK && e != api.ErrFull)))
+	x.amiss.Add(int64(aid.Digit(e != api.OK && e != api.ErrFull)))
 }
 
 // TestNets: hands that fill, bring functions, map and look as they like.

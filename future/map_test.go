@@ -55,7 +55,7 @@ func TestMapAnswers(t *testing.T) {
 				}
 			})
 		}
-		for i, e := range []error{&own{"a"}, io.EOF, &fault.Failed{Code: 1}, &fault.Cancelled{Reason: 2}, &fault.Late{Due: 1}, &fault.Panicked{Value: 1}, fault.Wrap(3, io.EOF), (*fault.Failed)(nil), (*own)(nil), api.ErrNil, api.OK} {
+		for i, e := range aid.Errors() {
 			for _, v := range []int64{0, 5, math.MinInt64} {
 				mapped(t, th, 8, func(int64) (int64, error) { return v, e }, func(when string, g *future.Future) {
 					if a := aid.Told(g.Await(th)); a != aid.Told(0, e) {
@@ -69,30 +69,19 @@ func TestMapAnswers(t *testing.T) {
 
 // TestMapPanics: what the function panics with is carried to each who awaits, and comes out of nothing.
 func TestMapPanics(t *testing.T) {
-	nought := int64(0)
-	var m map[int]int
 	by(t, func(who string, th *gate.Thread) {
-		for what, row := range map[string]struct {
-			f    change
-			with any // nil: whatever the machine says
-		}{
-			"a number": {func(int64) (int64, error) { panic(7) }, 7}, "a text": {func(int64) (int64, error) { panic("x") }, "x"}, "false": {func(int64) (int64, error) { panic(false) }, false}, "an error": {func(int64) (int64, error) { panic(io.EOF) }, io.EOF},
-			"an errno": {func(int64) (int64, error) { panic(api.ErrCancelled) }, api.ErrCancelled}, "nil": {func(int64) (int64, error) { panic(nil) }, nil},
-			"a division by nought": {func(v int64) (int64, error) { return v / nought, nil }, nil}, "a nil map": {func(int64) (int64, error) { m[1] = 2; return 5, nil }, nil},
-			"behind an answer":  {func(int64) (int64, error) { defer panic("x"); return 5, io.EOF }, "x"},
-			"in place of one":   {func(int64) (int64, error) { defer panic("x"); panic("y") }, "x"},
-			"one that it knows": {func(int64) (int64, error) { defer func() { panic(recover()) }(); panic("x") }, "x"},
-		} {
-			mapped(t, th, 8, row.f, func(when string, g *future.Future) {
+		for what, row := range aid.Falls() {
+			mapped(t, th, 8, func(int64) (int64, error) { row.Do(); return 5, io.EOF }, func(when string, g *future.Future) {
 				_, first := g.Await(th)
 				var called error
 				g.Then(th, func(_ *gate.Thread, _ int64, e error) { called = e })
 				v, e, done := g.Peek(th)
 				p, is := e.(*fault.Panicked)
-				if v != 0 || !is || !done || e != first || e != called || row.with != nil && p.Value != row.with || p.Value == nil {
+				if v != 0 || !is || !done || e != first || e != called || row.With != nil && p.Value != row.With || p.Value == nil {
 					t.Fatalf("P14.7: %s, %s, by %s: %d %#v", what, when, who, v, e)
 				}
-				if fault.Class(e) != api.ErrPanic || errors.Is(e, io.EOF) {
+				within, _ := row.With.(error)
+				if fault.Class(e) != api.ErrPanic || errors.Is(e, io.EOF) || errors.Is(e, within) {
 					t.Errorf("P14.7: %s, %s, by %s: found is %d", what, when, who, fault.Class(e))
 				}
 			})
@@ -241,18 +230,11 @@ func nestedStopped(t *testing.T, parts, turns int) {
 	for i := range all {
 		_, _, done := all[i].Peek(nil)
 		_, _, also := maps[i].Peek(nil)
-		filled, mapped = filled+digit(done), mapped+digit(also)
+		filled, mapped = filled+aid.Digit(done), mapped+aid.Digit(also)
 	}
 	if want := min(parts, (turns+1)/3); filled != want || mapped != (max(turns, 3*parts)-3*parts+1)/3 {
 		t.Errorf("P14.2, P14.7: %d turns: %d are filled, not %d; of the Maps' %d", turns, filled, want, mapped)
 	}
-}
-
-func digit(is bool) int {
-	if is {
-		return 1
-	}
-	return 0
 }
 
 // TestErrorsOfMapsAreNotWrapped: an error goes through Maps of Maps as it is, and calls nothing.

@@ -244,7 +244,7 @@ func stoppedFill(t *testing.T, one, other aid.Answer, turns int) {
 	if is := p.Fill(nil, other.V, other.E); is == filled || p.Fill(nil, 8, nil) {
 		t.Errorf("P14.2: %v, %d turns: then %v: %v", one, turns, other, is)
 	}
-	if v, e, done := x.Peek(nil); !done || aid.Told(v, e) != want || called != digit(turns != 1) {
+	if v, e, done := x.Peek(nil); !done || aid.Told(v, e) != want || called != aid.Digit(turns != 1) {
 		t.Errorf("P14.2: %v, %d turns, then %v: it comes to %d %v %v; %d are called", one, turns, other, v, e, done, called)
 	}
 }

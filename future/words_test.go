@@ -4,6 +4,7 @@ import (
 	"slices"
 	"sync/atomic"
 
+	"treadle/aid"
 	"treadle/api"
 	"treadle/fault"
 	"treadle/gate"
@@ -41,28 +42,10 @@ func newWords() *words { return &words{} }
 
 // step: an access: what was, what is, and, of a Cas, whether it is done.
 func (x *words) step(t *gate.Thread, cell int, op int8, arg, next int64) (was, is int64, ok bool) {
-	c := &x.cells[cell]
-	if t.Live() {
-		return t.Step(c, op, arg, next)
-	}
-	was = c.Load()
-	is, ok = was, op == api.OpCas && was == arg
-	switch {
-	case op == api.OpStore || op == api.OpSwap:
-		is = arg
-	case op == api.OpAdd:
-		is = was + arg
-	case ok:
-		is = next
-	}
-	c.Store(is)
-	return was, is, ok
+	return aid.Step(t, &x.cells[cell], op, arg, next)
 }
 
-func (x *words) load(t *gate.Thread, cell int) int64 {
-	was, _, _ := x.step(t, cell, api.OpLoad, 0, 0)
-	return was
-}
+func (x *words) load(t *gate.Thread, cell int) int64 { return aid.Load(t, &x.cells[cell]) }
 
 func (x *words) Claim(t *gate.Thread) *pledged {
 	if x == nil {

@@ -91,7 +91,7 @@ func TestWhoWaitsSleeps(t *testing.T) {
 // answered: how many of them were.
 func answered(l []*asleep) (n int) {
 	for _, s := range l {
-		n += digit(s.answered)
+		n += aid.Digit(s.answered)
 	}
 	return n
 }
@@ -143,8 +143,8 @@ func newPoint(i, hands int) *point {
 
 func (m *point) runs(a *heard) {
 	ran := m.x.Run(nil)
-	a.ran += digit(ran)
-	a.wrong += digit(ran && !m.over.Load())
+	a.ran += aid.Digit(ran)
+	a.wrong += aid.Digit(ran && !m.over.Load())
 }
 
 func (m *point) cancels(a *heard, reason int64) {
@@ -165,13 +165,13 @@ func (m *point) waits(a *heard, i int) {
 	last := aid.Told(m.x.Wait(nil))
 	a.told = append(a.told, last)
 	if fault.Class(last.E) != api.ErrCancelled {
-		a.wrong += digit(!m.over.Load()) + digit(m.plain != i+1)
+		a.wrong += aid.Digit(!m.over.Load()) + aid.Digit(m.plain != i+1)
 	}
 	s := task.Ended
 	if last.E != nil {
 		s = task.Fell
 	}
-	a.wrong += digit(m.x.State(nil) != s)
+	a.wrong += aid.Digit(m.x.State(nil) != s)
 }
 
 // holds: whether what the hands were told is as it is to be: just one of them did it, or the token's reason did; all are told the same.
@@ -182,8 +182,8 @@ func (m *point) holds() bool {
 	for _, a := range m.got {
 		ran, cancelled, wrong = ran+a.ran, cancelled+a.cancelled, wrong+a.wrong
 		reason += a.reason
-		wrong += digit(a.barred && m.called.Load() > 0)
-		wrong += digit(slices.ContainsFunc(a.told, func(x aid.Answer) bool { return x != last }))
+		wrong += aid.Digit(a.barred && m.called.Load() > 0)
+		wrong += aid.Digit(slices.ContainsFunc(a.told, func(x aid.Answer) bool { return x != last }))
 	}
 	want := m.want
 	if ran == 0 {
@@ -371,15 +371,15 @@ func (x *crowd) does(r *rand.Rand, i int) {
 	y := x.all[i]
 	switch r.Intn(6) {
 	case 0, 1:
-		x.done[i].Add(int64(digit(y.Run(nil))))
+		x.done[i].Add(int64(aid.Digit(y.Run(nil))))
 	case 2:
-		x.done[i].Add(1001 * int64(digit(y.Cancel(nil, int64(1+r.Intn(9))))))
+		x.done[i].Add(1001 * int64(aid.Digit(y.Cancel(nil, int64(1+r.Intn(9))))))
 	case 3:
 		was := y.State(nil)
 		runtime.Gosched()
-		x.amiss.Add(int64(digit(y.State(nil) < was)))
+		x.amiss.Add(int64(aid.Digit(y.State(nil) < was)))
 	default:
-		x.done[i].Add(int64(digit(y.Run(nil))))
+		x.done[i].Add(int64(aid.Digit(y.Run(nil))))
 		x.waits(i)
 	}
 }
@@ -387,7 +387,7 @@ func (x *crowd) does(r *rand.Rand, i int) {
 func (x *crowd) waits(i int) {
 	v, e := x.all[i].Wait(nil)
 	again, same := x.all[i].Wait(nil)
-	x.amiss.Add(int64(digit(v != again || e != same || x.calls[i].Load() != x.ends[i].Load() || e == nil && v != int64(i) || e != nil && v != 0)))
+	x.amiss.Add(int64(aid.Digit(v != again || e != same || x.calls[i].Load() != x.ends[i].Load() || e == nil && v != int64(i) || e != nil && v != 0)))
 }
 
 // TestCrowds: hands that run, cancel and wait as they like, of tasks that do so, too.
@@ -406,7 +406,7 @@ func TestCrowds(t *testing.T) {
 				x.does(r, r.Intn(tasks))
 			}
 			for i := range x.all {
-				x.done[i].Add(int64(digit(x.all[i].Run(nil))))
+				x.done[i].Add(int64(aid.Digit(x.all[i].Run(nil))))
 				x.waits(i)
 			}
 		})
@@ -419,7 +419,7 @@ func TestCrowds(t *testing.T) {
 			if !fits || x.amiss.Load() != 0 {
 				t.Fatalf("what follows: seed %d: the task %d: called %d times, done %d: %d %v; %d times amiss", seed, i, called, done, v, e, x.amiss.Load())
 			}
-			ran, cancelled, dropped = ran+digit(called == 1), cancelled+digit(done == 1001), dropped+digit(done == 0)
+			ran, cancelled, dropped = ran+aid.Digit(called == 1), cancelled+aid.Digit(done == 1001), dropped+aid.Digit(done == 0)
 		}
 	}
 	if ran < 1000 || cancelled < 1000 || dropped < 200 {

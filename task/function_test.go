@@ -29,16 +29,6 @@ func panics(x any) function {
 	return func(*gate.Thread) (int64, error) { panic(x) }
 }
 
-// own: an error of no chapter.
-type own struct{ name string }
-
-func (o *own) Error() string { return o.name }
-
-// awkward: one that can't be held against another by ==, and panics when it is asked for its text.
-type awkward []error
-
-func (a awkward) Error() string { panic("asked") }
-
 // TestValues: what a function answers is what each Wait is told, and the task has ended.
 func TestValues(t *testing.T) {
 	by(t, func(who string, th *gate.Thread) {
@@ -57,7 +47,7 @@ func TestValues(t *testing.T) {
 // TestErrors: an error that a function answers is what each Wait is told, just that one, with 0, and the task has fallen.
 func TestErrors(t *testing.T) {
 	by(t, func(who string, th *gate.Thread) {
-		for i, e := range []error{&own{"a"}, io.EOF, &fault.Failed{Code: 1}, &fault.Cancelled{Reason: 0}, &fault.Late{Due: 1}, &fault.Panicked{Value: 1}, fault.Wrap(3, io.EOF), &fault.At{}, (*fault.Failed)(nil), (*fault.At)(nil), (*own)(nil), api.ErrNil, api.OK, api.Errno(-1)} {
+		for i, e := range aid.Errors() {
 			for _, v := range []int64{0, 5, -1, math.MinInt64} {
 				x := task.New(1, nil, answers(v, e))
 				ran := x.Run(th)
@@ -68,9 +58,9 @@ func TestErrors(t *testing.T) {
 				}
 			}
 		}
-		x := task.New(1, nil, answers(5, awkward{io.EOF}))
+		x := task.New(1, nil, answers(5, aid.Awkward{io.EOF}))
 		x.Run(th)
-		if v, e := x.Wait(th); v != 0 || e.(awkward)[0] != io.EOF || x.State(th) != task.Fell {
+		if v, e := x.Wait(th); v != 0 || e.(aid.Awkward)[0] != io.EOF || x.State(th) != task.Fell {
 			t.Errorf("P13.2: an error that is not to be asked, by %s: %d", who, v)
 		}
 	})
@@ -78,21 +68,9 @@ func TestErrors(t *testing.T) {
 
 // TestPanics: what a function panics with is carried to each Wait, and comes out of no Run.
 func TestPanics(t *testing.T) {
-	nought := 0
-	var m map[int]int
 	by(t, func(who string, th *gate.Thread) {
-		for what, row := range map[string]struct {
-			f    function
-			with any // nil: whatever the machine says
-		}{
-			"a number": {panics(int64(1)), int64(1)}, "a text": {panics("x"), "x"}, "false": {panics(false), false}, "an error": {panics(io.EOF), io.EOF}, "an errno": {panics(api.ErrCancelled), api.ErrCancelled},
-			"cancelled": {panics(fault.Cancelled{Reason: 3}), fault.Cancelled{Reason: 3}}, "an array": {panics([2]int{1, 2}), [2]int{1, 2}},
-			"nil": {panics(nil), nil}, "a division by nought": {func(*gate.Thread) (int64, error) { return int64(1 / nought), nil }, nil}, "a nil map": {func(*gate.Thread) (int64, error) { m[1] = 2; return 5, nil }, nil},
-			"behind an answer":   {func(*gate.Thread) (v int64, e error) { defer panic("x"); return 5, io.EOF }, "x"},
-			"in place of one":    {func(*gate.Thread) (int64, error) { defer panic("x"); panic("y") }, "x"},
-			"what it knew first": {func(*gate.Thread) (int64, error) { defer func() { panic(recover()) }(); panic("x") }, "x"},
-		} {
-			x := task.New(1, nil, row.f)
+		for what, row := range aid.Falls() {
+			x := task.New(1, nil, func(*gate.Thread) (int64, error) { row.Do(); return 5, io.EOF })
 			ran := false
 			if out := aid.Caught(func() { ran = x.Run(th) }); out != nil || !ran || x.State(th) != task.Fell {
 				t.Errorf("P13.2: %s, by %s: it answers %v, out comes %v", what, who, ran, out)
@@ -101,19 +79,14 @@ func TestPanics(t *testing.T) {
 			for range 3 {
 				v, e := x.Wait(th)
 				p, is := e.(*fault.Panicked)
-				if v != 0 || !is || e != first || row.with != nil && p.Value != row.with || p.Value == nil {
+				if v != 0 || !is || e != first || row.With != nil && p.Value != row.With || p.Value == nil {
 					t.Fatalf("P13.2, P13.4: %s, by %s: %d %#v", what, who, v, e)
 				}
-				if !errors.Is(e, api.ErrPanic) || errors.Is(e, io.EOF) || fault.Class(e) != api.ErrPanic {
+				within, _ := row.With.(error)
+				if !errors.Is(e, api.ErrPanic) || errors.Is(e, io.EOF) || errors.Is(e, within) || fault.Class(e) != api.ErrPanic {
 					t.Errorf("what follows: %s, by %s: found is %d", what, who, fault.Class(e))
 				}
 			}
-		}
-		cancelled := &fault.Cancelled{Reason: 3}
-		x := task.New(1, nil, panics(cancelled))
-		x.Run(th)
-		if _, e := x.Wait(th); fault.Class(e) != api.ErrPanic || e.(*fault.Panicked).Value != any(cancelled) {
-			t.Errorf("what follows: a panic with an error of chapter 12, by %s: %#v", who, e)
 		}
 	})
 }
@@ -234,19 +207,9 @@ func TestItBeginsThreads(t *testing.T) {
 func TestStoppedInItsMidst(t *testing.T) {
 	x := cell.New(0)
 	adds := func(t *gate.Thread) { x.Add(t, 1) }
-	recovers := func(t *gate.Thread) { _ = aid.Caught(func() { adds(t) }) }
-	for what, f := range map[string]func(t *gate.Thread){
-		"goes on":                        adds,
-		"recovers, and answers":          recovers,
-		"recovers, and accesses more":    func(t *gate.Thread) { recovers(t); adds(t) },
-		"recovers, and panics":           func(t *gate.Thread) { recovers(t); panic("x") },
-		"recovers, and panics with it":   func(t *gate.Thread) { defer func() { panic(recover()) }(); adds(t) },
-		"defers a panic":                 func(t *gate.Thread) { defer panic("x"); adds(t) },
-		"defers an access":               func(t *gate.Thread) { defer adds(t); adds(t) },
-		"panics, and accesses meanwhile": func(t *gate.Thread) { defer adds(t); panic("x") },
-		"sleeps":                         func(t *gate.Thread) { x.Park(t, 0) },
-		"begins a thread":                func(t *gate.Thread) { t.Go(nil) },
-	} {
+	midsts := aid.Midsts(adds)
+	midsts["sleeps"] = func(t *gate.Thread) { x.Park(t, 0) }
+	for what, f := range midsts {
 		for _, k := range []*token.Token{nil, token.New()} {
 			called := 0
 			y := task.New(7, k, func(t *gate.Thread) (int64, error) {
@@ -380,7 +343,7 @@ func nestedStopped(t *testing.T, parts, turns int) {
 		t.Errorf("P13.2: %d turns: %v comes out", turns, out)
 	}
 	for i, x := range all {
-		if s := x.State(nil); s != digit(i < turns) {
+		if s := x.State(nil); s != aid.Digit(i < turns) {
 			t.Fatalf("P13.2: %d turns: the state of the task %d is %d", turns, i, s)
 		}
 	}

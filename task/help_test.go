@@ -175,11 +175,11 @@ func (w *world) does(t *gate.Thread, c call) {
 	switch c.op {
 	case run:
 		ok := x.Run(t)
-		w.counts(c.of, func(f *fact) { f.runs += digit(ok) })
+		w.counts(c.of, func(f *fact) { f.runs += aid.Digit(ok) })
 		said = aid.Yes(ok)
 	case cancel:
 		ok := x.Cancel(t, c.n)
-		w.counts(c.of, func(f *fact) { f.cancels += digit(ok) })
+		w.counts(c.of, func(f *fact) { f.cancels += aid.Digit(ok) })
 		said = aid.Yes(ok)
 	case wait:
 		said = w.waits(t, c.of)
@@ -216,13 +216,6 @@ func (w *world) counts(of int, notices func(f *fact)) {
 	if of >= 0 && of < len(w.facts) {
 		notices(&w.facts[of])
 	}
-}
-
-func digit(ok bool) int {
-	if ok {
-		return 1
-	}
-	return 0
 }
 
 // function: of the task with this place.

@@ -174,8 +174,8 @@ func counts(met map[string]int, r api.Report, w *world) {
 		}
 	}
 	for _, x := range w.story {
-		met["Run: no"] += digit(strings.HasPrefix(x.Text, "run") && strings.HasSuffix(x.Text, ":no"))
-		met["Cancel: no"] += digit(strings.HasPrefix(x.Text, "cancel") && strings.HasSuffix(x.Text, ":no"))
+		met["Run: no"] += aid.Digit(strings.HasPrefix(x.Text, "run") && strings.HasSuffix(x.Text, ":no"))
+		met["Cancel: no"] += aid.Digit(strings.HasPrefix(x.Text, "cancel") && strings.HasSuffix(x.Text, ":no"))
 	}
 	for _, f := range w.facts {
 		met["told at once"] += len(f.told)
@@ -205,7 +205,7 @@ func TestSomebodyRuns(t *testing.T) {
 		x := newPair(t, p)
 		report := x.run(t, calls, aid.Picks(r.Intn, 60), api.MaxTurns)
 		for _, a := range report.Log {
-			waited += digit(a.Op == api.OpPark)
+			waited += aid.Digit(a.Op == api.OpPark)
 		}
 		for i, y := range x.is.tasks {
 			if s := y.State(nil); s < 2 {

@@ -3,6 +3,7 @@ package task_test
 import (
 	"sync/atomic"
 
+	"treadle/aid"
 	"treadle/api"
 	"treadle/fault"
 	"treadle/gate"
@@ -26,18 +27,8 @@ func worded(number int64, k *token.Token, f function) kind {
 
 // step: an access of the state: what was, and, of a Cas, whether it is done.
 func (x *words) step(t *gate.Thread, op int8, arg, next int64) (int64, bool) {
-	if t.Live() {
-		was, _, ok := t.Step(&x.state, op, arg, next)
-		return was, ok
-	}
-	was := x.state.Load()
-	if op == api.OpStore {
-		x.state.Store(arg)
-	}
-	if op == api.OpCas && was == arg {
-		x.state.Store(next)
-	}
-	return was, op == api.OpCas && was == arg
+	was, _, ok := aid.Step(t, &x.state, op, arg, next)
+	return was, ok
 }
 
 func (x *words) Number() int64 { return x.number }
