@@ -19,6 +19,15 @@ func Bursts(intn func(n int) int, turns []int) (picks []int) {
 	return picks
 }
 
+// Mixed: Picks of an odd seed, Bursts of an even one.
+func Mixed(seed int64, intn func(n int) int, most int, turns []int) []int {
+	picks := Picks(intn, most)
+	if seed%2 == 0 {
+		picks = Bursts(intn, turns)
+	}
+	return picks
+}
+
 // Goes: picks by which one thread goes so often, then one so often, and so on.
 func Goes(turns ...[2]int) (picks []int) {
 	for _, x := range turns {

@@ -41,6 +41,19 @@ func TestBursts(t *testing.T) {
 	}
 }
 
+func TestMixed(t *testing.T) {
+	for seed := range int64(200) {
+		one, other := rand.New(rand.NewSource(seed)), rand.New(rand.NewSource(seed))
+		want := aid.Picks(other.Intn, 7)
+		if seed%2 == 0 {
+			want = aid.Bursts(other.Intn, []int{3, 4})
+		}
+		if got := aid.Mixed(seed, one.Intn, 7, []int{3, 4}); !slices.Equal(got, want) {
+			t.Fatalf("%d: %v, not %v", seed, got, want)
+		}
+	}
+}
+
 func TestGoes(t *testing.T) {
 	if l := aid.Goes([2]int{0, 2}, [2]int{3, 0}, [2]int{-1, 3}); !slices.Equal(l, []int{0, 0, -1, -1, -1}) || len(aid.Goes()) != 0 {
 		t.Errorf("%v", l)

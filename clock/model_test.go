@@ -428,10 +428,7 @@ func TestRuns(t *testing.T) {
 		first, calls := someCalls(r)
 		most := aid.Some(r.Intn, []int{0, 20, 30, 45, 70, 100, enough, enough, enough, enough, enough, enough})
 		w := newWorld(first, calls)
-		picks := aid.Picks(r.Intn, 200)
-		if seed%2 == 0 {
-			picks = aid.Bursts(r.Intn, []int{1, 2, 4, 8, 16, 30})
-		}
+		picks := aid.Mixed(seed, r.Intn, 200, []int{1, 2, 4, 8, 16, 30})
 		report := w.run(t, picks, most)
 		if most == enough && report.End != api.Over {
 			t.Errorf("R1: %d turns are not enough", most)

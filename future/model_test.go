@@ -161,10 +161,7 @@ func TestRuns(t *testing.T) {
 		r := rand.New(rand.NewSource(seed))
 		n, first, calls := someCalls(r)
 		most := aid.Some(r.Intn, []int{0, 4, 8, 12, 20, enough, enough, enough, enough, enough})
-		picks := aid.Picks(r.Intn, 80)
-		if seed%2 == 0 {
-			picks = aid.Bursts(r.Intn, []int{1, 2, 3, 4, 6})
-		}
+		picks := aid.Mixed(seed, r.Intn, 80, []int{1, 2, 3, 4, 6})
 		p := newPair(t, n, first)
 		from := len(p.is.story)
 		report := p.run(t, calls, picks, most)

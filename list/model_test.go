@@ -282,10 +282,7 @@ func TestRuns(t *testing.T) {
 		first, calls := someCalls(r, of)
 		most := []int{0, 9, 20, enough, enough, enough}[r.Intn(6)]
 		w := newWorld(of, first, calls)
-		picks := aid.Picks(r.Intn, 60)
-		if seed%2 == 0 {
-			picks = aid.Bursts(r.Intn, []int{1, 2, 3, 4, 5, 8})
-		}
+		picks := aid.Mixed(seed, r.Intn, 60, []int{1, 2, 3, 4, 5, 8})
 		report := w.run(t, picks, most)
 		if most == enough && report.End != api.Over {
 			t.Errorf("R1: %d turns are not enough", most)

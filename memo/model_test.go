@@ -155,10 +155,7 @@ func TestRuns(t *testing.T) {
 		m := &maker{Rand: r, memos: len(sizes), most: 1 + r.Int63n(9)}
 		first, calls := m.calls(3, 1, -1), m.threads()
 		most := aid.Some(r.Intn, []int{0, 4, 8, 12, 20, enough, enough, enough, enough, enough})
-		picks := aid.Picks(r.Intn, 80)
-		if seed%2 == 0 {
-			picks = aid.Bursts(r.Intn, []int{1, 2, 3, 4, 6})
-		}
+		picks := aid.Mixed(seed, r.Intn, 80, []int{1, 2, 3, 4, 6})
 		p := newPair(t, sizes, first)
 		from := len(p.is.story)
 		report := p.run(t, calls, picks, most)

@@ -287,10 +287,7 @@ func TestRuns(t *testing.T) {
 		first, calls := someCalls(r, of.n)
 		most := []int{0, 9, 30, enough, enough, enough}[r.Intn(6)]
 		w := newWorld(of, first, calls)
-		picks := aid.Picks(r.Intn, 60)
-		if seed%2 == 0 {
-			picks = aid.Bursts(r.Intn, []int{1, 2, 3, 6, 7, 14, 21, 28})
-		}
+		picks := aid.Mixed(seed, r.Intn, 60, []int{1, 2, 3, 6, 7, 14, 21, 28})
 		report := w.run(t, picks, most)
 		if most == enough && report.End != api.Over {
 			t.Errorf("R1: %d turns are not enough", most)

@@ -122,10 +122,7 @@ func TestRuns(t *testing.T) {
 		m := maker{r, 1 + r.Intn(4), aid.Some(r.Intn, []int{0, 1, 1, 2})}
 		plan, calls := m.plan(), m.threads()
 		most := aid.Some(r.Intn, []int{0, 3, 6, 10, 15, enough, enough, enough, enough, enough})
-		picks := aid.Picks(r.Intn, 60)
-		if seed%2 == 0 {
-			picks = aid.Bursts(r.Intn, []int{1, 2, 3, 4, 6})
-		}
+		picks := aid.Mixed(seed, r.Intn, 60, []int{1, 2, 3, 4, 6})
 		p := newPair(t, plan)
 		report := p.run(t, calls, picks, most)
 		counts(met, report, p.is)

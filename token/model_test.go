@@ -56,10 +56,7 @@ func TestRuns(t *testing.T) {
 		r := rand.New(rand.NewSource(seed))
 		first, calls := someCalls(r)
 		most := aid.Some(r.Intn, []int{0, 5, 10, 20, 40, enough, enough, enough, enough, enough})
-		picks := aid.Picks(r.Intn, 120)
-		if seed%2 == 0 {
-			picks = aid.Bursts(r.Intn, []int{1, 2, 3, 4, 6, 9})
-		}
+		picks := aid.Mixed(seed, r.Intn, 120, []int{1, 2, 3, 4, 6, 9})
 		p := newPair(t, first)
 		report := p.run(t, calls, picks, most)
 		for what, n := range p.of.met {
