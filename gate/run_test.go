@@ -6,6 +6,7 @@ import (
 	"slices"
 	"sync/atomic"
 	"testing"
+	"time"
 
 	"treadle/api"
 	"treadle/gate"
@@ -366,9 +367,9 @@ func TestAllAreJoined(t *testing.T) {
 	if ended != 800 {
 		t.Errorf("%d of 800 bodies have ended", ended)
 	}
-	for range 1000 { // a goroutine that has been joined may still be on its way out
+	for range 10000 { // a goroutine that has been joined may still be on its way out, for long where the machine has stopped it there
 		if runtime.NumGoroutine() > before {
-			runtime.Gosched()
+			time.Sleep(time.Millisecond)
 		}
 	}
 	if n := runtime.NumGoroutine(); n > before {
