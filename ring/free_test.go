@@ -3,84 +3,29 @@ package ring_test
 import (
 	"math"
 	"math/rand"
-	"runtime"
 	"slices"
 	"sync/atomic"
 	"testing"
-	"time"
 
 	"treadle/aid"
 	"treadle/api"
 	"treadle/ring"
 )
 
-// (What plain memory is handed on the race detector sees besides.)
-
 const hands, meetings = 8, 50000
-
-// goesThrough: what each of so many takers got, in his order, when so many putters put each so many values, 1 and up and so many times 2^32: again and again where the ring is full. early: how often a value came ahead of what its putter did before.
-func goesThrough(x *ring.Ring, putters, takers, each int) (got [][]int64, early int64) {
-	got = make([][]int64, takers)
-	plain := make([][]int, putters)
-	for h := range plain {
-		plain[h] = make([]int, each)
-	}
-	var taken, wrong atomic.Int64
-	var late atomic.Bool // where something is lost they would go on for ever
-	defer time.AfterFunc(30*time.Second, func() { late.Store(true) }).Stop()
-	aid.Beside(putters+takers, func(h int) {
-		if h < putters {
-			for i := range each {
-				plain[h][i] = 1
-				for x.Put(nil, int64(h)<<32+int64(i+1)) != api.OK && !late.Load() {
-					runtime.Gosched()
-				}
-			}
-			return
-		}
-		for taken.Load() < int64(putters*each) && !late.Load() {
-			v, ok := x.Take(nil)
-			if !ok {
-				runtime.Gosched()
-				continue
-			}
-			taken.Add(1)
-			got[h-putters] = append(got[h-putters], v)
-			p, i := int(v>>32), int(v&math.MaxUint32)-1
-			if p < 0 || p >= putters || i < 0 || i >= each || plain[p][i] != 1 {
-				wrong.Add(1)
-			}
-		}
-	})
-	return got, wrong.Load()
-}
 
 // TestNothingIsLost: each value that was put is taken once, by whomever; of one putter's values each taker's rise. Behind that the ring is as at first.
 func TestNothingIsLost(t *testing.T) {
 	for _, of := range []size{{2, 0}, {2, math.MaxInt64 - 100}, {4, -1000}, {64, math.MaxInt64}, {api.MaxRing, math.MaxInt64 - 9000}} {
 		for _, who := range [][2]int{{1, 1}, {1, hands - 1}, {hands - 1, 1}, {hands / 2, hands / 2}, {1, 2}, {2, 1}} {
-			x, each := of.ring(), 24000/who[0]
-			got, wrong := goesThrough(x, who[0], who[1], each)
-			for _, l := range got {
-				last := make([]int64, who[0])
-				for _, v := range l {
-					if p := v >> 32; p >= 0 && p < int64(who[0]) {
-						if v <= last[p] {
-							wrong++
-						}
-						last[p] = v
-					}
-				}
+			x := of.ring()
+			p := aid.Passage{Putters: who[0], Takers: who[1], Each: 24000 / who[0],
+				Put:  func(v int64) bool { return x.Put(nil, v) == api.OK },
+				Take: func() (int64, bool) { return x.Take(nil) },
+				Lane: func(int64) int { return 0 },
 			}
-			seen := slices.Concat(got...)
-			slices.Sort(seen)
-			for i, v := range seen {
-				if v != int64(i/each)<<32+int64(i%each+1) {
-					wrong++
-				}
-			}
-			if len(seen) != who[0]*each || wrong != 0 {
-				t.Fatalf("what follows: %v, %v: of %d values %d are taken, %d times wrong", of, who, who[0]*each, len(seen), wrong)
+			if n := p.Wrong(); n != 0 {
+				t.Fatalf("what follows: %v, %v: %d times wrong", of, who, n)
 			}
 			if l := goesAround(of.n); !asPlain(of.plain(), l, all(x, nil, l...)) {
 				t.Errorf("what follows: %v, %v: behind that it is not as at first", of, who)
