@@ -95,10 +95,13 @@ func Every(turns int, play func(picks []int) (ready []int)) int {
 	}
 }
 
-// Text: an entry: who, what, which cell, what was asked: what was; of a Cas whether it was done. Of a mark: who, its number, its kind.
+// Text: an entry: who, what, which cell, what was asked: what was; of a Cas whether it was done. Of a mark: who, its number, its kind. Of a Go: who, and the new thread.
 func Text(a api.Access) string {
-	if a.Op == api.OpMark {
+	switch a.Op {
+	case api.OpMark:
 		return strconv.Itoa(a.Thread) + " mark " + strconv.FormatInt(a.Arg, 10) + " " + strconv.FormatInt(a.New, 10)
+	case api.OpGo:
+		return strconv.Itoa(a.Thread) + " go: " + strconv.FormatInt(a.Now, 10)
 	}
 	l := []string{strconv.Itoa(a.Thread), named(a.Op), "c" + strconv.Itoa(a.Cell)}
 	if a.Op != api.OpLoad {

@@ -173,6 +173,13 @@ func TestTexts(t *testing.T) {
 	if s := aid.Texts(marks.Log); s != "1 mark 7 2; 1 mark -1 -9223372036854775808" {
 		t.Errorf("marks: %s", s)
 	}
+	goes := gate.Run(nil, 1, func(t *gate.Thread) {
+		t.Go(nil)
+		t.Go(nil)
+	})
+	if s := aid.Texts(goes.Log) + "; " + aid.Texts(goes.Left); s != "0 go: 1; 0 go: 0" {
+		t.Errorf("threads that are begun: %s", s)
+	}
 }
 
 func TestThreads(t *testing.T) {
