@@ -37,17 +37,22 @@ func Beside(hands int, f func(hand int)) {
 	all.Wait()
 }
 
-// Together: so many hands that meet so often, and go on from there at one time, where the machine lets them. (Whoever has looked out for the others long enough goes on alone.)
+// Together: so many hands that meet so often, and go on from there at one time, where the machine lets them. (Nobody waits for the others: who comes ahead of them is idle, the longer the more of them are behind, and so they keep together.)
 func Together(hands, meetings int, f func(hand, i int)) {
 	var come atomic.Int64
 	Beside(hands, func(h int) {
 		for i := range meetings {
-			come.Add(1)
-			for looks := 0; looks < 300 && come.Load() < int64((i+1)*hands); looks++ {
-			}
+			behind := (i+1)*hands - int(come.Add(1))
+			idle(min(100*behind, 5000))
 			f(h, i)
 		}
 	})
+}
+
+// idle does nothing, in so many steps.
+func idle(steps int) {
+	for range steps {
+	}
 }
 
 // Stopped: a thread that was stopped, and the gate's own value with which it was.

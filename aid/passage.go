@@ -2,13 +2,11 @@ package aid
 
 import (
 	"math"
-	"runtime"
 	"slices"
 	"sync/atomic"
-	"time"
 )
 
-// Passage is what goes from hands that put to hands that take, beside one another. Each putter puts so many values, from 1 on, with his number times 2^32; one that is refused again and again.
+// Passage is what goes from hands that put to hands that take, beside one another. Each putter puts so many values, from 1 on, with his number times 2^32. Who is refused tries again, at once for some times, and then whenever another hand has done something; where none is left that may, he gives up.
 type Passage struct {
 	Putters, Takers, Each int
 	Put                   func(v int64) bool   // whether it does
@@ -37,33 +35,35 @@ func (p *Passage) goes() (got [][]int64, early int) {
 	for h := range plain {
 		plain[h] = make([]int, p.Each)
 	}
-	var taken, wrong atomic.Int64
-	var late atomic.Bool // where something is lost they would go on for ever
-	defer time.AfterFunc(30*time.Second, func() { late.Store(true) }).Stop()
+	var wrong atomic.Int64
+	y := newYard(p.Putters + p.Takers)
 	puts := func(h int) {
 		for i := range p.Each {
 			plain[h][i] = 1
-			for !p.Put(int64(h)<<32+int64(i+1)) && !late.Load() {
-				runtime.Gosched()
+			if !y.does(putters, func() bool { return p.Put(int64(h)<<32 + int64(i+1)) }) {
+				return // what was put is lost, or nobody takes it
 			}
 		}
 	}
+	takes := func(l *[]int64) bool {
+		v, ok := p.Take()
+		if !ok {
+			return false
+		}
+		*l = append(*l, v)
+		if by, i := p.of(v); i < 0 || plain[by][i] != 1 {
+			wrong.Add(1)
+		}
+		return true
+	}
 	Beside(p.Putters+p.Takers, func(h int) {
+		defer y.leaves()
 		if h < p.Putters {
 			puts(h)
 			return
 		}
-		for taken.Load() < int64(p.Putters*p.Each) && !late.Load() {
-			v, ok := p.Take()
-			if !ok {
-				runtime.Gosched()
-				continue
-			}
-			taken.Add(1)
-			got[h-p.Putters] = append(got[h-p.Putters], v)
-			if by, i := p.of(v); i < 0 || plain[by][i] != 1 {
-				wrong.Add(1)
-			}
+		l := &got[h-p.Putters]
+		for len(*l) < p.Putters*p.Each && y.does(takers, func() bool { return takes(l) }) {
 		}
 	})
 	return got, int(wrong.Load())
