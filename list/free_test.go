@@ -21,7 +21,7 @@ const hands, meetings = 8, 60000
 func explained(calls [][]call, got [][]answer, whole []int64) bool {
 	rows := []string{""} // the texts of what is told, by how many are on
 	for n := range whole {
-		rows = append(rows, text(whole[:n+1]))
+		rows = append(rows, aid.Line(whole[:n+1]))
 	}
 	met := map[int]int{}
 	for h, l := range calls {
@@ -213,7 +213,7 @@ func (x *crowd) holds(t *testing.T, most int, what string) {
 	if len(added) != len(whole) || !numbered(most, x.calls, x.got) || len(whole) > most || !closed && len(added) < min(asked, most) {
 		t.Fatalf("what follows: %s: %d were added, the row has %d", what, len(added), len(whole))
 	}
-	as := plain{closed: closed, row: text(whole)}
+	as := plain{closed: closed, row: aid.Line(whole)}
 	if as.closed {
 		as.row = ""
 	}
@@ -299,7 +299,7 @@ func whole(l *list.List[int64], calls [][]call, got [][]answer) (row []int64) {
 	for h, made := range calls {
 		for i, c := range made {
 			if a := got[h][i]; c == closes && a.e == api.OK {
-				return values(a.row)
+				return aid.OfLine(a.row)
 			}
 		}
 	}

@@ -1,9 +1,6 @@
 package list_test
 
 import (
-	"strconv"
-	"strings"
-
 	"treadle/aid"
 	"treadle/api"
 	"treadle/gate"
@@ -39,24 +36,7 @@ type answer struct {
 var full, gone, ended = answer{e: api.ErrFull}, answer{e: api.ErrClosed}, answer{closed: true}
 
 func at(k int) answer            { return answer{k: k} }
-func all(values ...int64) answer { return answer{row: text(values)} }
-
-func text(row []int64) string {
-	var s strings.Builder
-	for _, v := range row {
-		s.WriteString(strconv.FormatInt(v, 10) + " ")
-	}
-	return s.String()
-}
-
-// values: of a row's text.
-func values(row string) (l []int64) {
-	for _, f := range strings.Fields(row) {
-		v, _ := strconv.ParseInt(f, 10, 64)
-		l = append(l, v)
-	}
-	return l
-}
+func all(values ...int64) answer { return answer{row: aid.Line(values)} }
 
 func newList(most int) *list.List[int64] { return list.New[int64](most) }
 
@@ -71,7 +51,7 @@ func do(l *list.List[int64], t *gate.Thread, c call) (a answer) {
 	case look:
 		row, a.closed, a.e = l.Each(t)
 	}
-	a.row = text(row)
+	a.row = aid.Line(row)
 	return a
 }
 
@@ -116,7 +96,7 @@ func does(s plain, c call) (plain, answer) {
 	if s.given > s.most {
 		return s, full
 	}
-	s.row += text([]int64{c.v})
+	s.row += aid.Line([]int64{c.v})
 	return s, at(s.given)
 }
 

@@ -132,7 +132,7 @@ func (w *world) row(k int64) string {
 		k = w.places[k].ahead
 	}
 	slices.Reverse(l)
-	return text(l)
+	return aid.Line(l)
 }
 
 // ends: what the cells hold at the end, and what was found in the report. It goes through it twice: a row may have values of threads that are gone through behind the one that tells it.
@@ -183,7 +183,7 @@ func (w *world) follows(log int, ends map[int]int64) (faults []string) {
 			switch {
 			case d.on == i && d.call.op == add:
 				fault(as.closed, "a value is put on a list that is closed")
-				as.row += text([]int64{d.call.v})
+				as.row += aid.Line([]int64{d.call.v})
 			case d.on == i:
 				fault(as.closed || d.answer.row != as.row, "a Close does not tell of what was added: "+d.answer.row)
 				as.closed, as.row = true, ""
@@ -204,17 +204,13 @@ func (w *world) follows(log int, ends map[int]int64) (faults []string) {
 
 // numbered: whether just the numbers behind those of the beginning were given out, each once.
 func (w *world) numbered(ends map[int]int64) bool {
-	var given, want []int64
+	var given []int64
 	for _, d := range w.did {
 		if d.k != 0 {
 			given = append(given, d.k)
 		}
 	}
-	for k := w.held[lastCell] + 1; k <= ends[lastCell]; k++ {
-		want = append(want, k)
-	}
-	slices.Sort(given)
-	return slices.Equal(given, want)
+	return aid.EachOnce(given, w.held[lastCell], ends[lastCell])
 }
 
 // idles: whether a call went back more often than others changed the head meanwhile.
