@@ -83,6 +83,8 @@ func TestARecordThatDoesNot(t *testing.T) {
 		"the last is missing":  func(r *api.Report) { r.Log = r.Log[:3] },
 		"one too many":         func(r *api.Report) { r.Log, r.Went = append(r.Log, r.Log[0]), append(r.Went, 0) },
 		"another one went":     func(r *api.Report) { r.Went[0] = 1 },
+		"a mark among them":    func(r *api.Report) { r.Log = slices.Insert(r.Log, 1, api.Access{Op: api.OpMark, Cell: -1}) },
+		"a mark of nobody's":   func(r *api.Report) { r.Log = slices.Insert(r.Log, 0, api.Access{Thread: 9, Op: api.OpMark, Cell: -1}) },
 		"nobody is left":       func(r *api.Report) { r.Left = nil },
 		"another is left":      func(r *api.Report) { r.Left[0].Thread = 0 },
 		"left at another op":   func(r *api.Report) { r.Left[0].Op = api.OpLoad },

@@ -149,7 +149,7 @@ func (r *Record) Ends(held map[int]int64) map[int]int64 {
 		if _, met := numbers[cell]; !met {
 			numbers[cell] = len(numbers)
 		}
-		if !r.read[i] || a.Cell != numbers[cell] || a.Was != ends[cell] || a.Thread != r.report.Went[i] {
+		if !r.read[i] || a.Cell != numbers[cell] || a.Was != ends[cell] || i >= len(r.report.Went) || a.Thread != r.report.Went[i] {
 			r.fault("no such cell, value, or thread", a)
 		}
 		ends[cell] = a.Now

@@ -236,18 +236,17 @@ func (x *crowd) ask(h int) {
 	x.notes(h, asks, at(n))
 }
 
-// holds: whether nothing went wrong; and nothing is left behind that.
-func (x *crowd) holds(t *testing.T, what string) {
-	t.Helper()
-	n := x.amiss.Load()
+// wrong: what went wrong, if anything did; nothing is left behind that.
+func (x *crowd) wrong() string {
 	left := aid.Line(x.b.Take(nil))
-	if s := wrong(x.most, x.calls, x.got, left); n != 0 || s != "" {
-		t.Fatalf("what follows: of %d items, %s: %d times amiss: %s", x.most, what, n, s)
+	if n := x.amiss.Load(); n != 0 {
+		return strconv.FormatInt(n, 10) + " times amiss"
 	}
-	used := min(x.most, len(x.plain))
-	if l := []call{asks, takes}; !asPlain(plain{most: x.most, used: used}, l, makes(x.b, nil, l...)) {
-		t.Fatalf("what follows: of %d items, %s: behind that something is left", x.most, what)
+	as := plain{most: x.most, used: min(x.most, len(x.plain))}
+	if l := []call{asks, takes}; !asPlain(as, l, makes(x.b, nil, l...)) {
+		return "something is left"
 	}
+	return wrong(x.most, x.calls, x.got, left)
 }
 
 // TestNothingIsLost: each value that was put is in one answer, or there in the end, in an order that keeps each hand's own.
@@ -258,7 +257,9 @@ func TestNothingIsLost(t *testing.T) {
 			for _, putters := range []int{1, 2, hands} {
 				each := max(most*(1+round%3)/2/putters, 4)
 				for what, with := range map[string][2]int{"nobody takes": {0, 0}, "one takes": {1, 0}, "some take": {3, 0}, "one asks": {0, 1}, "some take, some ask": {2, 2}} {
-					passes(most, putters, each, with[0], with[1]).holds(t, strconv.Itoa(putters)+" hands, "+what)
+					if s := passes(most, putters, each, with[0], with[1]).wrong(); s != "" {
+						t.Fatalf("what follows: of %d items, %d hands, %s: %s", most, putters, what, s)
+					}
 				}
 			}
 		}
@@ -270,19 +271,28 @@ func TestMuchIsTaken(t *testing.T) {
 	defer inTime()()
 	for round := range 300 {
 		putters := 1 + round%4
-		passes(api.MaxTasks, putters, api.MaxTasks/putters, hands-putters, 0).holds(t, strconv.Itoa(putters)+" hands, and all others take")
+		if s := passes(api.MaxTasks, putters, api.MaxTasks/putters, hands-putters, 0).wrong(); s != "" {
+			t.Fatalf("what follows: %d hands, and all others take: %s", putters, s)
+		}
 	}
 }
 
-// TestStoppedByTheMachine: the same, where there are more hands than the machine lets go at one time, so that it stops them in the midst of their calls for a while.
+// TestStoppedByTheMachine: the same, where several crowds go at one time, so that there are far more hands than the machine lets go, and it stops them in the midst of their calls for a while.
 func TestStoppedByTheMachine(t *testing.T) {
 	defer inTime()()
-	const many = 2 * hands
-	defer runtime.GOMAXPROCS(runtime.GOMAXPROCS(2 * many))
-	for round := range 150 {
-		most := []int{many, 500, api.MaxTasks}[round%3]
-		passes(most, many, most/many+1, 1+round%2, 1).holds(t, "who are stopped")
-	}
+	defer runtime.GOMAXPROCS(runtime.GOMAXPROCS(8 * hands))
+	aid.Beside(hands, func(crowd int) {
+		for round := range 100 {
+			if t.Failed() {
+				return
+			}
+			most := []int{hands, 500, api.MaxTasks, api.MaxTasks}[round%4]
+			putters := []int{3, 5, hands}[crowd%3]
+			if s := passes(most, putters, most/putters+1, 1+round%3, crowd%2).wrong(); s != "" {
+				t.Errorf("what follows: of %d items, %d hands, which are stopped: %s", most, putters, s)
+			}
+		}
+	})
 }
 
 // meet: hands meet at inboxes of so many items, and make their calls. There is an order of them that answers so; fits says what else is to be, by the answers, and what is left.

@@ -88,6 +88,15 @@ func TestTypes(t *testing.T) {
 	handsOn(t, "functions that nobody calls", func(a, b func()) bool { return a != nil && b != nil }, func() { t.Error("P22.2: it is called") }, func() { panic("called") })
 }
 
+// TestItself: an inbox may be put into itself.
+func TestItself(t *testing.T) {
+	b, _ := inbox.New[any](1)
+	b.Put(nil, b)
+	if l := b.Take(nil); len(l) != 1 || l[0] != any(b) {
+		t.Errorf("P22.2, P22.3: %v", l)
+	}
+}
+
 // TestAnswersAreTheirOwn: what is done with an answer, its spare room too, is not seen in the inbox, nor in other answers; nor is seen in an answer what is done behind it.
 func TestAnswersAreTheirOwn(t *testing.T) {
 	for n := 1; n <= 40; n++ {
