@@ -60,12 +60,6 @@ func (m size) deque() *deque.Deque {
 	return d
 }
 
-// placeOf: the place of a position.
-func (m size) placeOf(p int64) int {
-	n := int64(m.n)
-	return int((p%n + n) % n)
-}
-
 // do makes the call, by its thread or free.
 func do(d *deque.Deque, t *gate.Thread, c call) (a answer) {
 	switch c.op {

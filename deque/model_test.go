@@ -14,21 +14,14 @@ import (
 
 // The chapter's steps once more, along records: what a run tells and answers is held against them.
 
-const (
-	topCell = iota
-	bottomCell
-	slotCells // from here on: of each place
-)
-
-func (m size) slotOf(p int64) int { return slotCells + m.placeOf(p) }
+// cells: of a deque of this size.
+func (m size) cells() aid.Deque { return aid.Deque{Places: m.n} }
 
 // held: what the cells hold at first.
 func (m size) held() map[int]int64 {
-	l := map[int]int64{topCell: m.from, bottomCell: m.from}
-	for i := range m.n {
-		l[slotCells+i] = 0
-	}
-	return l
+	held := map[int]int64{}
+	m.cells().Held(held, m.from)
+	return held
 }
 
 // did: a call along a record: where it is there, and what it is to answer.
@@ -39,51 +32,22 @@ type did struct {
 }
 
 // steps: of a call of a deque of this size: what it is to answer.
-func (m size) steps(s *aid.Steps, c call) answer {
+func (m size) steps(s *aid.Steps, c call) (a answer) {
+	d := m.cells()
 	switch c.op {
 	case push:
-		b := s.Load(bottomCell)
-		if b-s.Load(topCell) >= int64(m.n) {
+		if !d.Push(s, c.v) {
 			return full
 		}
-		s.Store(m.slotOf(b), c.v)
-		s.Store(bottomCell, b+1)
 		return okay
 	case pop:
-		return m.stepsOfPop(s)
+		a.v, a.ok = d.Pop(s)
 	case steal:
-		p := s.Load(topCell)
-		if s.Load(bottomCell)-p <= 0 {
-			return none
-		}
-		v := s.Load(m.slotOf(p))
-		if !s.Cas(topCell, p, p+1) {
-			return lost
-		}
-		return stolen(v)
+		a.v, a.how = d.Steal(s)
+	case length:
+		a.v = d.Len(s)
 	}
-	top := s.Load(topCell)
-	return long(s.Load(bottomCell) - top)
-}
-
-func (m size) stepsOfPop(s *aid.Steps) answer {
-	b := s.Load(bottomCell) - 1
-	s.Store(bottomCell, b)
-	p := s.Load(topCell)
-	if b-p < 0 {
-		s.Store(bottomCell, b+1)
-		return no
-	}
-	v := s.Load(m.slotOf(b))
-	if b-p > 0 {
-		return popped(v)
-	}
-	first := s.Cas(topCell, p, p+1)
-	s.Store(bottomCell, b+1)
-	if !first {
-		return no
-	}
-	return popped(v)
+	return a
 }
 
 // world: threads that call a deque, and what comes of them.
